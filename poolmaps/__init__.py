@@ -1,0 +1,1 @@
+"""What threads can do together when some are not heard."""

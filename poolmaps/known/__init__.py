@@ -1,0 +1,1 @@
+"""What threads know behind the rounds of a word."""

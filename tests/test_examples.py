@@ -1,0 +1,65 @@
+r"""The examples of the document, to the sign.
+
+>>> RIGHT = Web(((), (0,)))
+>>> LEFT = Web(((1,), ()))
+>>> BOTH = Web(((1,), (0,)))
+>>> SNAP = snap_pool(2)
+>>> ENDS = pair_pool("RL")
+
+Webs:
+
+>>> [RIGHT.roots, RIGHT.signals, str(LEFT), RIGHT.joined(LEFT) == BOTH, silent_web(2).roots, chain_web(3, 1).heard, parting_web(((1,), (0, 2))).heard]
+[(0,), (((0,), 0), ((0, 1), 0)), 'web of 2 threads: 0 hears 1', True, (), ((2,), (), (1,)), ((1, 2), (), (0, 1))]
+>>> [chain_web(3, 0).then(chain_web(3, 0)).heard, (1, 0) in RIGHT, len(full_web(4)), RIGHT.is_within(BOTH), str(RIGHT.with_mark(1, 5)), Web(((), ()), (0, 0)) == silent_web(2)]
+[((), (0,), (0, 1)), True, 12, True, 'web of 2 threads: 1 hears 0; marks 0 5', True]
+
+Pools:
+
+>>> [len(snap_pool(3)), [str(web) for web in snap_pool(2)], str(ENDS), pair_pool("BN")[1] == silent_web(2), star_pool(3).is_rooted, pair_pool("RN").is_rooted, ENDS.is_within(SNAP)]
+[13, ['web of 2 threads: 1 hears 0', 'web of 2 threads: 0 hears 1', 'web of 2 threads: 0 hears 1, 1 hears 0'], 'pool of 2 webs of 2 threads', True, True, False, True]
+>>> [ENDS.merged(SNAP) == pair_pool("RLB"), SNAP.index_of(BOTH), ENDS.renumbered((1, 0)).index_of(LEFT), SNAP.picked((2, 0)).webs == (BOTH, RIGHT), len(chain_pool(3)), Pool((RIGHT, RIGHT.with_mark(0, 7))).unmarked().webs == (RIGHT,)]
+[True, 2, 0, True, 3, True]
+
+What threads know:
+
+>>> POOL = pair_pool("RLB")
+>>> [known(POOL, (0,)), known(POOL, (0, 1)), known_by_everyone(POOL, (0,)), known_since(POOL, (0, 1), 0, 1), sight_numbers(POOL, 1), sight_counts(POOL, 2)]
+[((0,), (0, 1)), ((0, 1), (0, 1)), (0,), 2, {(0,): (0, 0), (1,): (1, 1), (2,): (1, 0)}, (5, 5)]
+>>> [view_of(POOL, ((5, 7), (0,)), 1), all_views(POOL, 0, ((0, 1),)), same_sight(POOL, 0, (1,), (2,)), is_difference(POOL, 1, (1,), (2,), (1,)), lots_of(POOL, 1)]
+[(1, 0, ((0, 5), (1, 7))), ((0, 0, ((0, 0),)), (1, 0, ((1, 1),))), True, True, (((0,), (1,), (2,)),)]
+>>> EVENT = ((0,), (2,))
+>>> [is_lot_way(POOL, (0,), (1,), ((1, (2,)), (0, (1,)))), knows(POOL, 1, EVENT, 1), all_know(POOL, 1, EVENT), level(POOL, 1, EVENT, (0,)), level(POOL, 1, EVENT, (1,)), commonly_known(POOL, 1, EVENT)]
+[True, ((0,), (2,)), ((0,),), 1, -1, ()]
+>>> story = Story(POOL)
+>>> [story.go(0), story.possible(1), story.go(2), str(story), story.undo(many=2), bool(story), story.redo()]
+[((0,), (0, 1)), ((0,), (2,)), ((0, 1), (0, 1)), 'story of 2 rounds: 0 2', ((0,), (1,)), False, ((0,), (0, 1))]
+
+Groups of webs and agreement:
+
+>>> POOL, PAIR = pair_pool("RLB"), pair_pool("RL")
+>>> [alike(POOL, 0, 2, 1), alike(POOL, 0, 1, 2), links_in(POOL, (0, 1, 2)), is_linked_way(POOL, (0, 1, 2), 0, 1, ((1, 2), (0, 1))), splitting(POOL), splitting(PAIR)]
+[True, False, ((0, 2, 1), (1, 2, 0)), True, ((0, 1, 2),), ((0,), (1,))]
+>>> [can_agree(POOL), is_obstacle(POOL, (0, 1, 2)), can_agree(PAIR), is_agreement_certificate(PAIR, ((((0, 1),), ((0,), (1,))), (0, 1))), common_roots(POOL, (0, 2))]
+[False, True, True, True, (0,)]
+>>> [agree_in(PAIR, 0), agree_in(PAIR, 1), heralds(PAIR, 1), is_bar(PAIR, 0, ((), ())), is_bar(POOL, 1, ((0,), ((1, (2,)), (0, (1,))))), least_rounds(PAIR), least_rounds(POOL)]
+[False, True, (0, 1), True, True, 1, None]
+"""
+
+import doctest
+import sys
+from importlib import import_module
+from unittest import TestCase
+
+MODULES = (
+    "base.webs", "base.pools", "known.words", "known.sights", "known.lots", "known.common", "known.stories",
+    "groups.links", "groups.closed", "groups.bars",
+)
+
+
+class ExamplesTest(TestCase):
+    def test_examples(self):
+        names = {}
+        for name in MODULES:
+            names.update(vars(import_module("poolmaps." + name)))
+        told = doctest.testmod(sys.modules[__name__], extraglobs=names)
+        self.assertEqual((told.failed, told.attempted > 18), (0, True))

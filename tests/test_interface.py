@@ -1,0 +1,138 @@
+"""The interface: its names, arguments and defaults, each defined where it is listed; and what nothing changes."""
+
+import inspect
+from copy import deepcopy
+from importlib import import_module
+from unittest import TestCase
+
+from poolmaps.base.pools import Pool, pair_pool, snap_pool
+from poolmaps.base.webs import Web
+from poolmaps.groups import bars, closed, links
+from poolmaps.known import common, lots, sights, stories, words
+
+FUNCTIONS = {
+    "base.webs": "silent_web(size) full_web(size) star_web(size,center) chain_web(size,first) parting_web(blocks)",
+    "base.pools": "snap_pool(size) star_pool(size) chain_pool(size) pair_pool(letters)",
+    "known.words": """is_word(pool,value) all_words(pool,rounds) count_words(pool,rounds) known(pool,word)
+        known_by_everyone(pool,word) known_since(pool,word,thread,other)""",
+    "known.sights": """sight_numbers(pool,rounds) sight_counts(pool,rounds) same_sight(pool,thread,one,other)
+        difference(pool,thread,one,other) is_difference(pool,thread,one,other,value) view_of(pool,run,thread)
+        views_of(pool,run) all_views(pool,rounds,rows)""",
+    "known.lots": """lots_of(pool,rounds) lot_of(pool,word) lot_way(pool,one,other)
+        is_lot_way(pool,one,other,value)""",
+    "known.common": """knows(pool,rounds,event,thread) all_know(pool,rounds,event,times=1)
+        commonly_known(pool,rounds,event) level(pool,rounds,event,word)""",
+    "groups.links": """alike(pool,one,other,third) links_in(pool,group) is_link(pool,group,value)
+        linked_way(pool,group,one,other) is_linked_way(pool,group,one,other,value) parts_of(pool,group)""",
+    "groups.closed": """common_roots(pool,group) is_closed(pool,value) splitting(pool) splitting_steps(pool)
+        can_agree(pool) obstacle(pool) is_obstacle(pool,value) agreement_certificate(pool)
+        is_agreement_certificate(pool,value)""",
+    "groups.bars": """agree_in(pool,rounds) heralds(pool,rounds) are_heralds(pool,rounds,value) bar(pool,rounds)
+        is_bar(pool,rounds,value) least_rounds(pool,*,most=3)""",
+}
+METHODS = {
+    ("base.webs", "Web"): """__init__(self,heard,marks=None) signal(self,thread) hears(self,thread)
+        reached(self,thread) with_hearing(self,thread,other) without_hearing(self,thread,other)
+        with_mark(self,thread,mark) unmarked(self) joined(self,other) shared(self,other) then(self,other)
+        is_within(self,other) renumbered(self,numbers)""",
+    ("base.pools", "Pool"): """__init__(self,webs) index_of(self,web) picked(self,indices) with_web(self,web)
+        without_web(self,index) unmarked(self) renumbered(self,numbers) merged(self,other) is_within(self,other)""",
+    ("known.stories", "Story"): """__init__(self,pool) go(self,index) undo(self,*,many=1) redo(self,*,many=1)
+        possible(self,thread) twin(self)""",
+}
+SIGNS = {
+    "Web": ("__contains__", "__len__", "__eq__", "__str__"),
+    "Pool": ("__getitem__", "__contains__", "__iter__", "__len__", "__eq__", "__str__"),
+    "Story": ("__len__", "__bool__", "__eq__", "__str__"),
+}
+PROPERTIES = {
+    "Web": ("heard", "marks", "size", "signals", "roots", "is_marked"),
+    "Pool": ("webs", "size", "is_marked", "is_rooted"),
+    "Story": ("word", "pool", "knowing"),
+}
+CONSTANTS = {"base.pools": {"MAX_WEBS": 80}, "known.words": {"MAX_ROUNDS": 6},
+             "known.sights": {"MAX_WORDS": 3000, "MAX_RUNS": 4000}}
+
+
+def heading(function):
+    return function.__name__ + str(inspect.signature(function)).replace(" ", "")
+
+
+class InterfaceTest(TestCase):
+    def test_functions(self):
+        for name, listed in FUNCTIONS.items():
+            module = import_module("poolmaps." + name)
+            for told in listed.split():
+                function = vars(module)[told.split("(")[0]]
+                self.assertEqual((heading(function), function.__module__), (told, "poolmaps." + name))
+
+    def test_classes(self):
+        for (name, title), listed in METHODS.items():
+            own = vars(import_module("poolmaps." + name))[title]
+            self.assertEqual(own.__module__, "poolmaps." + name)
+            for told in listed.split():
+                self.assertEqual(heading(vars(own)[told.split("(")[0]]), told)
+            for method in (*SIGNS[title], *PROPERTIES[title]):
+                self.assertIn(method, vars(own))
+
+    def test_constants(self):
+        for name, listed in CONSTANTS.items():
+            for constant, value in listed.items():
+                self.assertEqual(vars(import_module("poolmaps." + name))[constant], value)
+
+
+def calls():
+    """A call of each function and method, with the values that it is passed."""
+    pool, pair, web = pair_pool("RLB"), pair_pool("RL"), Web(((1,), (0,)), (0, 3))
+    way = ((1, (2,)), (0, (1,)))
+    certificate = ((((0, 1),), ((0,), (1,))), (0, 1))
+    return [
+        (web.signal, 0), (web.hears, 0), (web.reached, 0), (web.without_hearing, 0, 1), (web.with_mark, 0, 1),
+        (web.unmarked,), (web.joined, pool[0]), (web.shared, pool[0]), (web.then, pool[0]), (web.is_within, pool[0]),
+        (web.renumbered, (1, 0)), (pool[0].with_hearing, 0, 1), (str, web), (len, web), (web.__contains__, (0, 1)),
+        (pool.index_of, pool[1]), (pool.picked, (2, 0)), (pool.with_web, web), (pool.without_web, 0),
+        (pool.unmarked,), (pool.renumbered, (1, 0)), (pool.merged, pair), (pool.is_within, pair), (str, pool),
+        (words.is_word, pool, (0,)), (words.count_words, pool, 2), (words.known, pool, (0, 1)),
+        (words.known_by_everyone, pool, (0,)), (words.known_since, pool, (0, 1), 0, 1),
+        (sights.sight_numbers, pool, 2), (sights.sight_counts, pool, 2), (sights.same_sight, pool, 0, (1,), (2,)),
+        (sights.difference, pool, 0, (0,), (1,)), (sights.is_difference, pool, 0, (0,), (1,), (0,)),
+        (sights.view_of, pool, ((0, 1), (2,)), 0), (sights.views_of, pool, ((0, 1), (2,))),
+        (sights.all_views, pool, 1, ((0, 1), (1, 1))), (lots.lots_of, pool, 1), (lots.lot_of, pool, (0,)),
+        (lots.lot_way, pool, (0,), (1,)), (lots.is_lot_way, pool, (0,), (1,), way),
+        (common.knows, pool, 1, ((0,), (2,)), 1), (common.all_know, pool, 1, ((0,), (2,)), 1),
+        (common.commonly_known, pool, 1, ((0,), (2,))), (common.level, pool, 1, ((0,), (2,)), (0,)),
+        (links.alike, pool, 0, 1, 2), (links.links_in, pool, (0, 1, 2)), (links.is_link, pool, (0, 1, 2), (0, 2, 1)),
+        (links.linked_way, pool, (0, 1, 2), 0, 1), (links.is_linked_way, pool, (0, 1, 2), 0, 1, ((1, 2), (0, 1))),
+        (links.parts_of, pool, (0, 1)), (closed.common_roots, pool, (0, 2)), (closed.is_closed, pool, (0, 1)),
+        (closed.splitting, pool), (closed.splitting_steps, pair), (closed.can_agree, pool), (closed.obstacle, pool),
+        (closed.is_obstacle, pool, (0, 1, 2)), (closed.agreement_certificate, pair),
+        (closed.is_agreement_certificate, pair, certificate), (bars.agree_in, pair, 1), (bars.heralds, pair, 1),
+        (bars.are_heralds, pair, 1, (0, 1)), (bars.bar, pool, 1), (bars.is_bar, pool, 1, ((0,), way)),
+        (bars.least_rounds, pair),
+    ]
+
+
+class NothingChangesTest(TestCase):
+    def test_calls_change_no_argument_and_are_equal_each_time(self):
+        for call, *args in calls():
+            passed = [getattr(call, "__self__", None), *args]
+            watched = [value for value in passed if isinstance(value, (Web, Pool, tuple))]
+            before = deepcopy(watched)
+            self.assertEqual(call(*args), call(*args))
+            self.assertEqual(watched, before)
+            for one, other in zip(watched, before):
+                if isinstance(one, (Web, Pool)):
+                    self.assertEqual(vars(one), vars(other))
+
+    def test_equal_pools_give_equal_results(self):
+        for one, other in ((snap_pool(2), Pool(snap_pool(2).webs)), (pair_pool("RLB"), pair_pool("RLB"))):
+            self.assertEqual(lots.lots_of(one, 3), lots.lots_of(other, 3))
+            self.assertEqual(closed.obstacle(one), closed.obstacle(other))
+            self.assertEqual(bars.bar(one, 3), bars.bar(other, 3))
+
+    def test_a_story_keeps_its_pool(self):
+        pool = pair_pool("RLB")
+        story = stories.Story(pool)
+        for index in (0, 1, 2):
+            story.go(index)
+        self.assertEqual((pool, vars(pool)), (pair_pool("RLB"), vars(pair_pool("RLB"))))
