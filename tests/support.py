@@ -91,9 +91,10 @@ class Case(TestCase):
                 error, values = wrong[chosen[0]]
                 for turn, value in enumerate(values):
                     args = list(good)
-                    for place in chosen:
+                    args[chosen[0]] = value
+                    for place in chosen[1:]:
                         others = wrong[place][1]
-                        args[place] = others[turn % len(others)]
+                        args[place] = others[(turn + place) % len(others)]
                     self.fails_keeping(error, value, call, *args)
 
     def judges(self, call, args, others=()):

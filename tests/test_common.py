@@ -158,6 +158,7 @@ class EventsTest(Case):
         threads, times = (InvalidNumber, [2, True, -1]), (InvalidNumber, [3001, -1, True, None])
         self.checks_arguments(knows, [BIG, 2, (), 0], [NO_POOLS, ROUNDS, event, threads])
         self.checks_arguments(all_know, [BIG, 2, (), 0], [NO_POOLS, ROUNDS, event, times])
+        self.checks_arguments(commonly_known, [BIG, 2, ()], [NO_POOLS, ROUNDS, event])
         self.checks_arguments(level, [BIG, 2, (), (0, 0)], [NO_POOLS, ROUNDS, event, (InvalidWord, [(0,), None, (0, 55)])])
         whole = tuple(plain_words(BIG, 1))
         self.assertEqual((knows(BIG, 1, whole, 1), knows(BIG, 1, whole[1:], 1)), (whole, ()))

@@ -4,7 +4,7 @@ from poolmaps.base.checks import is_number, is_pair
 from poolmaps.errors import InvalidOperation
 from poolmaps.known.chains import class_of, classes_of, shortest_chain
 from poolmaps.known.sights import check_few_words, has_same_sight, sight_table
-from poolmaps.known.words import check_rounds, check_word, is_word
+from poolmaps.known.words import check_word, is_word
 
 
 def sight_labels(pool, rounds):
@@ -14,7 +14,6 @@ def sight_labels(pool, rounds):
 
 def lots_of(pool, rounds):
     """The ascending tuple of all lots of words with so many rounds."""
-    check_rounds(pool, rounds)
     check_few_words(pool, rounds)
     return classes_of(sight_labels(pool, rounds))
 

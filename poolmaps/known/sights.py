@@ -12,7 +12,7 @@ MAX_INPUT = 9
 
 
 def check_few_words(pool, rounds):
-    """Raises TooMany if there are more words of this length than are gone through."""
+    """The errors of pool and rounds, and TooMany if more words of this length are to be gone through."""
     if count_words(pool, rounds) > MAX_WORDS:
         raise TooMany(MAX_WORDS)
 
@@ -63,7 +63,6 @@ def sight_table(pool, rounds):
 
 def sight_numbers(pool, rounds):
     """A dict from the words with so many rounds to the numbers of all threads' sights behind them."""
-    check_rounds(pool, rounds)
     check_few_words(pool, rounds)
     return sight_table(pool, rounds)
 
