@@ -31,6 +31,13 @@ def is_call(node, *names):
     return isinstance(node, ast.Call) and isinstance(node.func, ast.Name) and node.func.id in names
 
 
+def starred_indices(tree):
+    """The items and slices in whose brackets a star stands, wherever it stands there."""
+    return [
+        node for node in ast.walk(tree)
+        if isinstance(node, ast.Subscript) and any(isinstance(part, ast.Starred) for part in ast.walk(node.slice))]
+
+
 def bound_in(function):
     """All names that a function binds: parameters, targets and those of comprehensions."""
     names = {arg.arg for arg in [*function.args.args, *function.args.kwonlyargs]}
@@ -148,6 +155,17 @@ class LanguageTest(TestCase):
                 self.assertTrue(is_call(node.exc, *self.classes) and node.cause is None, place)
             if isinstance(node, ast.Attribute) and isinstance(node.ctx, ast.Store):
                 self.assertTrue(isinstance(node.value, ast.Name), place)
+
+    def test_no_star_in_the_brackets_of_an_index(self):
+        for path, tree in self.trees.items():
+            self.assertEqual([node.lineno for node in starred_indices(tree)], [], path)
+
+    def test_the_check_finds_stars_in_brackets(self):
+        for text in ("rows[(*key, 1)] = 2", "key = rows[(*key, 1)]", "del rows[(1, *key)]", "rows[(*a, *b)] += 1",
+                     "key = rows[1][((*key, 1), 2)]", "rows[*key] = 2", "key = rows[told(*key)]"):
+            self.assertEqual(len(starred_indices(ast.parse(text))), 1, text)
+        for text in ("key = (*key, 1)\nrows[key] = (*key, 2)", "rows = {(*key, 1): 2}", "rows = [*rows[1], 2]"):
+            self.assertEqual(starred_indices(ast.parse(text)), [], text)
 
     def test_calls(self):
         own = {node.name for tree in self.trees.values() for node in tree.body if isinstance(node, ast.FunctionDef)}

@@ -49,7 +49,8 @@ def longer_table(pool, table):
     longer = {}
     for word, numbers in table.items():
         for index, web in enumerate(pool.webs):
-            longer[(*word, index)] = numbers_after(seen, web, numbers)
+            key = (*word, index)
+            longer[key] = numbers_after(seen, web, numbers)
     return longer
 
 
