@@ -6,7 +6,11 @@ from unittest import TestCase
 from poolmaps.base.pools import Pool, pair_pool, snap_pool, star_pool
 from poolmaps.base.webs import Web, silent_web
 from poolmaps.errors import InvalidNumber, InvalidWeb
+from poolmaps.groups.sieves import Sieve
 from poolmaps.known.stories import Story
+from poolmaps.near.middles import Middles
+from poolmaps.tasks.rules import Rule
+from poolmaps.tasks.tasks import Task
 
 
 def nested(kind, depth):
@@ -24,7 +28,9 @@ WRONG = [
     ((0,),), ((0, 1),), ((0, 0), (0, 0)), ((1,), (0,)), ((), (0,)), ((0, 0), ()),
     [], [0], [(0,)], [()], {}, {0: 0}, {(0,): (0, 0)}, {"a": []}, nested("tuple", 8), nested("list", 8),
     nested("dict", 8), Web(((), ())), Web(((),)), Web(((1,), (0,)), (0, 9999)), pair_pool("RL"), snap_pool(1),
-    Story(pair_pool("B")), InvalidWeb("x"), InvalidNumber(3),
+    Story(pair_pool("B")), InvalidWeb("x"), InvalidNumber(3), Sieve(pair_pool("RL")), Middles(snap_pool(1), (1,)),
+    Task({(0,): ((0,),)}), Task({(0, 1): ((0, 0), (1, 1))}), Rule(pair_pool("RL"), 0, {}),
+    {(0,): ((0,),)}, {(True, 0): ((0, 0),)}, {(0, 0, ((0, 0),)): 0}, {(0, 0): 0, (0, 1): 1}, {0: 0, 1: 1},
 ]
 
 
@@ -194,6 +200,22 @@ def slow_sights(pool, rounds):
     }
 
 
+def slow_run_views(pool, rounds, rows):
+    """A dict from all runs to the views of all threads, numbered by the first words behind which they come."""
+    sights = slow_sights(pool, rounds)
+    firsts = [list(dict.fromkeys(told[thread] for told in sights.values())) for thread in range(pool.size)]
+    views = {}
+    for row, word in product(rows, sights):
+        knowing = slow_known(pool, word)
+        views[row, word] = tuple(
+            (t, firsts[t].index(sights[word][t]), tuple((o, row[o]) for o in knowing[t])) for t in range(pool.size))
+    return views
+
+
+def binary_rows(size):
+    return list(product((0, 1), repeat=size))
+
+
 def slow_classes(items, near):
     """The sorted classes of items that steps between near ones join, by ever greater sets."""
     classes = [{item} for item in items]
@@ -217,6 +239,18 @@ def slow_lots(pool, rounds):
 def near_values(value):
     """Values near a right one: something left out, doubled, exchanged, of another kind, or another number."""
     yield from (None, [value], (value,))
+    if type(value) is dict:
+        yield from (list(value.items()), tuple(value), {**value, (): 0}, {**value, "a": 0}, {})
+        for key, part in value.items():
+            less = {each: told for each, told in value.items() if each != key}
+            yield less
+            for other in near_values(part):
+                yield {**value, key: other}
+            for other in near_values(key):
+                try:
+                    yield {**less, other: part}
+                except TypeError:
+                    pass
     if is_int(value):
         yield from (value - 1, value + 1, -1, 80, str(value), 10 ** 99)
         if value in (0, 1):

@@ -43,6 +43,30 @@ Groups of webs and agreement:
 [False, True, True, True, (0,)]
 >>> [agree_in(PAIR, 0), agree_in(PAIR, 1), heralds(PAIR, 1), is_bar(PAIR, 0, ((), ())), is_bar(POOL, 1, ((0,), ((1, (2,)), (0, (1,))))), least_rounds(PAIR), least_rounds(POOL)]
 [False, True, (0, 1), True, True, 1, None]
+>>> sieve = Sieve(POOL)
+>>> [sieve.verdict, sieve.take_out(2), sieve.groups, str(sieve), sieve.undo(), len(fewest_out(POOL)), is_fewest_out(POOL, (2,)), is_fewest_out(POOL, (0, 1))]
+[False, True, ((0,), (1,)), 'sieve of 2 of 3 webs: yes', False, 1, True, False]
+
+Near agreement:
+
+>>> PATH = pair_pool("RLB")
+>>> [near_limit(PATH, 0), near_limit(PATH, 1), near_limit(PATH, 2), near_limit(pair_pool("RL"), 1), near_limit(snap_pool(3), 1), near_limit(pair_pool("BN"), 3), near_least(PATH, 4)]
+[1, 3, 9, None, 2, 1, 2]
+>>> is_near_chain(PATH, 1, (((0, 1), (0,), 0, 1), ((0, 1), (2,), 1, 0), ((0, 1), (1,), 0, 1)))
+True
+>>> [near_ever(PATH), rootless(pair_pool("BN")), middle_rounds(3, 5), middle_rounds(1, 9), is_near_chain(PATH, 0, (((0, 1), (), 0, 1),))]
+[True, 1, 6, 0, True]
+>>> middles = Middles(PATH, (0, 1))
+>>> [middles.fractions, middles.go(0), middles.spread, middles.go(2), str(middles), middles.floors(4), middles.undo(), middles.blocks]
+[((0, 0), (1, 0)), ((0, 0), (1, 1)), (1, 1), ((1, 2), (1, 2)), '2 rounds: 1/4, 1/4', (1, 1), ((0, 0), (1, 1)), 1]
+
+Tasks and rules:
+
+>>> [len(agreement_task(2)), agreement_task(2)[(0, 1)], choice_task(3, 2).outputs(1), near_task(2, 2)[(0, 0)], str(agreement_task(3))]
+[4, ((0, 0), (1, 1)), (0, 1, 2), ((0, 0),), 'task of 3 threads, 8 rows']
+>>> KEEP = Rule(ENDS, 0, {(0, 0, ((0, 0),)): 0, (0, 0, ((0, 1),)): 1, (1, 0, ((1, 0),)): 0, (1, 0, ((1, 1),)): 1})
+>>> [KEEP.outcome((0, 1), ()), does(KEEP, near_task(2, 1)), does(KEEP, agreement_task(2)), is_fault(KEEP, agreement_task(2), ((1, 0), ())), str(KEEP)]
+[(0, 1), True, False, True, 'rule of 4 views, 0 rounds']
 """
 
 import doctest
@@ -52,7 +76,8 @@ from unittest import TestCase
 
 MODULES = (
     "base.webs", "base.pools", "known.words", "known.sights", "known.lots", "known.common", "known.stories",
-    "groups.links", "groups.closed", "groups.bars",
+    "groups.links", "groups.closed", "groups.bars", "groups.sieves", "near.limits", "near.middles", "tasks.tasks",
+    "tasks.rules",
 )
 
 

@@ -7,8 +7,11 @@ from unittest import TestCase
 
 from poolmaps.base.pools import Pool, pair_pool, snap_pool
 from poolmaps.base.webs import Web
-from poolmaps.groups import bars, closed, links
+from poolmaps.groups import bars, closed, links, sieves
 from poolmaps.known import common, lots, sights, stories, words
+from poolmaps.near import limits, middles
+from poolmaps.tasks import rules
+from poolmaps.tasks.tasks import Task, agreement_task, near_task
 
 FUNCTIONS = {
     "base.webs": "silent_web(size) full_web(size) star_web(size,center) chain_web(size,first) parting_web(blocks)",
@@ -29,6 +32,13 @@ FUNCTIONS = {
         is_agreement_certificate(pool,value)""",
     "groups.bars": """agree_in(pool,rounds) heralds(pool,rounds) are_heralds(pool,rounds,value) bar(pool,rounds)
         is_bar(pool,rounds,value) least_rounds(pool,*,most=3)""",
+    "groups.sieves": "fewest_out(pool) is_fewest_out(pool,value)",
+    "near.limits": """near_limit(pool,rounds) near_chain(pool,rounds) is_near_chain(pool,rounds,value)
+        near_distances(pool,rounds) near_map(pool,rounds,most) is_near_map(pool,rounds,most,value)
+        near_least(pool,most,*,up_to=3)""",
+    "near.middles": """rootless(pool) near_ever(pool) middle_rounds(size,most) middle_map(pool,rounds,most)""",
+    "tasks.tasks": "agreement_task(size,values=2) near_task(size,most) choice_task(size,many)",
+    "tasks.rules": "does(rule,task) found_fault(rule,task) is_fault(rule,task,value)",
 }
 METHODS = {
     ("base.webs", "Web"): """__init__(self,heard,marks=None) signal(self,thread) hears(self,thread)
@@ -39,16 +49,32 @@ METHODS = {
         without_web(self,index) unmarked(self) renumbered(self,numbers) merged(self,other) is_within(self,other)""",
     ("known.stories", "Story"): """__init__(self,pool) go(self,index) undo(self,*,many=1) redo(self,*,many=1)
         possible(self,thread) twin(self)""",
+    ("groups.sieves", "Sieve"): """__init__(self,pool) take_out(self,index) put_back(self,index)
+        undo(self,*,many=1) twin(self)""",
+    ("near.middles", "Middles"): """__init__(self,pool,row,*,block=1) go(self,index) undo(self,*,many=1)
+        twin(self) floors(self,most)""",
+    ("tasks.tasks", "Task"): """__init__(self,table) outputs(self,thread) with_row(self,row,rights)
+        without_row(self,row) is_easier(self,other) replaced(self,outputs) renumbered(self,numbers)""",
+    ("tasks.rules", "Rule"): """__init__(self,pool,rounds,outputs) outcome(self,row,word)
+        lengthened(self,more,task) for_pool(self,pool) replaced(self,outputs) with_output(self,view,output)""",
 }
 SIGNS = {
     "Web": ("__contains__", "__len__", "__eq__", "__str__"),
     "Pool": ("__getitem__", "__contains__", "__iter__", "__len__", "__eq__", "__str__"),
     "Story": ("__len__", "__bool__", "__eq__", "__str__"),
+    "Sieve": ("__contains__", "__iter__", "__len__", "__bool__", "__eq__", "__str__"),
+    "Middles": ("__len__", "__eq__", "__str__"),
+    "Task": ("__getitem__", "__contains__", "__iter__", "__len__", "__and__", "__eq__", "__str__"),
+    "Rule": ("__getitem__", "__contains__", "__iter__", "__len__", "__eq__", "__str__"),
 }
 PROPERTIES = {
     "Web": ("heard", "marks", "size", "signals", "roots", "is_marked"),
     "Pool": ("webs", "size", "is_marked", "is_rooted"),
     "Story": ("word", "pool", "knowing"),
+    "Sieve": ("pool", "indices", "groups", "verdict"),
+    "Middles": ("fractions", "word", "blocks", "spread", "block"),
+    "Task": ("size", "rows", "table"),
+    "Rule": ("pool", "rounds", "views", "table"),
 }
 CONSTANTS = {"base.pools": {"MAX_WEBS": 80}, "known.words": {"MAX_ROUNDS": 6},
              "known.sights": {"MAX_WORDS": 3000, "MAX_RUNS": 4000}}
@@ -112,16 +138,35 @@ def calls():
     ]
 
 
+def later_calls():
+    """The same for sieves, near agreement, tasks and rules."""
+    pool, pair, agree = pair_pool("RLB"), pair_pool("RL"), agreement_task(2)
+    chain, told = limits.near_chain(pool, 1), limits.near_map(pool, 1, 2)
+    rule = rules.Rule(pair, 1, {view: view[2][0][1] for view in sights.all_views(pair, 1, agree.rows)})
+    view = rule.views[2]
+    return [
+        (sieves.fewest_out, pool), (sieves.is_fewest_out, pool, (2,)), (limits.near_limit, pool, 2),
+        (limits.near_chain, pool, 2), (limits.is_near_chain, pool, 1, chain), (limits.near_distances, pool, 1),
+        (limits.near_map, pool, 1, 2), (limits.is_near_map, pool, 1, 2, told), (limits.near_least, pool, 4),
+        (middles.rootless, pool), (middles.near_ever, pool), (middles.middle_map, pool, 1, 2), (agree.outputs, 0),
+        (agree.with_row, (0, 5), ((0, 0),)), (agree.without_row, (0, 1)), (agree.is_easier, agree),
+        (agree.__and__, near_task(2, 1)), (agree.replaced, {0: 1, 1: 5}), (agree.renumbered, (1, 0)), (str, agree),
+        (len, rule), (rule.outcome, (0, 1), (0,)), (rule.lengthened, 1, agree), (rule.for_pool, pair_pool("L")),
+        (rule.replaced, {0: 1, 1: 5}), (rule.with_output, view, 1), (rules.does, rule, agree),
+        (rules.found_fault, rule, agree), (rules.is_fault, rule, agree, ((0, 1), (0,))), (str, rule),
+    ]
+
+
 class NothingChangesTest(TestCase):
     def test_calls_change_no_argument_and_are_equal_each_time(self):
-        for call, *args in calls():
+        for call, *args in [*calls(), *later_calls()]:
             passed = [getattr(call, "__self__", None), *args]
-            watched = [value for value in passed if isinstance(value, (Web, Pool, tuple))]
+            watched = [value for value in passed if isinstance(value, (Web, Pool, Task, rules.Rule, tuple, dict))]
             before = deepcopy(watched)
             self.assertEqual(call(*args), call(*args))
             self.assertEqual(watched, before)
             for one, other in zip(watched, before):
-                if isinstance(one, (Web, Pool)):
+                if isinstance(one, (Web, Pool, Task, rules.Rule)):
                     self.assertEqual(vars(one), vars(other))
 
     def test_equal_pools_give_equal_results(self):

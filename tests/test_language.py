@@ -174,7 +174,8 @@ class LanguageTest(TestCase):
                 continue
             if isinstance(node.func, ast.Name):
                 self.assertIn(node.func.id, BUILTINS | own | self.classes, place)
-                self.assertFalse(node.keywords, place)
+                if node.func.id not in own | self.classes:
+                    self.assertFalse(node.keywords, place)
                 if node.func.id in LISTS_ONLY and node.args:
                     self.assertNotIsInstance(node.args[0], ast.GeneratorExp, place)
             else:

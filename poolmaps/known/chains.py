@@ -1,6 +1,6 @@
 """Chains of items in which neighbors share a label, as words share sights.
 
-`labels` is always a dict from items, ascending, to the lists of their labels. A label is a pair;
+`labels` is always a dict from items, ascending, to the lists of their labels. A label is a tuple;
 its first part is the name by which a step along the label is told.
 """
 

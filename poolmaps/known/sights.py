@@ -2,7 +2,7 @@
 
 from poolmaps.base.checks import are_numbers, is_climbing, is_pair
 from poolmaps.base.pools import check_pool, check_thread
-from poolmaps.errors import InvalidOperation, InvalidWord, TooMany
+from poolmaps.errors import InvalidOperation, InvalidRow, InvalidWord, TooMany
 from poolmaps.known.words import check_rounds, check_word, count_words, is_word, known_table, knowing_behind
 
 MAX_WORDS = 3000
@@ -27,6 +27,28 @@ def is_row_tuple(value, size):
     if not isinstance(value, tuple) or not 1 <= len(value) <= MAX_ROWS:
         return False
     return all([is_row(row, size) for row in value]) and is_climbing(value)
+
+
+def check_row(row, size):
+    """Raises InvalidRow for anything but a row for so many threads."""
+    if not is_row(row, size):
+        raise InvalidRow("this is no row for so many threads")
+
+
+def count_rows(size, values):
+    """The number of the rows of inputs below `values`."""
+    many = 1
+    for _ in range(size):
+        many = many * values
+    return many
+
+
+def all_rows(size, values):
+    """The list of the rows of inputs below `values`, ascending."""
+    rows = [()]
+    for _ in range(size):
+        rows = [(*row, entry) for row in rows for entry in range(values)]
+    return rows
 
 
 def is_run(pool, value):
@@ -146,6 +168,41 @@ def views_behind(row, numbers, knowing):
     ])
 
 
+def known_by_sight(numbers, knowing):
+    """A dict from the pairs (thread, number of a sight) to the threads that are known with this sight."""
+    return {
+        (thread, number): knowing[word][thread]
+        for word, told in numbers.items() for thread, number in enumerate(told)
+    }
+
+
+def are_inputs(value, threads):
+    """Whether the value is a tuple of pairs of just these threads, in their order, and their inputs."""
+    if not isinstance(value, tuple) or not all([is_pair(part) and are_numbers(part, 0, MAX_INPUT) for part in value]):
+        return False
+    return tuple([part[0] for part in value]) == threads
+
+
+def is_view(value, known_by):
+    """Whether the value is a view with one of the sights in this dict, and any inputs."""
+    if not isinstance(value, tuple) or len(value) != 3 or not are_numbers(value[:2], 0, MAX_WORDS):
+        return False
+    return value[:2] in known_by and are_inputs(value[2], known_by[value[:2]])
+
+
+def check_few_runs(pool, rounds, rows):
+    """The errors of pool and rounds, and TooMany for too many words, or runs with so many rows."""
+    check_few_words(pool, rounds)
+    if count_words(pool, rounds) * rows > MAX_RUNS:
+        raise TooMany(MAX_RUNS)
+
+
+def views_in_runs(pool, rounds, rows):
+    """A dict from all runs with so many rounds and these rows, ascending, to the views in them."""
+    numbers, knowing = sight_table(pool, rounds), known_table(pool, rounds)
+    return {(row, word): views_behind(row, numbers[word], knowing[word]) for row in rows for word in numbers}
+
+
 def run_views(pool, run):
     """The views of all threads in a run that is checked already."""
     row, word = run
@@ -178,13 +235,6 @@ def all_views(pool, rounds, rows):
     check_rounds(pool, rounds)
     if not is_row_tuple(rows, pool.size):
         raise InvalidOperation("these are not 1 to 64 ascending rows")
-    check_few_words(pool, rounds)
-    if count_words(pool, rounds) * len(rows) > MAX_RUNS:
-        raise TooMany(MAX_RUNS)
-    knowing = known_table(pool, rounds)
-    views = {}
-    for word, numbers in sight_table(pool, rounds).items():
-        for row in rows:
-            for view in views_behind(row, numbers, knowing[word]):
-                views[view] = True
-    return tuple(sorted(views))
+    check_few_runs(pool, rounds, len(rows))
+    runs = views_in_runs(pool, rounds, rows)
+    return tuple(sorted({view for views in runs.values() for view in views}))

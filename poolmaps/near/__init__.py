@@ -1,0 +1,1 @@
+"""Near agreement: outputs that differ by one step at most."""

@@ -1,0 +1,1 @@
+"""Tasks, rules that do them, and the search for rules."""
