@@ -39,6 +39,20 @@ FUNCTIONS = {
     "near.middles": """rootless(pool) near_ever(pool) middle_rounds(size,most) middle_map(pool,rounds,most)""",
     "tasks.tasks": "agreement_task(size,values=2) near_task(size,most) choice_task(size,many)",
     "tasks.rules": "does(rule,task) found_fault(rule,task) is_fault(rule,task,value)",
+    "tasks.search": """can_do(pool,task,rounds) made_rule(pool,task,rounds) refusal(pool,task,rounds)
+        is_refusal(pool,task,rounds,value) least_for(pool,task,*,most=3)""",
+    "pairs.graphs": """row_parts(task,row) way_length(task,row,one,other) shortest_way(task,row,one,other)
+        is_way(task,row,one,other,value)""",
+    "pairs.ever": """pair_kind(pool) can_ever(pool,task) least_ever(pool,task) pair_certificate(pool,task)
+        is_pair_certificate(pool,task,value) pair_refusal(pool,task,*,rounds=None)
+        is_pair_refusal(pool,task,value,*,rounds=None) pair_rule(pool,task,rounds)""",
+    "counts.signs": """blocks_of(web) web_sign(web) word_sign(size,word) is_hidden(size,word,thread)
+        partner_word(size,word,thread) partner_way(size,one,other) is_partner_way(size,value)""",
+    "counts.rainbows": """rainbows(choice) rainbow(choice) is_rainbow(choice,value) rainbow_total(choice)
+        picked_numbers(choice) choice_of(rule)""",
+    "counts.names": """pattern_of(size,word,thread) patterns(size,rounds) rank_rule(size) is_unlike(rule) clash(rule)
+        is_clash(rule,value) as_rule(rule,rows) names_task(size,names,inputs) triangle(rule,group)
+        is_barred(size,names) barring_group(size,names)""",
 }
 METHODS = {
     ("base.webs", "Web"): """__init__(self,heard,marks=None) signal(self,thread) hears(self,thread)
@@ -57,6 +71,14 @@ METHODS = {
         without_row(self,row) is_easier(self,other) replaced(self,outputs) renumbered(self,numbers)""",
     ("tasks.rules", "Rule"): """__init__(self,pool,rounds,outputs) outcome(self,row,word)
         lengthened(self,more,task) for_pool(self,pool) replaced(self,outputs) with_output(self,view,output)""",
+    ("tasks.search", "Chooser"): """__init__(self,pool,task,rounds) choose(self,view,output) options(self,view)
+        undo(self,*,many=1) rule(self) twin(self)""",
+    ("pairs.ever", "Choosing"): """__init__(self,pool,task,*,rounds=None) choices(self,thread,entry)
+        give(self,thread,entry,output) undo(self,*,many=1) twin(self)""",
+    ("counts.rainbows", "Choice"): """__init__(self,size,rounds,picks) picked_by(self,word)
+        with_pick(self,thread,number,picked)""",
+    ("counts.names", "OrderRule"): """__init__(self,size,rounds,names) names_in(self,many,word) mapped(self,table)
+        for_fewer(self,size)""",
 }
 SIGNS = {
     "Web": ("__contains__", "__len__", "__eq__", "__str__"),
@@ -66,6 +88,10 @@ SIGNS = {
     "Middles": ("__len__", "__eq__", "__str__"),
     "Task": ("__getitem__", "__contains__", "__iter__", "__len__", "__and__", "__eq__", "__str__"),
     "Rule": ("__getitem__", "__contains__", "__iter__", "__len__", "__eq__", "__str__"),
+    "Chooser": ("__len__", "__eq__", "__str__"),
+    "Choosing": ("__len__", "__eq__", "__str__"),
+    "Choice": ("__len__", "__eq__", "__str__"),
+    "OrderRule": ("__len__", "__eq__", "__str__"),
 }
 PROPERTIES = {
     "Web": ("heard", "marks", "size", "signals", "roots", "is_marked"),
@@ -75,6 +101,10 @@ PROPERTIES = {
     "Middles": ("fractions", "word", "blocks", "spread", "block"),
     "Task": ("size", "rows", "table"),
     "Rule": ("pool", "rounds", "views", "table"),
+    "Chooser": ("settled", "open_views"),
+    "Choosing": ("outs", "lacking", "stuck"),
+    "Choice": ("size", "rounds", "picks"),
+    "OrderRule": ("size", "rounds", "names", "greatest"),
 }
 CONSTANTS = {"base.pools": {"MAX_WEBS": 80}, "known.words": {"MAX_ROUNDS": 6},
              "known.sights": {"MAX_WORDS": 3000, "MAX_RUNS": 4000}}

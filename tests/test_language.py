@@ -24,6 +24,7 @@ STATEMENTS = (
     ast.Assign, ast.AugAssign, ast.If, ast.While, ast.For, ast.Return, ast.Break, ast.Continue, ast.Pass, ast.Raise,
     ast.Assert, ast.Delete, ast.Expr, ast.FunctionDef,
 )
+LIBRARY = {"heapq": {"heappush", "heappop"}, "math": {"comb", "gcd"}}
 LISTS_ONLY = ("any", "all", "min", "max", "sum", "sorted")
 
 
@@ -101,7 +102,10 @@ class LanguageTest(TestCase):
             ahead[name] = set()
             for node in ast.walk(tree):
                 self.assertNotIsInstance(node, ast.Import, path)
-                if isinstance(node, ast.ImportFrom):
+                if isinstance(node, ast.ImportFrom) and node.module in LIBRARY:
+                    self.assertTrue({alias.name for alias in node.names} <= LIBRARY[node.module], path)
+                    self.assertTrue(node in tree.body and not [alias for alias in node.names if alias.asname], path)
+                elif isinstance(node, ast.ImportFrom):
                     self.assertEqual((node.level, node.module.split(".")[0], node in tree.body), (0, "poolmaps", True))
                     target = self.trees[ROOT.joinpath(*node.module.split(".")).with_suffix(".py")]
                     own = {each.name for each in target.body if isinstance(each, (ast.FunctionDef, ast.ClassDef))}
@@ -173,7 +177,8 @@ class LanguageTest(TestCase):
             if not isinstance(node, ast.Call):
                 continue
             if isinstance(node.func, ast.Name):
-                self.assertIn(node.func.id, BUILTINS | own | self.classes, place)
+                library = {name for names in LIBRARY.values() for name in names}
+                self.assertIn(node.func.id, BUILTINS | own | self.classes | library, place)
                 if node.func.id not in own | self.classes:
                     self.assertFalse(node.keywords, place)
                 if node.func.id in LISTS_ONLY and node.args:

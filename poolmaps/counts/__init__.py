@@ -1,0 +1,1 @@
+"""Counting in snap pools: signs of words, rainbows, names by order."""

@@ -1,0 +1,1 @@
+"""Tasks of two threads, for every number of rounds."""

@@ -1,0 +1,1 @@
+"""Puzzles: outputs for places that have to fit together."""

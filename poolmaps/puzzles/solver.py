@@ -1,0 +1,159 @@
+"""The search for outputs of all places of a puzzle.
+
+Whenever an output is given to a place, the outputs that fit nowhere any more are left out of the domains
+of the other places. Each decision has a level. For each domain it is kept of which levels it comes, so
+that a conflict leads back to the last decision that has to do with it, and not to others in between.
+"""
+
+from heapq import heappop, heappush
+
+from poolmaps.known.chains import classes_of
+from poolmaps.puzzles.fits import is_single, outputs_of
+
+FINE = 1000
+
+
+class Solver:
+    """One search. Sets of levels are told by the bits of integers."""
+
+    def __init__(self, puzzle, domains, hints):
+        self._puzzle = puzzle
+        self.domains = list(domains)
+        self._hints = hints
+        self._causes = [0] * len(self.domains)
+        self._trail = []
+        self._decisions = []
+        self._queue = []
+        self.weights = [1 + len(ties) for ties in puzzle.ties_at]
+        self._lengths = {}
+
+    def has_solution(self):
+        """Whether there is a solution; if so, each domain has one output behind this call."""
+        if not all(self.domains) or self.conflict_from(list(range(len(self._puzzle.ties)))) is not None:
+            return False
+        for part in self.open_parts():
+            for place in part:
+                self.line_up(place)
+            if not self.has_solved_part():
+                return False
+        return True
+
+    def open_parts(self):
+        """The groups of places without a single output that ties join, the smallest ones first."""
+        labels = {
+            place: [(tie,) for tie in ties]
+            for place, ties in enumerate(self._puzzle.ties_at) if not is_single(self.domains[place])
+        }
+        return [part for _, part in sorted([(len(part), part) for part in classes_of(labels)])]
+
+    def has_solved_part(self):
+        """Whether the places that are lined up can all get an output."""
+        place = self.next_place()
+        while place is not None:
+            self.decide(place)
+            conflict = self.conflict_from(self._puzzle.ties_at[place])
+            while conflict is not None:
+                if conflict == 0:
+                    return False
+                conflict = self.conflict_behind(conflict)
+            place = self.next_place()
+        return True
+
+    def rank(self, place):
+        """How urgent a decision is: the less outputs and the more conflicts so far, the less is the rank."""
+        domain = self.domains[place]
+        if domain not in self._lengths:
+            self._lengths[domain] = len(outputs_of(domain))
+        return self._lengths[domain] * FINE // self.weights[place]
+
+    def line_up(self, place):
+        """Puts a place into the queue, unless it has a single output."""
+        if not is_single(self.domains[place]):
+            heappush(self._queue, (self.rank(place), place))
+
+    def next_place(self):
+        """The place that is most urgent, or None. A place can stand in the queue with an elder rank."""
+        while self._queue:
+            rank, place = heappop(self._queue)
+            if not is_single(self.domains[place]):
+                if rank == self.rank(place):
+                    return place
+                self.line_up(place)
+        return None
+
+    def reduce(self, place, domain, cause):
+        """Gives a place a lesser domain, which comes of these levels."""
+        self._trail.append((place, self.domains[place], self._causes[place]))
+        self.domains[place] = domain
+        self._causes[place] = cause
+
+    def decide(self, place):
+        """Gives a place an output, the one that is hinted at if it is left."""
+        level = len(self._decisions)
+        domain = self.domains[place]
+        chosen = domain & self._hints[place]
+        if chosen == 0:
+            chosen = domain & -domain
+        self._decisions.append((place, chosen, len(self._trail)))
+        self.reduce(place, chosen, 1 << level)
+
+    def go_back(self, level):
+        """Takes back all decisions from this level on."""
+        kept = self._decisions[level][2]
+        for place, domain, cause in self._trail[kept:][::-1]:
+            self.domains[place] = domain
+            self._causes[place] = cause
+            self.line_up(place)
+        self._trail = self._trail[:kept]
+        self._decisions = self._decisions[:level]
+
+    def conflict_behind(self, conflict):
+        """The next conflict if the last decision of this one is taken back and its output left out, or None."""
+        level = conflict.bit_length() - 1
+        place, chosen, _ = self._decisions[level]
+        self.go_back(level)
+        self.reduce(place, self.domains[place] ^ chosen, self._causes[place] | conflict ^ 1 << level)
+        if self.domains[place] == 0:
+            return self._causes[place]
+        self.line_up(place)
+        return self.conflict_from(self._puzzle.ties_at[place])
+
+    def causes_at(self, tie):
+        """The levels of which the domains at the tie come."""
+        causes = 0
+        for place in self._puzzle.ties[tie][0]:
+            causes = causes | self._causes[place]
+        return causes
+
+    def conflict_from(self, ties):
+        """Looks ahead from these ties; the levels of a conflict, or None if there is none."""
+        queue = list(ties)
+        waiting = {tie: True for tie in queue}
+        at = 0
+        while at < len(queue):
+            tie = queue[at]
+            at += 1
+            waiting[tie] = False
+            rows = self._puzzle.rows_left(tie, self.domains)
+            if rows == 0:
+                for place in self._puzzle.ties[tie][0]:
+                    self.weights[place] += 1
+                return self.causes_at(tie)
+            causes = self.causes_at(tie)
+            narrow = self._puzzle.narrowed(tie, self.domains, rows)
+            for place, domain in narrow:
+                self.reduce(place, domain, causes)
+                self.line_up(place)
+                for other in self._puzzle.ties_at[place]:
+                    if other != tie and not waiting.get(other, False):
+                        waiting[other] = True
+                        queue.append(other)
+        return None
+
+
+def solved(puzzle, domains, hints):
+    """The list of outputs of a solution with outputs in these domains, or None if there is none."""
+    solver = Solver(puzzle, domains, hints)
+    if not solver.has_solution():
+        return None
+    return [domain.bit_length() - 1 for domain in solver.domains]
