@@ -110,10 +110,15 @@ class Case(TestCase):
             self.assertIs(type(call(*args, value)), bool)
 
 
-KEPT = {"InvalidNumber": "given", "TooMany": "limit", "NothingToUndo": "many"}
+KEPT = {
+    "InvalidNumber": "given", "TooMany": "limit", "NothingToUndo": "many", "Refused": "claim", "UnknownName": "wanted",
+}
 
 
 # Small pools, gone through one after the other.
+
+SNAPS = {size: snap_pool(size) for size in range(1, 5)}
+
 
 def all_webs(size):
     """All webs without marks."""

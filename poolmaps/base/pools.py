@@ -167,8 +167,9 @@ def partings(threads):
 def snap_pool(size):
     """The pool of the webs of all ordered partings of so many threads."""
     check_number(size, 1, MAX_SNAP)
-    hearings = sorted([parting_web(blocks).heard for blocks in partings(list(range(size)))])
-    return Pool(tuple([Web(heard) for heard in hearings]))
+    webs = [parting_web(blocks) for blocks in partings(list(range(size)))]
+    by_heard = {web.heard: web for web in webs}
+    return Pool(tuple([by_heard[heard] for heard in sorted(by_heard)]))
 
 
 def star_pool(size):

@@ -2,14 +2,14 @@
 
 from math import comb, gcd
 
-from poolmaps.base.checks import are_ascending, check_number, is_number
-from poolmaps.base.pools import check_thread, snap_pool
+from poolmaps.base.checks import are_ascending, are_numbers, check_number, is_number
+from poolmaps.base.pools import MAX_WEBS, check_thread, snap_pool
 from poolmaps.counts.signs import check_size, product_of_signs, signs_of, snap_for
 from poolmaps.errors import InvalidOperation, InvalidRule, InvalidWord, TooMany
 from poolmaps.known.sights import (
     MAX_ROWS, all_rows, check_few_runs, check_few_words, is_row_tuple, views_in_runs,
 )
-from poolmaps.known.words import all_words, check_rounds, check_word, is_word
+from poolmaps.known.words import all_words, check_rounds, check_word
 from poolmaps.tasks.rules import Rule
 from poolmaps.tasks.tasks import Task, check_few_rights
 
@@ -135,10 +135,14 @@ class OrderRule:
         """The name of a pattern that is checked already."""
         return self._names[pattern]
 
+    def has_word(self, many, word):
+        """Whether the value is a word of the snap pool of so many threads with the rounds of the rule."""
+        return are_numbers(word, 0, MAX_WEBS - 1) and (many, word) in self._by_word
+
     def names_in(self, many, word):
         """The names of the threads behind a word of the snap pool of so many threads."""
         check_number(many, 1, self._size)
-        if not is_word(snap_pool(many), word) or len(word) != self._rounds:
+        if not self.has_word(many, word):
             raise InvalidWord("this is no word of the snap pool with so many rounds")
         return tuple([self._names[pattern] for pattern in self._by_word[(many, word)]])
 
@@ -225,7 +229,7 @@ def is_clash(rule, value):
     if not isinstance(value, tuple) or len(value) != 3 or not is_number(value[0], 1, rule.size):
         return False
     many, word, threads = value
-    if not is_word(snap_pool(many), word) or len(word) != rule.rounds:
+    if not rule.has_word(many, word):
         return False
     if not are_ascending(threads, 0, many - 1) or len(threads) != 2:
         return False

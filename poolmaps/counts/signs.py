@@ -94,11 +94,12 @@ def turned_web(web, thread):
     return parting_web((*blocks[:place], joined, *blocks[place + 2:]))
 
 
-def partners_in(pool):
-    """A dict from the pairs (index, thread) of a heard thread to the index of the turned web."""
+def partners_in(pool, words):
+    """A dict from the pairs (index, thread) of a heard thread to the index of the turned web, for these words."""
     return {
-        (index, thread): pool.index_of(turned_web(web, thread))
-        for index, web in enumerate(pool.webs) for thread in range(pool.size) if is_heard(web, thread)
+        (index, thread): pool.index_of(turned_web(pool.webs[index], thread))
+        for index in sorted({index for word in words for index in word})
+        for thread in range(pool.size) if is_heard(pool.webs[index], thread)
     }
 
 
@@ -118,7 +119,7 @@ def partner_of(partners, word, thread):
 def partner_word(size, word, thread):
     """The only other word behind which each other thread has the same sight, or None."""
     pool = check_word_and_thread(size, word, thread)
-    return partner_of(partners_in(pool), word, thread)
+    return partner_of(partners_in(pool, [word]), word, thread)
 
 
 def without_thread(numbers, thread):
@@ -146,7 +147,7 @@ def is_partner_way(size, value):
     pool = snap_for(size)
     if not isinstance(value, tuple) or not value or not all([is_word(pool, word) for word in value]):
         return False
-    partners = partners_in(pool)
+    partners = partners_in(pool, value)
     for at in range(1, len(value)):
         if value[at] not in [partner_of(partners, value[at - 1], thread) for thread in range(size)]:
             return False

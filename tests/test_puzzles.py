@@ -1,0 +1,86 @@
+"""The helper of the searches: fits, the solver and refuting trees, against all ways to give outputs."""
+
+from itertools import product
+from random import Random
+from unittest import TestCase
+
+from poolmaps.puzzles.fits import Fit, Puzzle, domain_of, is_single, outputs_of
+from poolmaps.puzzles.solver import Solver, solved
+from poolmaps.puzzles.trees import Grower, nodes_of, refutes, refuting_nodes
+
+
+def drawn_puzzle(drawn, most=6):
+    """A small puzzle, and its ties with the rows that fit."""
+    places = drawn.randrange(1, most + 1)
+    menus = [tuple(sorted(drawn.sample(range(5), drawn.randrange(1, 4)))) for _ in range(places)]
+    ties = []
+    for _ in range(drawn.randrange(0, 8)):
+        bound = tuple(drawn.sample(range(places), drawn.randrange(1, min(3, places) + 1)))
+        rows = list(product(*[menus[place] for place in bound]))
+        ties.append((bound, sorted(drawn.sample(rows, drawn.randrange(1, len(rows) + 1)))))
+    return menus, ties, Puzzle(menus, [(bound, Fit(rows)) for bound, rows in ties])
+
+
+def all_solutions(menus, ties):
+    return [
+        outputs for outputs in product(*menus)
+        if all(tuple(outputs[place] for place in bound) in rows for bound, rows in ties)
+    ]
+
+
+def plain(nodes):
+    """Told nodes, as the judge takes them."""
+    return [node if node[0] == "ask" else ("stop", (node[1],)) for node in nodes]
+
+
+class PuzzlesTest(TestCase):
+    def test_domains(self):
+        for outputs in ([], [0], [3], [0, 99], [1, 2, 50]):
+            self.assertEqual(outputs_of(domain_of(outputs)), outputs)
+            self.assertIs(is_single(domain_of(outputs)), len(outputs) < 2)
+
+    def test_solver_and_trees(self):
+        drawn = Random(31)
+        refuted = 0
+        for _ in range(900):
+            menus, ties, puzzle = drawn_puzzle(drawn)
+            domains = [domain_of(drawn.sample(menu, drawn.randrange(1, len(menu) + 1))) for menu in menus]
+            solutions = all_solutions(menus, ties)
+            within = [told for told in solutions if all(domains[at] >> part & 1 for at, part in enumerate(told))]
+            for hints in ([0] * len(menus), [1 << drawn.choice(menu) for menu in menus]):
+                told = solved(puzzle, domains, hints)
+                self.assertEqual(told is not None, bool(within))
+                self.assertTrue(told is None or tuple(told) in within)
+            solver = Solver(puzzle, puzzle.full, [0] * len(menus))
+            self.assertIs(solver.has_solution(), bool(solutions))
+            if not solutions:
+                refuted += 1
+                for steepness, width in ((1, 1), (4, 1), (2, 3)):
+                    nodes = nodes_of(Grower(puzzle, solver.weights, steepness, width).tree())
+                    self.assertTrue(refutes(puzzle, plain(nodes)))
+                    self.checks_tree(menus, ties, nodes)
+                self.checks_tree(menus, ties, refuting_nodes(puzzle, solver.weights))
+        self.assertGreater(refuted, 50)
+
+    def checks_tree(self, menus, ties, nodes):
+        """Each way to give outputs leads to a stop at a tie that it breaks."""
+        for outputs in product(*menus):
+            at = 0
+            while nodes[at][0] == "ask":
+                at = dict(nodes[at][2])[outputs[nodes[at][1]]]
+            bound, rows = ties[nodes[at][1]]
+            self.assertNotIn(tuple(outputs[place] for place in bound), rows)
+
+    def test_conflicts_lead_back_over_what_has_nothing_to_do_with_them(self):
+        differ = [(a, b) for a in range(3) for b in range(3) if a != b]
+        menus, ties = [], []
+        for group in range(30):
+            places = range(4 * group, 4 * group + 4)
+            menus += [(0, 1, 2)] * 4
+            ties += [((one, other), Fit(differ)) for one in places for other in places
+                     if one < other and (group == 29 or (one, other) != (4 * group, 4 * group + 1))]
+        puzzle = Puzzle(menus, ties)
+        self.assertIsNone(solved(puzzle, puzzle.full, [0] * len(menus)))
+        self.assertIsNotNone(solved(Puzzle(menus[:-4], ties[:-6]), puzzle.full[:-4], [0] * (len(menus) - 4)))
+        chained = Puzzle(menus, [*ties, *[((at, at + 4), Fit(list(product(range(3), repeat=2)))) for at in range(116)]])
+        self.assertIsNone(solved(chained, chained.full, [0] * len(menus)))
