@@ -39,6 +39,12 @@ def starred_indices(tree):
         if isinstance(node, ast.Subscript) and any(isinstance(part, ast.Starred) for part in ast.walk(node.slice))]
 
 
+def targets_of(comprehension):
+    """The names that a comprehension assigns."""
+    return {
+        node.id for part in comprehension.generators for node in ast.walk(part.target) if isinstance(node, ast.Name)}
+
+
 def bound_in(function):
     """All names that a function binds: parameters, targets and those of comprehensions."""
     names = {arg.arg for arg in [*function.args.args, *function.args.kwonlyargs]}
@@ -185,6 +191,34 @@ class LanguageTest(TestCase):
                     self.assertNotIsInstance(node.args[0], ast.GeneratorExp, place)
             else:
                 self.assertIn(node.func.attr, METHODS | self.methods | {"__init__"}, place)
+
+    def test_views_of_dicts_do_not_stand_in_set(self):
+        for place, node in self.nodes():
+            if is_call(node, "set") and node.args and isinstance(node.args[0], ast.Call):
+                self.assertNotIn(getattr(node.args[0].func, "attr", ""), ("values", "items", "keys"), place)
+
+    def test_inner_comprehensions_have_names_of_their_own(self):
+        kinds = (ast.ListComp, ast.SetComp, ast.DictComp)
+        for path, _, function in self.functions():
+            told = [node for node in ast.walk(function) if isinstance(node, kinds)]
+            inside = {id(part) for each in told for part in ast.walk(each)}
+            names = {arg.arg for arg in function.args.args}
+            names |= {node.id for node in ast.walk(function)
+                      if isinstance(node, ast.Name) and isinstance(node.ctx, ast.Store) and id(node) not in inside}
+            for outer in told:
+                for inner in [node for node in ast.walk(outer) if isinstance(node, kinds) and node is not outer]:
+                    clash = targets_of(inner) & (targets_of(outer) | names)
+                    self.assertFalse(clash - {"_"}, (path, inner.lineno, clash))
+
+    def test_methods_properties_and_attributes_have_different_names(self):
+        methods, properties, attributes = set(), set(), set()
+        for _, _, function in self.functions():
+            if function.args.args and function.args.args[0].arg == "self":
+                (properties if function.decorator_list else methods).add(function.name)
+                attributes |= {node.attr for node in ast.walk(function)
+                               if isinstance(node, ast.Attribute) and isinstance(node.ctx, ast.Store)}
+        for one, other in ((methods, properties), (methods, attributes), (properties, attributes)):
+            self.assertFalse(one & other)
 
     def test_sets_stand_in_sorted_and_len_alone(self):
         for place, node in self.nodes():

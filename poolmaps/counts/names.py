@@ -154,7 +154,7 @@ class OrderRule:
 
     def mapped(self, table):
         """The rule with other names, by a dict from just all names that it has."""
-        there = sorted(set(self._names.values()))
+        there = sorted(set(list(self._names.values())))
         if not isinstance(table, dict) or not all([is_number(name, 1, MAX_NAME) for name in table]):
             raise InvalidOperation("this is no dict from the names of the rule")
         if sorted(table) != there or not all([is_number(name, 1, MAX_NAME) for name in table.values()]):

@@ -98,7 +98,7 @@ def partners_in(pool, words):
     """A dict from the pairs (index, thread) of a heard thread to the index of the turned web, for these words."""
     return {
         (index, thread): pool.index_of(turned_web(pool.webs[index], thread))
-        for index in sorted({index for word in words for index in word})
+        for index in sorted({each for word in words for each in word})
         for thread in range(pool.size) if is_heard(pool.webs[index], thread)
     }
 

@@ -37,7 +37,7 @@ def knows_alone(view, entry):
 def tie_labels(pool, rounds):
     """A dict from all views, ascending, to the lists of their runs, each as a label that ties views."""
     runs = binary_runs(pool, rounds)
-    labels = {view: [] for view in sorted({view for views in runs.values() for view in views})}
+    labels = {view: [] for view in sorted({each for told in runs.values() for each in told})}
     for run, views in runs.items():
         for view in views:
             labels[view].append((run,))

@@ -196,7 +196,7 @@ def outputs_of_part(task, row, labels, part, one, other):
 def outputs_in_row(pool, task, rounds, row, one, other):
     """The outputs of all views of a row, if its lone views have the outputs one and other."""
     runs = views_in_runs(pool, rounds, (row,))
-    labels = {view: [] for view in sorted({view for views in runs.values() for view in views})}
+    labels = {view: [] for view in sorted({each for told in runs.values() for each in told})}
     if rounds == 0 or pair_kind(pool) == "silent":
         return {view: (one, other)[view[0]] for view in labels}
     for run, views in runs.items():
@@ -204,7 +204,8 @@ def outputs_in_row(pool, task, rounds, row, one, other):
             labels[view].append((run,))
     outputs = {}
     for part in classes_of(labels):
-        outputs.update(outputs_of_part(task, row, labels, part, one, other))
+        for view, output in outputs_of_part(task, row, labels, part, one, other).items():
+            outputs[view] = output
     return outputs
 
 
@@ -218,7 +219,9 @@ def pair_rule(pool, task, rounds):
     check_few_runs(pool, rounds, len(task))
     outputs = {}
     for row in task.rows:
-        outputs.update(outputs_in_row(pool, task, rounds, row, chosen[(0, row[0])], chosen[(1, row[1])]))
+        one, other = chosen[(0, row[0])], chosen[(1, row[1])]
+        for view, output in outputs_in_row(pool, task, rounds, row, one, other).items():
+            outputs[view] = output
     return Rule(pool, rounds, outputs)
 
 

@@ -38,7 +38,7 @@ class LoneSetting:
         self.places = {entry: place for place, entry in enumerate(self.entries)}
         self.menus = [
             tuple(sorted({
-                output for row in task.rows if row[thread] == value for output in outputs_at(task, row, thread)
+                output for each in task.rows if each[thread] == value for output in outputs_at(task, each, thread)
             }))
             for thread, value in self.entries
         ]

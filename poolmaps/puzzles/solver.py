@@ -44,7 +44,7 @@ class Solver:
             place: [(tie,) for tie in ties]
             for place, ties in enumerate(self._puzzle.ties_at) if not is_single(self.domains[place])
         }
-        return [part for _, part in sorted([(len(part), part) for part in classes_of(labels)])]
+        return [part for _, part in sorted([(len(each), each) for each in classes_of(labels)])]
 
     def has_solved_part(self):
         """Whether the places that are lined up can all get an output."""

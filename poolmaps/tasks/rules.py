@@ -103,7 +103,7 @@ class Rule:
 
     def replaced(self, outputs):
         """The rule with all outputs replaced."""
-        if not is_replacement(outputs, sorted(set(self._table.values()))):
+        if not is_replacement(outputs, sorted(set(list(self._table.values())))):
             raise InvalidOperation("these are not just the outputs that occur")
         return Rule(self._pool, self._rounds, {view: outputs[output] for view, output in self._table.items()})
 
