@@ -81,7 +81,7 @@ class LoneSetting:
         for entry, output in given.items():
             domains[self.places[entry]] = domain_of([output])
         for row, ties in self.ties_by_row.items():
-            if any([self.puzzle.rows_left(tie, domains) == 0 for tie in ties]):
+            if any([self.puzzle.is_dead(tie, domains) for tie in ties]):
                 return row
         return None
 

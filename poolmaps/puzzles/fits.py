@@ -38,31 +38,20 @@ class Fit:
             for position, output in enumerate(row):
                 self._bearing[position][output] = self._bearing[position].get(output, 0) | 1 << number
         self._covers = [{} for _ in self._bearing]
-        self._remains = [{} for _ in self._bearing]
+        self._kept = {}
 
     def cover(self, position, domain):
         """The rows whose output at this position is in the domain."""
-        kept = self._covers[position]
-        if domain not in kept:
-            if len(kept) > MAX_KEPT:
-                kept.clear()
+        covers = self._covers[position]
+        if domain not in covers:
+            if len(covers) > MAX_KEPT:
+                covers.clear()
             rows = 0
             for output, bearing in self._bearing[position].items():
                 if domain >> output & 1:
                     rows = rows | bearing
-            kept[domain] = rows
-        return kept[domain]
-
-    def remaining(self, position, rows):
-        """The domain of the outputs at this position in these rows."""
-        kept = self._remains[position]
-        if rows not in kept:
-            if len(kept) > MAX_KEPT:
-                kept.clear()
-            kept[rows] = domain_of([
-                output for output, bearing in self._bearing[position].items() if bearing & rows
-            ])
-        return kept[rows]
+            covers[domain] = rows
+        return covers[domain]
 
     def rows_within(self, domains):
         """The rows whose outputs are all in these domains, which are told position by position."""
@@ -70,6 +59,21 @@ class Fit:
         for position, domain in enumerate(domains):
             rows = rows & self.cover(position, domain)
         return rows
+
+    def remaining(self, rows):
+        """The tuple of the domains of the outputs in these rows."""
+        return tuple([
+            domain_of([output for output, told in bearing.items() if told & rows]) for bearing in self._bearing
+        ])
+
+    def narrowed(self, domains):
+        """The tuple of what is left of these domains, a tuple, in rows that fit; None if no row does."""
+        if domains not in self._kept:
+            if len(self._kept) > MAX_KEPT:
+                self._kept.clear()
+            rows = self.rows_within(domains)
+            self._kept[domains] = self.remaining(rows) if rows > 0 else None
+        return self._kept[domains]
 
 
 class Puzzle:
@@ -84,13 +88,20 @@ class Puzzle:
             for place in bound[0]:
                 self.ties_at[place].append(tie)
 
-    def rows_left(self, tie, domains):
-        """The rows that fit at a tie, by the domains of all places."""
+    def is_dead(self, tie, domains):
+        """Whether nothing fits at the tie, by the domains of all places."""
         places, fit = self.ties[tie]
-        return fit.rows_within([domains[place] for place in places])
+        return fit.rows_within([domains[place] for place in places]) == 0
 
-    def narrowed(self, tie, domains, rows):
-        """The list of the pairs (place, lesser domain) for the places at the tie that have less in these rows."""
+    def narrowed_at(self, tie, domains):
+        """The list of the pairs (place, lesser domain) for places at the tie, or None if nothing fits."""
         places, fit = self.ties[tie]
-        narrow = [(place, fit.remaining(position, rows)) for position, place in enumerate(places)]
-        return [(place, domain) for place, domain in narrow if domain != domains[place]]
+        before = tuple([domains[place] for place in places])
+        behind = fit.narrowed(before)
+        if behind is None:
+            return None
+        if behind == before:
+            return []
+        return [
+            (place, domain) for place, elder, domain in zip(places, before, behind) if domain != elder
+        ]

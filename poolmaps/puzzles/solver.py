@@ -134,13 +134,12 @@ class Solver:
             tie = queue[at]
             at += 1
             waiting[tie] = False
-            rows = self._puzzle.rows_left(tie, self.domains)
-            if rows == 0:
+            narrow = self._puzzle.narrowed_at(tie, self.domains)
+            if narrow is None:
                 for place in self._puzzle.ties[tie][0]:
                     self.weights[place] += 1
                 return self.causes_at(tie)
-            causes = self.causes_at(tie)
-            narrow = self._puzzle.narrowed(tie, self.domains, rows)
+            causes = self.causes_at(tie) if narrow else 0
             for place, domain in narrow:
                 self.reduce(place, domain, causes)
                 self.line_up(place)

@@ -55,10 +55,9 @@ class Grower:
             tie = queue[at]
             at += 1
             waiting[tie] = False
-            rows = self._puzzle.rows_left(tie, domains)
-            if rows == 0:
+            narrow = self._puzzle.narrowed_at(tie, domains)
+            if narrow is None:
                 return tie
-            narrow = self._puzzle.narrowed(tie, domains, rows)
             for place, domain in narrow:
                 domains[place] = domain
                 trail.append((place, tie))
