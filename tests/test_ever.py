@@ -11,12 +11,13 @@ from poolmaps.pairs.ever import (
     pair_rule,
 )
 from poolmaps.tasks.rules import does
-from poolmaps.tasks.search import can_do
+from poolmaps.tasks.search import can_do, refusal
 from poolmaps.tasks.tasks import Task, agreement_task, near_task
 from tests.support import (
     WRONG, Case, is_int, is_int_tuple, near_values, not_numbers, pair_pools, slow_run_views, wrong_where,
 )
 from tests.test_graphs import drawn_task, is_slow_way, outputs_at, slow_length
+from tests.test_search import many_rows_task, widened
 from tests.test_tasks import not_tasks
 
 PATH, PAIR, SILENT = pair_pool("RLB"), pair_pool("RL"), pair_pool("BN")
@@ -224,6 +225,16 @@ class EverTest(Case):
                 self.assertIs(is_pair_refusal(pool, task, value, rounds=rounds), is_slow_refusal(pool, task, value, rounds))
             self.judges(lambda value: is_pair_refusal(pool, task, value, rounds=rounds), [], [told[::-1], told * 2, list(told)])
         self.judges(is_pair_refusal, [pair_pool("B"), AGREE], [(("stop", (0, 1)),)])
+
+    def test_refusals_of_five_thousand_nodes_and_more(self):
+        pool, task = pair_pool("N"), many_rows_task()
+        told = refusal(pool, task, 0)
+        for many in (4999, 5000, 5001):
+            value = tuple(
+                ("ask", node[1][0], node[1][2][0][1], node[2]) if node[0] == "ask" else node[:2]
+                for node in widened(task, told, many))
+            self.assertEqual(len(value), many)
+            self.assertIs(is_pair_refusal(pool, task, value), many <= 5000)
 
     def test_rules(self):
         for pool, task in cases(73, 150):

@@ -7,6 +7,7 @@ from poolmaps.base.pools import Pool, pair_pool, snap_pool, star_pool
 from poolmaps.base.webs import Web, full_web, silent_web
 from poolmaps.errors import InvalidNumber, InvalidOperation, InvalidPool, TooMany
 from poolmaps.groups.bars import agree_in
+from poolmaps.known.sights import all_views
 from poolmaps.near.limits import (
     is_near_chain, is_near_map, near_chain, near_distances, near_least, near_limit, near_map,
 )
@@ -22,6 +23,12 @@ NO_MOST = (InvalidNumber, not_numbers(1, 999))
 # So many marks that two rounds have more than 3000 words; and 1001 runs in one row for one round.
 WIDE = Pool(tuple(silent_web(2).with_mark(0, mark) for mark in range(55)))
 LONG = Pool(tuple(full_web(5).with_mark(0, mark) for mark in range(12)))
+
+# Pools with high views that are farther from low ones than others.
+FARTHER = [
+    Pool((Web(((), (), (0,))), Web(((2,), (2,), ())), Web(((2,), (0,), (1,))))),
+    Pool((Web(((), (), (0,))), Web(((1, 2), (), (0,))), Web(((1, 2), (0, 2), ())))),
+]
 
 
 def slow_views(pool, rounds):
@@ -86,7 +93,7 @@ def slow_is_map(pool, rounds, most, value):
 
 
 def cases():
-    for pool in [*small_pools()[::3], pair_pool("RLBN"), star_pool(3), snap_pool(3)]:
+    for pool in [*small_pools()[::3], pair_pool("RLBN"), star_pool(3), snap_pool(3), *FARTHER]:
         for rounds in range(3 if len(pool.webs) < 4 else 2):
             yield pool, rounds
 
@@ -140,6 +147,8 @@ class LimitsTest(Case):
             for value in near_values(near_map(pool, rounds, most)):
                 self.assertIs(is_near_map(pool, rounds, most, value), slow_is_map(pool, rounds, most, value))
             self.judges(is_near_map, [pool, rounds, most])
+            more = {**near_map(pool, rounds, most), all_views(pool, rounds, ((5,) * pool.size,))[0]: 0}
+            self.assertIs(is_near_map(pool, rounds, most, more), False)
 
     def test_values_near_chains(self):
         for pool, rounds in ((PATH, 0), (PATH, 1), (star_pool(3), 0), (pair_pool("BN"), 1)):
@@ -157,9 +166,17 @@ class LimitsTest(Case):
         self.assertIs(is_near_chain(PATH, 1, (first, back) * 2499 + (first, *others)), False)
         self.assertIs(is_near_chain(PATH, 1, (first, back) * 2498 + (first, first, *others)), False)
         self.assertIs(is_near_chain(PATH, 1, (first, first, *others)), False)
+        idle = (first[0], first[1], first[3], first[3])
+        self.assertIs(is_near_chain(PATH, 1, (first, idle, *others)), False)
+        for entry in (0, 1, 2, 9):
+            told = is_near_chain(Pool((silent_web(3),)), 0, (((0, 1, entry), (), 0, 1),))
+            self.assertIs(told, entry < 2)
         five = Pool((silent_web(5),))
         one, other = ((0,) * 4 + (1,), (), 0, 4), ((0,) * 4 + (1,), (), 4, 0)
         self.assertIs(is_near_chain(five, 0, (one, other) * 2499 + (one,)), True)
+        lows = (((0,) * 4 + (1,), (), 0, 1), ((0,) * 4 + (1,), (), 1, 4))
+        self.assertIs(is_near_chain(five, 0, (one, other) * 2499 + lows), True)
+        self.assertIs(is_near_chain(five, 0, (one, other) * 2499 + (lows[0], (lows[0][0], (), 1, 0), one)), False)
         self.assertIs(is_near_chain(five, 0, (one, other, one) * 1666 + (one,)), False)
         self.assertIs(is_near_chain(five, 0, (one, other) * 2500 + (one,)), False)
 
@@ -203,6 +220,7 @@ class LimitsTest(Case):
                                   (10, 3, 3), (27, 6, 3), (81, 4, 4), (82, 4, None)):
             self.assertEqual(near_least(PATH, most, up_to=up_to), told)
         self.assertEqual((near_least(PAIR, 999), near_least(pair_pool("BN"), 2), near_least(PATH, 28)), (1, None, None))
+        self.assertEqual(near_least(PATH, 27), 3)
         self.assertEqual(near_least(WIDE, 1, up_to=6), 0)
         self.fails_keeping(TooMany, 3000, near_least, WIDE, 2)
         self.assertIsNone(near_least(WIDE, 2, up_to=1))

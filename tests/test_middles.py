@@ -181,6 +181,8 @@ class MiddlesTest(Case):
                 if rounds != middle_rounds(2, most):
                     self.fails(InvalidOperation, middle_map, PATH, rounds, most)
                 self.fails(InvalidOperation, middle_map, pair_pool("RN"), rounds, most)
+        self.fails_keeping(InvalidNumber, 0, middle_map, pair_pool("RN"), 1, 0)
+        self.fails_keeping(InvalidNumber, 7, middle_map, pair_pool("RN"), 7, 0)
         wide = Pool(tuple(full_web(2).with_mark(0, mark) for mark in range(55)))
         self.fails_keeping(TooMany, 3000, middle_map, wide, 2, 4)
         self.fails(InvalidOperation, middle_map, wide, 2, 2)

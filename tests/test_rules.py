@@ -210,7 +210,7 @@ class RuleTest(Case):
 
     def test_equality_and_sharing(self):
         rules = [first_heard(PATH, 1, AGREE), first_heard(PATH, 0, AGREE), first_heard(pair_pool("LRB"), 1, AGREE),
-                 Rule(PATH, 1, {}), Rule(PATH, 2, {}), first_heard(PATH, 1, AGREE).with_output((0, 0, ((0, 0),)), 5)]
+                 Rule(PATH, 1, {}), Rule(PATH, 2, {}), Rule(PAIR, 1, {}), first_heard(PATH, 1, AGREE).with_output((0, 0, ((0, 0),)), 5)]
         for at, one in enumerate(rules):
             for place, other in enumerate(rules):
                 self.assertIs(one == Rule(other.pool, other.rounds, other.table), at == place)

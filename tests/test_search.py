@@ -80,6 +80,39 @@ def slow_is_refusal(pool, task, rounds, value):
     return sorted(named) == list(range(1, len(value)))
 
 
+def many_rows_task():
+    """A task that cannot be done without hearing; questions for thread 0 have 2 branches, those for thread 1 have 3."""
+    rows = list(product(range(10), repeat=2))[:60]
+    table = {row: tuple((a, b) for a in (0, 1) for b in (0, 1, 2)) for row in rows}
+    return Task({**table, (0, 0): ((0, 0),), (0, 1): ((1, 0), (1, 1), (1, 2)), (1, 0): ((0, 1),), (1, 1): ((1, 0),)})
+
+
+def widened(task, told, many):
+    """A refusal with so many nodes, by questions that lead nowhere in the place of stops."""
+    nodes, asked, queue = list(told), {}, []
+    for number, node in enumerate(nodes):
+        before = asked.get(number, ())
+        if node[0] == "ask":
+            for _, target in node[2]:
+                asked[target] = (*before, node[1])
+        else:
+            queue.append(number)
+    twos = {0: 0, 2: 1, 1: 2}[(many - len(nodes)) % 3]
+    while len(nodes) < many:
+        thread, number = 0 if twos > 0 else 1, queue.pop(0)
+        twos -= 1
+        before, stop, branches = asked.get(number, ()), nodes[number], []
+        views = [(thread, 0, ((thread, entry),)) for entry in range(2, (6, 10)[thread])]
+        view = [view for view in views if view not in before][0]
+        for output in task.outputs(thread):
+            branches.append((output, len(nodes)))
+            asked[len(nodes)] = (*before, view)
+            queue.append(len(nodes))
+            nodes.append(stop)
+        nodes[number] = ("ask", view, tuple(branches))
+    return tuple(nodes)
+
+
 def drawn_task(drawn, size, inputs=2, outputs=2, most=4):
     rows = list(product(range(inputs), repeat=size))
     rows = drawn.sample(rows, drawn.randrange(1, min(most, len(rows)) + 1))
@@ -198,6 +231,14 @@ class SearchTest(Case):
         told = refusal(pair_pool("N"), task, 0)
         self.assertTrue(is_refusal(pair_pool("N"), task, 0, told))
 
+    def test_refusals_of_five_thousand_nodes_and_more(self):
+        pool, task = pair_pool("N"), many_rows_task()
+        told = refusal(pool, task, 0)
+        for many in (4998, 4999, 5000, 5001, 5002):
+            value = widened(task, told, many)
+            self.assertEqual(len(value), many)
+            self.assertIs(is_refusal(pool, task, 0, value), many <= 5000)
+
     def test_least_for(self):
         for pool, task in ((PATH, near_task(2, 3)), (PATH, near_task(2, 9)), (PAIR, AGREE), (PATH, AGREE), (PAIR, near_task(2, 1)),
                            (snap_pool(3), near_task(3, 2)), (star_pool(3), agreement_task(3))):
@@ -221,6 +262,8 @@ class SearchTest(Case):
         for call, more in ((can_do, []), (made_rule, []), (refusal, []), (is_refusal, [None]), (Chooser, [])):
             self.checks_arguments(call, [PATH, AGREE, 0, *more], [NO_POOLS, NO_TASKS, NO_ROUNDS, *[None for _ in more]])
             self.fails(InvalidOperation, call, WIDE, agreement_task(3), 2, *more)
+            for rounds in (-1, 7, True, None):
+                self.fails_keeping(InvalidNumber, rounds, call, WIDE, agreement_task(3), rounds, *more)
             self.fails_keeping(TooMany, 3000, call, WIDE, AGREE, 2, *more)
             full = Pool(tuple(full_web(2).with_mark(0, mark) for mark in range(33)))
             self.fails_keeping(TooMany, 4000, call, full, AGREE, 2, *more)

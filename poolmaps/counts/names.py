@@ -3,13 +3,13 @@
 from math import comb, gcd
 
 from poolmaps.base.checks import are_ascending, are_numbers, check_number, is_number
-from poolmaps.base.pools import MAX_WEBS, check_thread, snap_pool
-from poolmaps.counts.signs import check_size, product_of_signs, signs_of, snap_for
+from poolmaps.base.pools import MAX_SNAP, MAX_WEBS, check_thread, snap_pool
+from poolmaps.counts.signs import product_of_signs, signs_of
 from poolmaps.errors import InvalidOperation, InvalidRule, InvalidWord, TooMany
 from poolmaps.known.sights import (
     MAX_ROWS, all_rows, check_few_runs, check_few_words, is_row_tuple, views_in_runs,
 )
-from poolmaps.known.words import all_words, check_rounds, check_word
+from poolmaps.known.words import all_words, check_word
 from poolmaps.tasks.rules import Rule
 from poolmaps.tasks.tasks import Task, check_few_rights
 
@@ -48,7 +48,7 @@ def pattern_behind(pool, word, thread, ranks):
 
 def pattern_of(size, word, thread):
     """The pattern of the thread behind the word."""
-    pool = snap_for(size)
+    pool = snap_pool(size)
     check_word(pool, word)
     check_thread(pool, thread)
     return pattern_behind(pool, word, thread, list(range(size)))
@@ -71,9 +71,7 @@ def patterns_by_word(size, rounds):
 
 def check_size_and_rounds(size, rounds):
     """The errors of a size and a number of rounds, and TooMany for too many words."""
-    pool = snap_for(size)
-    check_rounds(pool, rounds)
-    check_few_words(pool, rounds)
+    check_few_words(snap_pool(size), rounds)
 
 
 def patterns(size, rounds):
@@ -191,7 +189,6 @@ def check_order_rule(rule):
 
 def rank_rule(size):
     """The order rule of one round that names a thread by how many it hears, and its place among them."""
-    check_size(size)
     names = {}
     for own, rows in patterns(size, 1):
         heard = len(rows[0][0][1])
@@ -260,7 +257,7 @@ def unlike_rows(size, parts):
 
 def names_task(size, names, inputs):
     """The task of taking unlike names up to `names`, for all rows of unlike inputs below `inputs`."""
-    check_size(size)
+    check_number(size, 1, MAX_SNAP)
     check_number(names, size, MAX_NAMED)
     check_number(inputs, size, MAX_NAMED)
     rows = unlike_rows(size, inputs)

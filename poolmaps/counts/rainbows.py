@@ -2,10 +2,10 @@
 
 from poolmaps.base.checks import are_numbers, check_number, is_number
 from poolmaps.base.pools import MAX_SNAP, snap_pool
-from poolmaps.counts.signs import product_of_signs, signs_of, snap_for
+from poolmaps.counts.signs import product_of_signs, signs_of
 from poolmaps.errors import InvalidNumber, InvalidOperation, InvalidRule, InvalidWord
 from poolmaps.known.sights import MAX_WORDS, check_few_words, known_by_sight, sight_table, views_behind
-from poolmaps.known.words import check_rounds, is_word, known_table
+from poolmaps.known.words import is_word, known_table
 from poolmaps.tasks.rules import check_rule
 
 
@@ -22,8 +22,7 @@ class Choice:
     """A thread that is picked for each sight, among those that are known with it. Choices never change."""
 
     def __init__(self, size, rounds, picks):
-        pool = snap_for(size)
-        check_rounds(pool, rounds)
+        pool = snap_pool(size)
         check_few_words(pool, rounds)
         self._pool = pool
         self._rounds = rounds

@@ -1,7 +1,6 @@
 """Signs of the words of snap pools, and words that all threads but one cannot tell apart."""
 
-from poolmaps.base.checks import check_number
-from poolmaps.base.pools import MAX_SNAP, check_thread, snap_pool
+from poolmaps.base.pools import check_thread, snap_pool
 from poolmaps.base.webs import Web, parting_web
 from poolmaps.errors import InvalidOperation, InvalidWeb
 from poolmaps.known.chains import shortest_chain
@@ -9,23 +8,12 @@ from poolmaps.known.sights import check_few_words, sight_table
 from poolmaps.known.words import check_word, is_word
 
 
-def check_size(size):
-    """Raises InvalidNumber for anything but the size of a snap pool."""
-    check_number(size, 1, MAX_SNAP)
-
-
-def snap_for(size):
-    """The snap pool of so many threads, with the error of the size."""
-    check_size(size)
-    return snap_pool(size)
-
-
 def hearing_classes(web):
-    """The tuple of the ascending blocks of threads that hear the same threads, those that hear fewest first."""
+    """The tuple of the ascending blocks of threads that hear equally many threads, those that hear fewest first."""
     classes = {}
-    for thread, signal in enumerate(web.signals):
-        classes.setdefault((len(signal[0]), signal[0]), []).append(thread)
-    return tuple([tuple(classes[key]) for key in sorted(classes)])
+    for thread, others in enumerate(web.heard):
+        classes.setdefault(len(others), []).append(thread)
+    return tuple([tuple(classes[many]) for many in sorted(classes)])
 
 
 def blocks_of(web):
@@ -59,7 +47,7 @@ def product_of_signs(signs, word):
 
 def word_sign(size, word):
     """The product of the signs of the webs of a word."""
-    pool = snap_for(size)
+    pool = snap_pool(size)
     check_word(pool, word)
     return product_of_signs(signs_of(pool), word)
 
@@ -71,7 +59,7 @@ def is_heard(web, thread):
 
 def check_word_and_thread(size, word, thread):
     """The errors of what asks for a thread behind a word; tells the pool."""
-    pool = snap_for(size)
+    pool = snap_pool(size)
     check_word(pool, word)
     check_thread(pool, thread)
     return pool
@@ -129,7 +117,7 @@ def without_thread(numbers, thread):
 
 def partner_way(size, one, other):
     """A tuple of words from one to the other, in which each next word is a partner of the word in front."""
-    pool = snap_for(size)
+    pool = snap_pool(size)
     check_word(pool, one)
     check_word(pool, other)
     if len(one) != len(other):
@@ -144,7 +132,7 @@ def partner_way(size, one, other):
 
 def is_partner_way(size, value):
     """Whether the value is a tuple of words in which each next word is a partner of the word in front."""
-    pool = snap_for(size)
+    pool = snap_pool(size)
     if not isinstance(value, tuple) or not value or not all([is_word(pool, word) for word in value]):
         return False
     partners = partners_in(pool, value)

@@ -172,7 +172,7 @@ def lone_view(views, thread):
 
 
 def outputs_on_path(task, row, labels, first, one, other, many):
-    """The outputs of the views on a path of so many ties between two lone views, by a way of the graph of the row."""
+    """The outputs of the views that at most so many ties join to a lone view, by a way to that of the other thread."""
     way = list(shortest_way(task, row, one, other))
     # A way can be made longer there and back.
     way = way + [way[-1]] * (many - len(way))
@@ -181,7 +181,10 @@ def outputs_on_path(task, row, labels, first, one, other, many):
 
 
 def outputs_of_part(task, row, labels, part, one, other):
-    """The outputs of the views of a row that runs join, if its lone views have the outputs one and other."""
+    """The outputs of the views of a row that runs join, if its lone views have the outputs one and other.
+
+    Runs join both lone views without a round, with a web in which nobody hears, and for the kind "path".
+    """
     first, second = lone_view(part, 0), lone_view(part, 1)
     if first is not None and second is not None:
         return outputs_on_path(task, row, {view: labels[view] for view in part}, first, one, other, len(part) - 1)
@@ -197,8 +200,6 @@ def outputs_in_row(pool, task, rounds, row, one, other):
     """The outputs of all views of a row, if its lone views have the outputs one and other."""
     runs = views_in_runs(pool, rounds, (row,))
     labels = {view: [] for view in sorted({each for told in runs.values() for each in told})}
-    if rounds == 0 or pair_kind(pool) == "silent":
-        return {view: (one, other)[view[0]] for view in labels}
     for run, views in runs.items():
         for view in views:
             labels[view].append((run,))

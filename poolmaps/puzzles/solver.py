@@ -11,6 +11,7 @@ from poolmaps.known.chains import classes_of
 from poolmaps.puzzles.fits import is_single, outputs_of
 
 FINE = 1000
+PATIENCE = 100
 
 
 class Solver:
@@ -47,7 +48,13 @@ class Solver:
         return [part for _, part in sorted([(len(each), each) for each in classes_of(labels)])]
 
     def has_solved_part(self):
-        """Whether the places that are lined up can all get an output."""
+        """Whether the places that are lined up can all get an output.
+
+        Behind ever more conflicts all decisions are taken back: what was learned of the weights of places
+        can lead to a better first decision.
+        """
+        first = len(self._decisions)
+        patience, conflicts = PATIENCE, 0
         place = self.next_place()
         while place is not None:
             self.decide(place)
@@ -55,7 +62,11 @@ class Solver:
             while conflict is not None:
                 if conflict == 0:
                     return False
+                conflicts += 1
                 conflict = self.conflict_behind(conflict)
+            if conflicts > patience and len(self._decisions) > first:
+                patience, conflicts = 2 * patience, 0
+                self.go_back(first)
             place = self.next_place()
         return True
 

@@ -6,7 +6,7 @@ from poolmaps.errors import InvalidOperation, InvalidRule, InvalidWord, UnknownN
 from poolmaps.known.sights import (
     check_few_runs, check_few_words, check_row, is_view, known_by_sight, sight_table, views_behind, views_in_runs,
 )
-from poolmaps.known.words import MAX_ROUNDS, check_rounds, is_word, known_table
+from poolmaps.known.words import MAX_ROUNDS, is_word, known_table
 from poolmaps.tasks.tasks import MAX_OUTPUT, check_sizes, check_task, is_replacement
 
 
@@ -21,7 +21,6 @@ class Rule:
     """Outputs for some views behind a number of rounds. Rules never change."""
 
     def __init__(self, pool, rounds, outputs):
-        check_rounds(pool, rounds)
         check_few_words(pool, rounds)
         self._pool = pool
         self._rounds = rounds

@@ -116,7 +116,6 @@ def least_for(pool, task, *, most=3):
     check_pool(pool)
     check_task(task)
     check_number(most, 0, MAX_ROUNDS)
-    check_sizes(pool, task)
     for rounds in range(most + 1):
         if can_do(pool, task, rounds):
             return rounds
