@@ -226,6 +226,14 @@ class EverTest(Case):
             self.judges(lambda value: is_pair_refusal(pool, task, value, rounds=rounds), [], [told[::-1], told * 2, list(told)])
         self.judges(is_pair_refusal, [pair_pool("B"), AGREE], [(("stop", (0, 1)),)])
 
+    def test_no_input_is_asked_twice_on_a_way(self):
+        for entry, told in ((0, False), (1, True)):
+            value = (
+                ("ask", 0, 0, ((0, 1), (1, 2))), ("ask", 1, 1, ((0, 3), (1, 4))), ("ask", 0, entry, ((0, 5), (1, 6))),
+                ("stop", (1, 1)), ("stop", (0, 1)), ("stop", (0, 0)), ("stop", (0, 0)))
+            self.assertIs(is_pair_refusal(PATH, AGREE, value), told)
+            self.assertIs(is_slow_refusal(PATH, AGREE, value, None), told)
+
     def test_refusals_of_five_thousand_nodes_and_more(self):
         pool, task = pair_pool("N"), many_rows_task()
         told = refusal(pool, task, 0)

@@ -7,10 +7,12 @@ from unittest import TestCase
 
 from poolmaps.base.pools import Pool, pair_pool, snap_pool
 from poolmaps.base.webs import Web
+from poolmaps.counts import names, rainbows, signs
 from poolmaps.groups import bars, closed, links, sieves
 from poolmaps.known import common, lots, sights, stories, words
 from poolmaps.near import limits, middles
-from poolmaps.tasks import rules
+from poolmaps.pairs import ever, graphs
+from poolmaps.tasks import rules, search
 from poolmaps.tasks.tasks import Task, agreement_task, near_task
 
 FUNCTIONS = {
@@ -187,16 +189,47 @@ def later_calls():
     ]
 
 
+def last_calls():
+    """The same for the search, tasks of two threads, and counting in snap pools."""
+    pool, pair, agree, near = pair_pool("RLB"), pair_pool("RL"), agreement_task(2), near_task(2, 3)
+    told, tree = search.refusal(pool, agree, 1), ever.pair_refusal(pool, agree)
+    picks = {key: key[0] for key in rainbows.Choice(2, 1, {(0, 0): 0, (0, 1): 1, (1, 0): 0, (1, 1): 1}).picks}
+    choice, ranks = rainbows.Choice(2, 1, picks), names.rank_rule(2)
+    rule = rules.Rule(snap_pool(2), 1, {
+        view: view[0] for view in sights.all_views(snap_pool(2), 1, ((0, 1),))})
+    certificate = ever.pair_certificate(pool, near)
+    return [
+        (search.can_do, pair, agree, 1), (search.made_rule, pair, agree, 1), (search.refusal, pool, agree, 1),
+        (search.is_refusal, pool, agree, 1, told), (search.least_for, pair, agree),
+        (graphs.row_parts, near, (0, 1)), (graphs.way_length, near, (0, 1), 0, 3),
+        (graphs.shortest_way, near, (0, 1), 0, 3), (graphs.is_way, near, (0, 1), 0, 0, ((0, 0),)),
+        (ever.pair_kind, pool), (ever.can_ever, pool, agree), (ever.least_ever, pool, near),
+        (ever.pair_certificate, pool, near), (ever.is_pair_certificate, pool, near, certificate),
+        (ever.pair_refusal, pool, agree), (ever.is_pair_refusal, pool, agree, tree), (ever.pair_rule, pool, near, 2),
+        (signs.blocks_of, pool[2]), (signs.web_sign, pool[2]), (signs.partner_way, 2, (0, 0), (1, 1)),
+        (signs.is_partner_way, 2, ((0,), (2,))), (choice.picked_by, (0,)), (choice.with_pick, 0, 1, 1), (len, choice),
+        (rainbows.rainbows, choice), (rainbows.rainbow, choice), (rainbows.is_rainbow, choice, (0,)),
+        (rainbows.rainbow_total, choice), (rainbows.picked_numbers, choice), (rainbows.choice_of, rule), (str, choice),
+        (rainbows.Choice, 2, 1, picks), (names.pattern_of, 2, (0,), 1), (names.patterns, 2, 1), (names.is_unlike, ranks),
+        (names.clash, ranks), (names.is_clash, ranks, (2, (0,), (0, 1))), (names.as_rule, ranks, ((0, 1), (1, 0))),
+        (names.triangle, ranks, (1, 2)), (ranks.names_in, 2, (0,)), (ranks.mapped, {1: 1, 2: 2, 3: 9}),
+        (ranks.for_fewer, 1), (str, ranks),
+    ]
+
+
+KEPT_OBJECTS = (Web, Pool, Task, rules.Rule, rainbows.Choice, names.OrderRule)
+
+
 class NothingChangesTest(TestCase):
     def test_calls_change_no_argument_and_are_equal_each_time(self):
-        for call, *args in [*calls(), *later_calls()]:
+        for call, *args in [*calls(), *later_calls(), *last_calls()]:
             passed = [getattr(call, "__self__", None), *args]
-            watched = [value for value in passed if isinstance(value, (Web, Pool, Task, rules.Rule, tuple, dict))]
+            watched = [value for value in passed if isinstance(value, (*KEPT_OBJECTS, tuple, dict))]
             before = deepcopy(watched)
             self.assertEqual(call(*args), call(*args))
             self.assertEqual(watched, before)
             for one, other in zip(watched, before):
-                if isinstance(one, (Web, Pool, Task, rules.Rule)):
+                if isinstance(one, KEPT_OBJECTS):
                     self.assertEqual(vars(one), vars(other))
 
     def test_equal_pools_give_equal_results(self):

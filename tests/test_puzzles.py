@@ -62,6 +62,26 @@ class PuzzlesTest(TestCase):
                 self.checks_tree(menus, ties, refuting_nodes(puzzle, solver.weights))
         self.assertGreater(refuted, 50)
 
+    def test_greater_puzzles(self):
+        drawn, rows = Random(109), list(product(range(3), repeat=3))
+        told = [0, 0]
+        for _ in range(60):
+            places, menus = 14, [(0, 1, 2)] * 14
+            ties = [(tuple(drawn.sample(range(places), 3)), sorted(drawn.sample(rows, 14))) for _ in range(23)]
+            puzzle = Puzzle(menus, [(bound, Fit(fitting)) for bound, fitting in ties])
+            solver = Solver(puzzle, puzzle.full, [0] * places)
+            if solver.has_solution():
+                outputs = [outputs_of(domain) for domain in solver.domains]
+                self.assertTrue(all(len(each) == 1 for each in outputs))
+                for bound, fitting in ties:
+                    self.assertIn(tuple(outputs[place][0] for place in bound), fitting)
+                told[1] += 1
+            else:
+                nodes = nodes_of(Grower(puzzle, solver.weights, 1, 1).tree())
+                self.assertTrue(refutes(puzzle, plain(nodes)))
+                told[0] += 1
+        self.assertGreater(min(told), 10)
+
     def checks_tree(self, menus, ties, nodes):
         """Each way to give outputs leads to a stop at a tie that it breaks."""
         for outputs in product(*menus):

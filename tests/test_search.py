@@ -231,6 +231,20 @@ class SearchTest(Case):
         told = refusal(pair_pool("N"), task, 0)
         self.assertTrue(is_refusal(pair_pool("N"), task, 0, told))
 
+    def test_no_view_is_asked_twice_on_a_way(self):
+        low, high = (0, 0, ((0, 0),)), (1, 0, ((1, 1),))
+        for again in (low, (1, 0, ((1, 0),))):
+            value = (
+                ("ask", low, ((0, 1), (1, 2))), ("ask", high, ((0, 3), (1, 4))), ("ask", again, ((0, 5), (1, 6))),
+                ("stop", (1, 1), ()), ("stop", (0, 1), ()), ("stop", (0, 0), ()), ("stop", (0, 0), ()))
+            self.assertIs(is_refusal(PAIR, AGREE, 0, value), again != low)
+            self.assertIs(slow_is_refusal(PAIR, AGREE, 0, value), again != low)
+        # A view that is asked again on another way is asked once only on each.
+        value = (
+            ("ask", low, ((0, 1), (1, 2))), ("ask", high, ((0, 3), (1, 4))), ("ask", high, ((0, 5), (1, 6))),
+            ("stop", (1, 1), ()), ("stop", (0, 1), ()), ("stop", (0, 0), ()), ("stop", (0, 0), ()))
+        self.assertIs(is_refusal(PAIR, AGREE, 0, value), True)
+
     def test_refusals_of_five_thousand_nodes_and_more(self):
         pool, task = pair_pool("N"), many_rows_task()
         told = refusal(pool, task, 0)

@@ -83,6 +83,7 @@ class Puzzle:
         self.menus = menus
         self.ties = ties
         self.full = [domain_of(menu) for menu in menus]
+        self.all_ties = {tie: True for tie in range(len(ties))}
         self.ties_at = [[] for _ in menus]
         for tie, bound in enumerate(ties):
             for place in bound[0]:
@@ -92,6 +93,31 @@ class Puzzle:
         """Whether nothing fits at the tie, by the domains of all places."""
         places, fit = self.ties[tie]
         return fit.rows_within([domains[place] for place in places]) == 0
+
+    def look_ahead(self, domains, trail, ties, within):
+        """Narrows the domains, from these ties on; the tie at which nothing fits, or None.
+
+        Only ties of the dict `within` count. The trail gets the triples of a place, its elder domain, and the
+        tie that narrowed it.
+        """
+        queue = list(ties)
+        waiting = {tie: True for tie in queue}
+        at = 0
+        while at < len(queue):
+            tie = queue[at]
+            at += 1
+            waiting[tie] = False
+            narrow = self.narrowed_at(tie, domains)
+            if narrow is None:
+                return tie
+            for place, domain in narrow:
+                trail.append((place, domains[place], tie))
+                domains[place] = domain
+                for other in self.ties_at[place]:
+                    if other != tie and other in within and not waiting.get(other, False):
+                        waiting[other] = True
+                        queue.append(other)
+        return None
 
     def narrowed_at(self, tie, domains):
         """The list of the pairs (place, lesser domain) for places at the tie, or None if nothing fits."""

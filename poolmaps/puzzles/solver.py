@@ -10,7 +10,7 @@ from heapq import heappop, heappush
 from poolmaps.known.chains import classes_of
 from poolmaps.puzzles.fits import is_single, outputs_of
 
-FINE = 1000
+FINE = 10 ** 9
 PATIENCE = 100
 
 
@@ -30,7 +30,7 @@ class Solver:
 
     def has_solution(self):
         """Whether there is a solution; if so, each domain has one output behind this call."""
-        if not all(self.domains) or self.conflict_from(list(range(len(self._puzzle.ties)))) is not None:
+        if not all(self.domains) or self.conflict_from(self._puzzle.all_ties) is not None:
             return False
         for part in self.open_parts():
             for place in part:
@@ -138,27 +138,17 @@ class Solver:
 
     def conflict_from(self, ties):
         """Looks ahead from these ties; the levels of a conflict, or None if there is none."""
-        queue = list(ties)
-        waiting = {tie: True for tie in queue}
-        at = 0
-        while at < len(queue):
-            tie = queue[at]
-            at += 1
-            waiting[tie] = False
-            narrow = self._puzzle.narrowed_at(tie, self.domains)
-            if narrow is None:
-                for place in self._puzzle.ties[tie][0]:
-                    self.weights[place] += 1
-                return self.causes_at(tie)
-            causes = self.causes_at(tie) if narrow else 0
-            for place, domain in narrow:
-                self.reduce(place, domain, causes)
-                self.line_up(place)
-                for other in self._puzzle.ties_at[place]:
-                    if other != tie and not waiting.get(other, False):
-                        waiting[other] = True
-                        queue.append(other)
-        return None
+        news = []
+        dead = self._puzzle.look_ahead(self.domains, news, ties, self._puzzle.all_ties)
+        for place, elder, tie in news:
+            self._trail.append((place, elder, self._causes[place]))
+            self._causes[place] = self.causes_at(tie)
+            self.line_up(place)
+        if dead is None:
+            return None
+        for place in self._puzzle.ties[dead][0]:
+            self.weights[place] += 1
+        return self.causes_at(dead)
 
 
 def solved(puzzle, domains, hints):

@@ -12,9 +12,10 @@ from poolmaps.puzzles.fits import is_single, outputs_of
 
 MAX_NODES = 5000
 MAX_TRIED = 16
+MAX_LEFT_OUT = 100
 MAX_LOOKS = 60
 MAX_GROWN = 30000
-FINE = 1000
+FINE = 10 ** 9
 # Which steepness and width are tried, until a tree is not too great.
 WAYS_TO_GROW = ((1, 1), (4, 1), (2, 1), (3, 1), (4, 3), (2, 3))
 
@@ -35,37 +36,12 @@ class Grower:
         self._weights = weights
         self._steepness = steepness
         self._width = width
-        self._all_ties = {tie: True for tie in range(len(puzzle.ties))}
         self._grown = {}
 
     def tree(self):
         """A tree that refutes the whole puzzle."""
-        domains, trail = list(self._puzzle.full), []
-        return self.tree_behind(self.look_ahead(domains, trail, self._all_ties, self._all_ties), {}, domains, trail)
-
-    def look_ahead(self, domains, trail, ties, within):
-        """Narrows the domains, from these ties on; the tie at which nothing fits, or None.
-
-        Only ties of the dict `within` count. The trail gets the pairs of a place and the tie that narrowed it.
-        """
-        queue = list(ties)
-        waiting = {tie: True for tie in queue}
-        at = 0
-        while at < len(queue):
-            tie = queue[at]
-            at += 1
-            waiting[tie] = False
-            narrow = self._puzzle.narrowed_at(tie, domains)
-            if narrow is None:
-                return tie
-            for place, domain in narrow:
-                domains[place] = domain
-                trail.append((place, tie))
-                for other in self._puzzle.ties_at[place]:
-                    if other in within and other != tie and not waiting.get(other, False):
-                        waiting[other] = True
-                        queue.append(other)
-        return None
+        domains, trail, ties = list(self._puzzle.full), [], self._puzzle.all_ties
+        return self.tree_behind(self._puzzle.look_ahead(domains, trail, ties, ties), {}, domains, trail)
 
     def places_of(self, ties):
         """The ascending list of the places at these ties."""
@@ -75,7 +51,7 @@ class Grower:
         """The ascending list of the ties on the trail that narrowed these places in the end, and those of the core."""
         needed = {place: True for place in places}
         chosen = {tie: True for tie in core}
-        for place, tie in trail[::-1]:
+        for place, _, tie in trail[::-1]:
             if place in needed:
                 chosen[tie] = True
                 for other in self._puzzle.ties[tie][0]:
@@ -92,16 +68,16 @@ class Grower:
     def core_within(self, ties, taken):
         """The ties among these that are needed to see that these outputs lead nowhere; None if they do not show it."""
         domains, trail = self.domains_with(taken), []
-        dead = self.look_ahead(domains, trail, ties, {tie: True for tie in ties})
+        dead = self._puzzle.look_ahead(domains, trail, ties, {tie: True for tie in ties})
         if dead is None:
             return None
         return self.core_behind(trail, self._puzzle.ties[dead][0], [dead])
 
     def least_core(self, ties, taken):
-        """Such ties of which none can be left out."""
+        """Such ties of which none can be left out, if they are not too many to try."""
         core = self.core_within(ties, taken)
         for tie in list(core):
-            if tie in core:
+            if tie in core and len(core) <= MAX_LEFT_OUT:
                 less = self.core_within([other for other in core if other != tie], taken)
                 if less is not None:
                     core = less
@@ -187,7 +163,7 @@ class Grower:
             return self.tree_of_core(self.core_behind(trail, [place], []), more)
         narrowed, longer = list(domains), list(trail)
         narrowed[place] = 1 << output
-        dead = self.look_ahead(narrowed, longer, self._puzzle.ties_at[place], self._all_ties)
+        dead = self._puzzle.look_ahead(narrowed, longer, self._puzzle.ties_at[place], self._puzzle.all_ties)
         return self.tree_behind(dead, more, narrowed, longer)
 
     def best_open(self, domains):
@@ -210,7 +186,7 @@ class Grower:
         """How much is open if the place has this output: 0 if nothing fits any more."""
         narrowed = list(domains)
         narrowed[place] = 1 << output
-        if self.look_ahead(narrowed, [], self._puzzle.ties_at[place], self._all_ties) is not None:
+        if self._puzzle.look_ahead(narrowed, [], self._puzzle.ties_at[place], self._puzzle.all_ties) is not None:
             return 0
         return 1 + sum([len(outputs_of(domain)) - 1 for domain in narrowed])
 

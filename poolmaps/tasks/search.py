@@ -36,12 +36,21 @@ class Setting:
         """The dict from all views to these outputs of their places."""
         return {view: outputs[place] for view, place in self.places.items()}
 
-    def solution(self, settled, hints):
-        """The outputs of a rule that does the task and has the settled ones, or None."""
+    def domains_left(self, settled):
+        """The domains that looking ahead leaves if these views have these outputs."""
         domains = list(self.puzzle.full)
         for view, output in settled:
             domains[self.places[view]] = 1 << output
-        return solved(self.puzzle, domains, hints)
+        self.puzzle.look_ahead(domains, [], self.puzzle.all_ties, self.puzzle.all_ties)
+        return domains
+
+    def solution(self, domains):
+        """The outputs of a rule that does the task and has outputs in these domains, or None."""
+        return solved(self.puzzle, domains, self.no_hints())
+
+    def no_hints(self):
+        """Hints for a search that hint at nothing."""
+        return [0] * len(self.places)
 
     def told_node(self, node):
         """A node of a refuting tree, with views and runs."""
@@ -69,23 +78,18 @@ def check_search(pool, task, rounds):
     check_few_runs(pool, rounds, len(task))
 
 
-def no_hints(setting):
-    """Hints for a search that hint at nothing."""
-    return [0] * len(setting.places)
-
-
 def can_do(pool, task, rounds):
     """Whether some rule for so many rounds does the task."""
     check_search(pool, task, rounds)
     setting = Setting(pool, task, rounds)
-    return setting.solution([], no_hints(setting)) is not None
+    return setting.solution(setting.puzzle.full) is not None
 
 
 def made_rule(pool, task, rounds):
     """A rule for so many rounds that does the task, with just the views of its runs."""
     check_search(pool, task, rounds)
     setting = Setting(pool, task, rounds)
-    outputs = setting.solution([], no_hints(setting))
+    outputs = setting.solution(setting.puzzle.full)
     if outputs is None:
         raise InvalidOperation("no rule for so many rounds does the task")
     return Rule(pool, rounds, setting.table_of(outputs))
@@ -95,7 +99,7 @@ def refusal(pool, task, rounds):
     """A tree of questions that shows that no rule for so many rounds does the task."""
     check_search(pool, task, rounds)
     setting = Setting(pool, task, rounds)
-    solver = Solver(setting.puzzle, setting.puzzle.full, no_hints(setting))
+    solver = Solver(setting.puzzle, setting.puzzle.full, setting.no_hints())
     if solver.has_solution():
         raise InvalidOperation("some rule for so many rounds does the task")
     return tuple([setting.told_node(node) for node in refuting_nodes(setting.puzzle, solver.weights)])
@@ -131,10 +135,15 @@ class Chooser:
         self._task = task
         self._rounds = rounds
         self._setting = Setting(pool, task, rounds)
-        self._chosen = []
-        self._answer = self._setting.solution([], no_hints(self._setting))
+        self._answer = self._setting.solution(self._setting.puzzle.full)
         if self._answer is None:
             raise InvalidOperation("no rule for so many rounds does the task")
+        self.set_chosen([])
+
+    def set_chosen(self, chosen):
+        """Makes these the choices, and looks ahead what they leave."""
+        self._chosen = chosen
+        self._domains = self._setting.domains_left(chosen)
 
     @property
     def settled(self):
@@ -156,7 +165,11 @@ class Chooser:
         place = self._setting.places[view]
         if self._answer[place] == output:
             return self._answer
-        return self._setting.solution([*self._chosen, (view, output)], [1 << told for told in self._answer])
+        if self._domains[place] >> output & 1 == 0:
+            return None
+        domains = list(self._domains)
+        domains[place] = 1 << output
+        return solved(self._setting.puzzle, domains, [1 << told for told in self._answer])
 
     def choose(self, view, output):
         """Takes an output for a view."""
@@ -167,8 +180,8 @@ class Chooser:
         answer = self.answer_with(view, output)
         if answer is None:
             raise Refused(view)
-        self._chosen.append((view, output))
         self._answer = answer
+        self.set_chosen([*self._chosen, (view, output)])
 
     def options(self, view):
         """The outputs that can be chosen now, or the one that was chosen."""
@@ -185,20 +198,20 @@ class Chooser:
         check_many(many, len(self._chosen))
         kept = len(self._chosen) - many
         gone = tuple([view for view, _ in self._chosen[kept:][::-1]])
-        self._chosen = self._chosen[:kept]
+        self.set_chosen(self._chosen[:kept])
         return gone
 
     def rule(self):
         """A rule with these outputs that does the task."""
         # Not the answer at hand, which depends on choices that were taken back: equal choosers tell equal rules.
-        outputs = self._setting.solution(self._chosen, no_hints(self._setting))
+        outputs = self._setting.solution(self._domains)
         return Rule(self._pool, self._rounds, self._setting.table_of(outputs))
 
     def twin(self):
         """An equal chooser that goes on by itself."""
         twin = Chooser(self._pool, self._task, self._rounds)
-        twin._chosen = list(self._chosen)
         twin._answer = self._answer
+        twin.set_chosen(self._chosen)
         return twin
 
     def __len__(self):
