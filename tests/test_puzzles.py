@@ -3,10 +3,19 @@
 from itertools import product
 from random import Random
 from unittest import TestCase
+from unittest.mock import patch
 
+from poolmaps.puzzles import solver as solving
 from poolmaps.puzzles.fits import Fit, Puzzle, domain_of, is_single, outputs_of
+from poolmaps.puzzles.growing import WAYS_TO_GROW, Grower, nodes_of, refuting_nodes
+from poolmaps.puzzles.joins import chosen_behind, joins_of, show_that_nothing_fits, telling_joins
 from poolmaps.puzzles.solver import Solver, solved
-from poolmaps.puzzles.trees import Grower, nodes_of, refutes, refuting_nodes
+from poolmaps.puzzles.trees import refutes
+
+
+def puzzle_of(menus, ties, groups=()):
+    """The puzzle of ties that are told with the rows that fit."""
+    return Puzzle(menus, [(bound, Fit(rows)) for bound, rows in ties], list(groups))
 
 
 def drawn_puzzle(drawn, most=6):
@@ -18,7 +27,7 @@ def drawn_puzzle(drawn, most=6):
         bound = tuple(drawn.sample(range(places), drawn.randrange(1, min(3, places) + 1)))
         rows = list(product(*[menus[place] for place in bound]))
         ties.append((bound, sorted(drawn.sample(rows, drawn.randrange(1, len(rows) + 1)))))
-    return menus, ties, Puzzle(menus, [(bound, Fit(rows)) for bound, rows in ties])
+    return menus, ties, puzzle_of(menus, ties)
 
 
 def all_solutions(menus, ties):
@@ -55,8 +64,8 @@ class PuzzlesTest(TestCase):
             self.assertIs(solver.has_solution(), bool(solutions))
             if not solutions:
                 refuted += 1
-                for steepness, width in ((1, 1), (4, 1), (2, 3)):
-                    nodes = nodes_of(Grower(puzzle, solver.weights, steepness, width).tree())
+                for way in WAYS_TO_GROW:
+                    nodes = nodes_of(Grower(puzzle, solver.weights, *way).tree())
                     self.assertTrue(refutes(puzzle, plain(nodes)))
                     self.checks_tree(menus, ties, nodes)
                 self.checks_tree(menus, ties, refuting_nodes(puzzle, solver.weights))
@@ -68,7 +77,7 @@ class PuzzlesTest(TestCase):
         for _ in range(60):
             places, menus = 14, [(0, 1, 2)] * 14
             ties = [(tuple(drawn.sample(range(places), 3)), sorted(drawn.sample(rows, 14))) for _ in range(23)]
-            puzzle = Puzzle(menus, [(bound, Fit(fitting)) for bound, fitting in ties])
+            puzzle = puzzle_of(menus, ties)
             solver = Solver(puzzle, puzzle.full, [0] * places)
             if solver.has_solution():
                 outputs = [outputs_of(domain) for domain in solver.domains]
@@ -77,7 +86,7 @@ class PuzzlesTest(TestCase):
                     self.assertIn(tuple(outputs[place][0] for place in bound), fitting)
                 told[1] += 1
             else:
-                nodes = nodes_of(Grower(puzzle, solver.weights, 1, 1).tree())
+                nodes = nodes_of(Grower(puzzle, solver.weights, *WAYS_TO_GROW[told[0] % 3]).tree())
                 self.assertTrue(refutes(puzzle, plain(nodes)))
                 told[0] += 1
         self.assertGreater(min(told), 10)
@@ -99,8 +108,61 @@ class PuzzlesTest(TestCase):
             menus += [(0, 1, 2)] * 4
             ties += [((one, other), Fit(differ)) for one in places for other in places
                      if one < other and (group == 29 or (one, other) != (4 * group, 4 * group + 1))]
-        puzzle = Puzzle(menus, ties)
+        puzzle = Puzzle(menus, ties, [])
         self.assertIsNone(solved(puzzle, puzzle.full, [0] * len(menus)))
-        self.assertIsNotNone(solved(Puzzle(menus[:-4], ties[:-6]), puzzle.full[:-4], [0] * (len(menus) - 4)))
-        chained = Puzzle(menus, [*ties, *[((at, at + 4), Fit(list(product(range(3), repeat=2)))) for at in range(116)]])
+        self.assertIsNotNone(solved(Puzzle(menus[:-4], ties[:-6], []), puzzle.full[:-4], [0] * (len(menus) - 4)))
+        free = Fit(list(product(range(3), repeat=2)))
+        chained = Puzzle(menus, [*ties, *[((at, at + 4), free) for at in range(116)]], [])
         self.assertIsNone(solved(chained, chained.full, [0] * len(menus)))
+
+
+class JoinsTest(TestCase):
+    def test_against_all_ways_to_give_outputs(self):
+        drawn, told = Random(211), [0, 0]
+        for _ in range(500):
+            menus, ties, puzzle = drawn_puzzle(drawn)
+            domains = [domain_of(drawn.sample(menu, drawn.randrange(1, len(menu) + 1))) for menu in menus]
+            within = [
+                outputs for outputs in product(*[outputs_of(domain) for domain in domains])
+                if all(tuple(outputs[place] for place in bound) in rows for bound, rows in ties)
+            ]
+            joins = joins_of(puzzle, range(len(ties)), domains)
+            bound = {place for places, _ in ties for place in places if not is_single(domains[place])}
+            # Ties without an open place are left to looking ahead.
+            closed = [all(is_single(domains[place]) for place in places) for places, _ in ties]
+            if bound and not any(closed):
+                told[bool(within)] += 1
+                self.assertIs(show_that_nothing_fits(joins), not within)
+            if within:
+                chosen = chosen_behind(joins)
+                self.assertEqual(set(chosen), bound)
+                outputs = [chosen.get(place, domain.bit_length() - 1) for place, domain in enumerate(domains)]
+                for places, rows in ties:
+                    self.assertIn(tuple(outputs[place] for place in places), rows)
+        self.assertGreater(min(told), 40)
+
+    def test_joins_that_are_too_great_and_groups(self):
+        all_pairs = [(one, other) for one in range(15) for other in range(one)]
+        differ = [(one, other) for one in range(3) for other in range(3) if one != other]
+        ties = [(pair, differ) for pair in all_pairs]
+        few = [number for number, (pair, _) in enumerate(ties) if max(pair) < 4]
+        for groups, told in (((), None), ((few[:3],), None), ((few[:3], few), True)):
+            puzzle = puzzle_of([(0, 1, 2)] * 15, ties, groups)
+            joins = telling_joins(puzzle, puzzle.all_ties, puzzle.full)
+            self.assertEqual(None if joins is None else show_that_nothing_fits(joins), told)
+        self.assertIsNone(joins_of(puzzle, puzzle.all_ties, puzzle.full))
+        self.assertIs(show_that_nothing_fits(joins_of(puzzle, [], puzzle.full)), False)
+
+    def test_searches_that_ask_joins(self):
+        drawn, rows, told = Random(223), list(product(range(3), repeat=3)), [0, 0]
+        with patch.object(solving, "PATIENCE", 1), patch.object(solving, "JOINING", 2):
+            for _ in range(150):
+                menus = [(0, 1, 2)] * 9
+                ties = [(tuple(drawn.sample(range(9), 3)), sorted(drawn.sample(rows, 14))) for _ in range(14)]
+                outputs = solved(puzzle_of(menus, ties), [7] * 9, [0] * 9)
+                fitting = [ways for ways in product(range(3), repeat=9) if all(
+                    tuple(ways[place] for place in bound) in each for bound, each in ties)]
+                self.assertEqual(outputs is not None, bool(fitting))
+                self.assertTrue(outputs is None or tuple(outputs) in fitting)
+                told[bool(fitting)] += 1
+        self.assertGreater(min(told), 10)

@@ -186,6 +186,15 @@ class SearchTest(Case):
                 right for right in product(sorted(set(row)), repeat=3) if len(set(right)) <= many) for row in rows})
             self.assertIs(can_do(snap_pool(3), task, 1), told)
 
+    def test_inputs_of_others_in_two_rounds_of_snaps(self):
+        # A row for each set of threads that can be known: what a thread puts out is an input that it knows.
+        faces = [(0, 0, 0), (0, 0, 2), (0, 1, 0), (0, 1, 2), (1, 1, 1), (1, 1, 2), (2, 2, 2)]
+        for rows in (faces, list(product(range(3), repeat=3))[:23]):
+            for many, told in ((2, False), (3, True)):
+                task = Task({row: tuple(
+                    right for right in product(sorted(set(row)), repeat=3) if len(set(right)) <= many) for row in rows})
+                self.assertIs(can_do(snap_pool(3), task, 2), told)
+
     def test_views_apart(self):
         rows = {(entry, entry): ((0, 0), (1, 1), (2, 3)) for entry in range(8)}
         broken = {(8, 8): ((0, 0),), (8, 9): ((0, 1),), (9, 8): ((0, 0), (1, 0)), (9, 9): ((1, 0),)}
@@ -200,6 +209,16 @@ class SearchTest(Case):
             told = self.checks_no_rule(pool, task, rounds)
             self.assertLessEqual(len(told), 5000)
             self.assertFalse(is_refusal(pool, task, rounds, told[:-1]))
+
+    def test_refusals_with_many_outputs(self):
+        for seed, inputs, outputs, rights in ((7, 8, 60, 100), (10, 6, 40, 60), (11, 8, 40, 100), (12, 3, 12, 24)):
+            drawn = Random(seed)
+            task = Task({row: tuple(sorted({(drawn.randrange(outputs), drawn.randrange(outputs)) for _ in range(rights)}))
+                         for row in product(range(inputs), repeat=2)})
+            told = refusal(pair_pool("N"), task, 0)
+            self.assertLess(len(told), 2000)
+            self.assertIs(is_refusal(pair_pool("N"), task, 0, told), True)
+            self.assertTrue(slow_is_refusal(pair_pool("N"), task, 0, told))
 
     def test_values_near_refusals(self):
         for pool, task, rounds in ((PAIR, AGREE, 0), (pair_pool("N"), ODD, 0), (star_pool(3), agreement_task(3), 0)):

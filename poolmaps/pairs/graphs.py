@@ -2,7 +2,7 @@
 
 from poolmaps.base.checks import are_numbers, is_number
 from poolmaps.errors import InvalidNumber, InvalidOperation, InvalidTask
-from poolmaps.known.chains import bearers_of, classes_of, reach, shortest_chain
+from poolmaps.known.chains import classes_of, shortest_chain
 from poolmaps.tasks.tasks import MAX_OUTPUT, Task
 
 MAX_WAY = 5000
@@ -46,12 +46,21 @@ def row_parts(task, row):
 
 def lengths_of_ways(task, row):
     """A dict from the pairs of outputs that ways join to the least lengths of such ways."""
-    labels = point_labels(task, row)
+    seconds, firsts = {}, {}
+    for one, other in task[row]:
+        seconds.setdefault(one, []).append(other)
+        firsts.setdefault(other, []).append(one)
     lengths = {}
-    for one in outputs_at(task, row, 0):
-        for point, told in reach(labels, bearers_of(labels), [(0, one)]).items():
-            if point[0] == 1:
-                lengths[(one, point[1])] = told[0]
+    for one in seconds:
+        reached, layer, length = {one: True}, [one], 1
+        while layer:
+            ends = sorted({other for each in layer for other in seconds[each] if (one, other) not in lengths})
+            for other in ends:
+                lengths[(one, other)] = length
+            layer = sorted({each for other in ends for each in firsts[other] if each not in reached})
+            for each in layer:
+                reached[each] = True
+            length += 2
     return lengths
 
 

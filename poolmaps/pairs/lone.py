@@ -4,8 +4,9 @@ from poolmaps.base.checks import is_number
 from poolmaps.known.sights import MAX_INPUT
 from poolmaps.pairs.graphs import lengths_of_ways, outputs_at
 from poolmaps.puzzles.fits import Fit, Puzzle, domain_of
+from poolmaps.puzzles.growing import refuting_nodes
 from poolmaps.puzzles.solver import Solver
-from poolmaps.puzzles.trees import refutes, refuting_nodes
+from poolmaps.puzzles.trees import refutes
 from poolmaps.tasks.tasks import MAX_OUTPUT
 
 
@@ -50,7 +51,7 @@ class LoneSetting:
                 self.ties_by_row[row].append(len(ties))
                 self.tied_rows.append(row)
                 ties.append((tuple([self.places[(thread, row[thread])] for thread in threads]), Fit(fitting)))
-        self.puzzle = Puzzle(self.menus, ties)
+        self.puzzle = Puzzle(self.menus, ties, [])
 
     def has_entry(self, thread, value):
         """Whether the value is an input of the thread that comes in some row."""

@@ -32,6 +32,7 @@ class Fit:
     """
 
     def __init__(self, fitting):
+        self.fitting = list(fitting)
         self._whole = (1 << len(fitting)) - 1
         self._bearing = [{} for _ in fitting[0]]
         for number, row in enumerate(fitting):
@@ -77,11 +78,15 @@ class Fit:
 
 
 class Puzzle:
-    """Places with a menu of outputs each, and ties, which are pairs of a tuple of places and their fit."""
+    """Places with a menu of outputs each, and ties, which are pairs of a tuple of places and their fit.
 
-    def __init__(self, menus, ties):
+    Tie groups are lists of ties that may be enough to show that nothing fits, each one alone.
+    """
+
+    def __init__(self, menus, ties, tie_groups):
         self.menus = menus
         self.ties = ties
+        self.tie_groups = tie_groups
         self.full = [domain_of(menu) for menu in menus]
         self.all_ties = {tie: True for tie in range(len(ties))}
         self.ties_at = [[] for _ in menus]

@@ -9,9 +9,11 @@ from heapq import heappop, heappush
 
 from poolmaps.known.chains import classes_of
 from poolmaps.puzzles.fits import is_single, outputs_of
+from poolmaps.puzzles.joins import chosen_behind, show_that_nothing_fits, telling_joins
 
 FINE = 10 ** 9
 PATIENCE = 100
+JOINING = 800
 
 
 class Solver:
@@ -35,7 +37,7 @@ class Solver:
         for part in self.open_parts():
             for place in part:
                 self.line_up(place)
-            if not self.has_solved_part():
+            if not self.has_solved_part(part):
                 return False
         return True
 
@@ -47,11 +49,11 @@ class Solver:
         }
         return [part for _, part in sorted([(len(each), each) for each in classes_of(labels)])]
 
-    def has_solved_part(self):
-        """Whether the places that are lined up can all get an output.
+    def has_solved_part(self, part):
+        """Whether the places of the part, which are lined up, can all get an output.
 
         Behind ever more conflicts all decisions are taken back: what was learned of the weights of places
-        can lead to a better first decision.
+        can lead to a better first decision. If there are very many, joins are tried.
         """
         first = len(self._decisions)
         patience, conflicts = PATIENCE, 0
@@ -67,7 +69,22 @@ class Solver:
             if conflicts > patience and len(self._decisions) > first:
                 patience, conflicts = 2 * patience, 0
                 self.go_back(first)
+                told = self.told_by_joins(part) if patience == JOINING else None
+                if told is not None:
+                    return told
             place = self.next_place()
+        return True
+
+    def told_by_joins(self, part):
+        """Whether the open places of the part can all get an output, which they get then; None if joins do not tell."""
+        ties = sorted({tie for place in part for tie in self._puzzle.ties_at[place]})
+        joins = telling_joins(self._puzzle, ties, self.domains)
+        if joins is None:
+            return None
+        if show_that_nothing_fits(joins):
+            return False
+        for place, output in chosen_behind(joins).items():
+            self.reduce(place, 1 << output, 0)
         return True
 
     def rank(self, place):

@@ -6,8 +6,9 @@ from poolmaps.errors import InvalidOperation, Refused
 from poolmaps.known.sights import check_few_runs, is_row, is_view, views_in_runs
 from poolmaps.known.words import MAX_ROUNDS, check_rounds, is_word
 from poolmaps.puzzles.fits import Fit, Puzzle
+from poolmaps.puzzles.growing import refuting_nodes
 from poolmaps.puzzles.solver import Solver, solved
-from poolmaps.puzzles.trees import MAX_NODES, refutes, refuting_nodes
+from poolmaps.puzzles.trees import MAX_NODES, refutes
 from poolmaps.tasks.rules import Rule
 from poolmaps.tasks.tasks import MAX_OUTPUT, check_sizes, check_task
 
@@ -26,6 +27,7 @@ class Setting:
         self.puzzle = Puzzle(
             [task.outputs(view[0]) for view in self.sorted_views],
             [(tuple([self.places[view] for view in views]), fits[run[0]]) for run, views in seen.items()],
+            [[tie for run, tie in self.ties_by_run.items() if run[0] == row] for row in task.rows],
         )
 
     def has_view(self, value):
