@@ -7,7 +7,7 @@ from unittest.mock import patch
 
 from poolmaps.puzzles import solver as solving
 from poolmaps.puzzles.fits import Fit, Puzzle, domain_of, is_single, outputs_of
-from poolmaps.puzzles.growing import WAYS_TO_GROW, Grower, nodes_of, refuting_nodes
+from poolmaps.puzzles.growing import WAYS_TO_GROW, new_grower, nodes_of, refuting_nodes
 from poolmaps.puzzles.joins import chosen_behind, joins_of, show_that_nothing_fits, telling_joins
 from poolmaps.puzzles.solver import Solver, solved
 from poolmaps.puzzles.trees import refutes
@@ -65,7 +65,7 @@ class PuzzlesTest(TestCase):
             if not solutions:
                 refuted += 1
                 for way in WAYS_TO_GROW:
-                    nodes = nodes_of(Grower(puzzle, solver.weights, *way).tree())
+                    nodes = nodes_of(new_grower(puzzle, solver.weights, *way).tree())
                     self.assertTrue(refutes(puzzle, plain(nodes)))
                     self.checks_tree(menus, ties, nodes)
                 self.checks_tree(menus, ties, refuting_nodes(puzzle, solver.weights))
@@ -86,7 +86,7 @@ class PuzzlesTest(TestCase):
                     self.assertIn(tuple(outputs[place][0] for place in bound), fitting)
                 told[1] += 1
             else:
-                nodes = nodes_of(Grower(puzzle, solver.weights, *WAYS_TO_GROW[told[0] % 3]).tree())
+                nodes = nodes_of(new_grower(puzzle, solver.weights, *WAYS_TO_GROW[told[0] % 5]).tree())
                 self.assertTrue(refutes(puzzle, plain(nodes)))
                 told[0] += 1
         self.assertGreater(min(told), 10)

@@ -10,6 +10,8 @@ from poolmaps.puzzles.fits import is_single, outputs_of
 from poolmaps.puzzles.trees import MAX_NODES
 
 MAX_TRIED = 16
+MAX_NEAR = 6
+BRANCH = 10
 MAX_LEFT_OUT = 100
 MAX_OPEN_LOOKS = 60
 MAX_LOOKS = 100000
@@ -17,9 +19,14 @@ MAX_LOOKS = 100000
 MAX_SURE = 80
 FINE = 10 ** 9
 # Stands for a tree that would be too great. It uses no output, so that no place in front of it is asked.
-GIVEN_UP = (("stop", 0), (), 5001)
-# Which steepness, width and thrift are tried, until a tree is not too great.
-WAYS_TO_GROW = ((1, 1, 1), (1, 1, 0), (4, 1, 1), (3, 1, 0), (4, 3, 1), (2, 3, 1), (2, 3, 0))
+GIVEN_UP = (("stop", 0), (), 1000000)
+# If the least one of so many first trees has more nodes than this, other ways hardly make it small enough.
+FIRST_WAYS = 3
+MAX_FIRST = 40000
+# Which steepness, width and thrift are tried, until a tree is not too great; width 0 is for a near grower.
+WAYS_TO_GROW = (
+    (1, 1, 1), (1, 1, 0), (4, 1, 1), (1, 0, 1), (3, 1, 0), (1, 0, 4), (1, 0, 0), (4, 3, 1), (2, 3, 1), (2, 3, 0),
+)
 
 
 def power(base, times):
@@ -212,6 +219,43 @@ class Grower:
         return 1 + sum([len(outputs_of(domain)) - 1 for domain in narrowed])
 
 
+class NearGrower(Grower):
+    """What grows trees by all outputs taken: it asks where few outputs are left at once.
+
+    It is better than the other one where places have many outputs, and worse where long ways of ties count.
+    """
+
+    def tree_of_core(self, ties, taken):
+        """A tree, if looking ahead at these ties shows that the outputs taken lead nowhere, but none does at once."""
+        if self._looks_left < 0:
+            return GIVEN_UP
+        core = self.core_within(self._puzzle.all_ties, taken)
+        return self.asked(self.best_near(self.places_of(core), taken), core, taken)
+
+    def best_near(self, places, taken):
+        """The place whose branches are fewest and have the least cores, among these ones and those with few outputs."""
+        left = self.left_at_once(taken)
+        told = sorted([
+            (len(outputs_of(domain)), place not in places, place)
+            for place, domain in enumerate(left) if place not in taken
+        ])
+        if told[0][0] == 0:
+            return told[0][2]
+        in_core = [each for each in told if not each[1]]
+        totals = []
+        for _, _, place in [*told[:MAX_NEAR], *in_core[:MAX_TRIED]]:
+            ahead = [{**taken, place: output} for output in outputs_of(left[place])]
+            totals.append((sum([BRANCH + len(self.core_within(self._puzzle.all_ties, more)) for more in ahead]), place))
+        return min(totals)[1]
+
+
+def new_grower(puzzle, weights, steepness, width, thrift):
+    """The grower for one of the ways to grow."""
+    if width == 0:
+        return NearGrower(puzzle, weights, steepness, width, thrift)
+    return Grower(puzzle, weights, steepness, width, thrift)
+
+
 def joined_tree(place, grown):
     """The tree that asks for this place, with pairs of an output and its tree."""
     used = sorted({other for _, tree in grown for other in tree[1] if other != place})
@@ -238,8 +282,12 @@ def nodes_of(tree):
 
 def refuting_nodes(puzzle, weights):
     """The list of the nodes of a tree that refutes the puzzle, by the weights of places in a search that failed."""
+    sizes = []
     for steepness, width, thrift in WAYS_TO_GROW:
-        tree = Grower(puzzle, weights, steepness, width, thrift).tree()
+        tree = new_grower(puzzle, weights, steepness, width, thrift).tree()
+        sizes.append(tree[2])
         if tree[2] <= MAX_NODES:
             return nodes_of(tree)
+        if len(sizes) == FIRST_WAYS and min(sizes) > MAX_FIRST:
+            raise TooMany(MAX_NODES)
     raise TooMany(MAX_NODES)
