@@ -9,6 +9,10 @@ from poolmaps.errors import InvalidNumber, InvalidWeb
 from poolmaps.groups.sieves import Sieve
 from poolmaps.known.stories import Story
 from poolmaps.near.middles import Middles
+from poolmaps.objects.courses import Course
+from poolmaps.objects.kinds import adder_kind
+from poolmaps.objects.plans import Plan
+from poolmaps.plays.plays import same_play
 from poolmaps.tasks.rules import Rule
 from poolmaps.tasks.tasks import Task
 
@@ -30,6 +34,7 @@ WRONG = [
     nested("dict", 8), Web(((), ())), Web(((),)), Web(((1,), (0,)), (0, 9999)), pair_pool("RL"), snap_pool(1),
     Story(pair_pool("B")), InvalidWeb("x"), InvalidNumber(3), Sieve(pair_pool("RL")), Middles(snap_pool(1), (1,)),
     Task({(0,): ((0,),)}), Task({(0, 1): ((0, 0), (1, 1))}), Rule(pair_pool("RL"), 0, {}),
+    adder_kind(11), Plan(adder_kind(11), 0, 0, 0), Course(Plan(adder_kind(11), 0, 0, 0)), same_play(snap_pool(1)),
     {(0,): ((0,),)}, {(True, 0): ((0, 0),)}, {(0, 0, ((0, 0),)): 0}, {(0, 0): 0, (0, 1): 1}, {0: 0, 1: 1},
 ]
 

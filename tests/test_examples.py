@@ -99,6 +99,32 @@ Signs, rainbows, names by order:
 [True, (1, 3), True, ((1,), (1, 0), (0, 1, -1)), True, 3, False]
 >>> [as_rule(ranks, ((4, 7), (7, 4))).outcome((7, 4), (0,)), clash(ranks.mapped({1: 1, 2: 2, 3: 2})), str(ranks)]
 [(1, 2), (2, (2,), (0, 1)), 'order rule of 2 threads, 1 rounds: names to 3']
+
+Objects that two threads share:
+
+>>> [flag_kind().table, swap_kind(1).table == sticky_kind(1).table, cell_kind(2).table[1], str(flag_kind() * adder_kind(3))]
+[(((1, 0),), ((1, 1),)), False, ((0, 0), (1, 0), (1, 1)), 'kind of 6 states, 2 operations']
+>>> [adder_kind(3).after(2, (0, 0)), sticky_kind(2).after(0, (1, 0)), cell_kind(2).states_from(1), (0, 1) in flag_kind()]
+[(1, (2, 0)), (2, (2, 2)), (0, 1), False]
+>>> flag, cell = Plan(flag_kind(), 0, 0, 0), Plan(cell_kind(2), 0, 0, 1)
+>>> [flag.seen(0, (0, 1)), flag.seen(0, (1, 0)), tells(flag), confusion(flag), is_confusion(cell, (0, (0,))), telling_plans(flag_kind()), telling_plans(cell_kind(2))]
+[(0, 1), (1, 1), True, None, True, ((0, 0, 0),), ()]
+>>> plan_pool(flag) == Pool((Web(((), (0,)), (1, 101)), Web(((1,), (0,)), (1, 101)), Web(((1,), (0,)), (101, 1)), Web(((1,), ()), (101, 1))))
+True
+>>> [first_done(flag, 1, ((0, 1), 101)), plan_pool(flag).webs[0] == plan_web(flag, (0, 0, 0, 1, 1, 1)), len(interleavings()), confused_group(cell, (0, (0,))), len(plan_pool(cell))]
+[0, True, 20, (0, 1, 3, 4), 5]
+>>> course = Course(flag)
+>>> [course.move(1), course.move(1), course.move(0), course.move(0), course.state, course.move(1), course.undo(), course.move(0), course.answers]
+[None, 0, None, 1, 1, ((0, 1), 1), 4, ((0, 1), 101), (1, 0)]
+
+Plays:
+
+>>> [len(power_pool(SNAP, 1)), len(power_pool(SNAP, 2)), power_pool(ENDS, 2)[0].signals, power_word(SNAP, 2, (0, 1, 2, 2)), power_pool(SNAP, 0) == Pool((silent_web(2),)), power_pool(pair_pool("B"), 3) == Pool((BOTH,))]
+[3, 9, (((0,), 0), ((0, 1), 0)), (1, 8), True, True]
+>>> [made_play(SNAP, pair_pool("RLB"), 1).word_of((0, 2)), lesser_play(ENDS, SNAP).word_of((0, 1)), never_plays(SNAP, ENDS)[0], never_plays(pair_pool("L"), pair_pool("R")), never_plays(pair_pool("BN"), ENDS)[0] in ("agree", "roots")]
+[(0, 2), (0, 1), 'agree', ('hear', 1, 0, 0), True]
+>>> [str(power_play(ENDS, 2)), same_play(SNAP).then(same_play(SNAP)) == same_play(SNAP), is_play(pair_pool("B"), pair_pool("R"), 1, ({0: ((0,), 0)}, {0: ((0, 1), 0)})), forgetting_play(SNAP, RIGHT).guest.webs == (RIGHT, silent_web(2))]
+['play of 4 webs in 2 webs, 2 rounds', True, True, True]
 """
 
 import doctest
@@ -110,6 +136,7 @@ MODULES = (
     "base.webs", "base.pools", "known.words", "known.sights", "known.lots", "known.common", "known.stories",
     "groups.links", "groups.closed", "groups.bars", "groups.sieves", "near.limits", "near.middles", "tasks.tasks",
     "tasks.rules", "tasks.search", "pairs.graphs", "pairs.ever", "counts.signs", "counts.rainbows", "counts.names",
+    "objects.kinds", "objects.plans", "objects.courses", "plays.powers", "plays.plays",
 )
 
 
@@ -119,4 +146,4 @@ class ExamplesTest(TestCase):
         for name in MODULES:
             names.update(vars(import_module("poolmaps." + name)))
         told = doctest.testmod(sys.modules[__name__], extraglobs=names)
-        self.assertEqual((told.failed, told.attempted > 40), (0, True))
+        self.assertEqual((told.failed, told.attempted > 50), (0, True))

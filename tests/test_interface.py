@@ -11,7 +11,9 @@ from poolmaps.counts import names, rainbows, signs
 from poolmaps.groups import bars, closed, links, sieves
 from poolmaps.known import common, lots, sights, stories, words
 from poolmaps.near import limits, middles
+from poolmaps.objects import kinds, plans
 from poolmaps.pairs import ever, graphs
+from poolmaps.plays import plays, powers
 from poolmaps.tasks import rules, search
 from poolmaps.tasks.tasks import Task, agreement_task, near_task
 
@@ -55,6 +57,14 @@ FUNCTIONS = {
     "counts.names": """pattern_of(size,word,thread) patterns(size,rounds) rank_rule(size) is_unlike(rule) clash(rule)
         is_clash(rule,value) as_rule(rule,rows) names_task(size,names,inputs) triangle(rule,group)
         is_barred(size,names) barring_group(size,names)""",
+    "objects.kinds": "flag_kind() adder_kind(states) swap_kind(values) cell_kind(values) sticky_kind(values)",
+    "objects.plans": """interleavings() plan_web(plan,steps) plan_pool(plan) tells(plan) confusion(plan)
+        is_confusion(plan,value) confused_group(plan,value) first_done(plan,thread,signal) plan_rule(plan,*,values=2)
+        telling_plans(kind)""",
+    "plays.powers": "power_pool(pool,rounds) power_word(pool,rounds,word)",
+    "plays.plays": """is_play(host,guest,rounds,value) same_play(pool) lesser_play(host,guest) forgetting_play(pool,web)
+        power_play(pool,rounds) made_play(host,guest,rounds) play_refusal(host,guest,rounds)
+        is_play_refusal(host,guest,rounds,value) never_plays(host,guest) is_never(host,guest,value)""",
 }
 METHODS = {
     ("base.webs", "Web"): """__init__(self,heard,marks=None) signal(self,thread) hears(self,thread)
@@ -81,6 +91,12 @@ METHODS = {
         with_pick(self,thread,number,picked)""",
     ("counts.names", "OrderRule"): """__init__(self,size,rounds,names) names_in(self,many,word) mapped(self,table)
         for_fewer(self,size)""",
+    ("objects.kinds", "Kind"): """__init__(self,table) step(self,state,operation) after(self,state,operations)
+        states_from(self,state) relabeled(self,states,operations)""",
+    ("objects.plans", "Plan"): "__init__(self,kind,start,first,second) seen(self,thread,order) turned(self)",
+    ("objects.courses", "Course"): "__init__(self,plan) move(self,thread) undo(self,*,many=1) web(self) twin(self)",
+    ("plays.plays", "Play"): """__init__(self,host,guest,rounds,maps) signal_for(self,thread,number)
+        word_of(self,word) then(self,other) carried(self,rule,task)""",
 }
 SIGNS = {
     "Web": ("__contains__", "__len__", "__eq__", "__str__"),
@@ -94,6 +110,10 @@ SIGNS = {
     "Choosing": ("__len__", "__eq__", "__str__"),
     "Choice": ("__len__", "__eq__", "__str__"),
     "OrderRule": ("__len__", "__eq__", "__str__"),
+    "Kind": ("__mul__", "__contains__", "__len__", "__eq__", "__str__"),
+    "Plan": ("__eq__", "__str__"),
+    "Course": ("__len__", "__eq__", "__str__"),
+    "Play": ("__eq__", "__str__"),
 }
 PROPERTIES = {
     "Web": ("heard", "marks", "size", "signals", "roots", "is_marked"),
@@ -107,9 +127,14 @@ PROPERTIES = {
     "Choosing": ("outs", "lacking", "stuck"),
     "Choice": ("size", "rounds", "picks"),
     "OrderRule": ("size", "rounds", "names", "greatest"),
+    "Kind": ("table", "states", "operations", "answers"),
+    "Plan": ("kind", "start", "operations"),
+    "Course": ("plan", "steps", "state", "written", "answers", "signals"),
+    "Play": ("host", "guest", "rounds", "maps"),
 }
 CONSTANTS = {"base.pools": {"MAX_WEBS": 80}, "known.words": {"MAX_ROUNDS": 6},
-             "known.sights": {"MAX_WORDS": 3000, "MAX_RUNS": 4000}}
+             "known.sights": {"MAX_WORDS": 3000, "MAX_RUNS": 4000},
+             "objects.kinds": {"MAX_STATES": 12, "MAX_OPERATIONS": 8}}
 
 
 def heading(function):
@@ -217,12 +242,36 @@ def last_calls():
     ]
 
 
-KEPT_OBJECTS = (Web, Pool, Task, rules.Rule, rainbows.Choice, names.OrderRule)
+def calls_of_objects_and_plays():
+    """The same for kinds, plans, powers and plays."""
+    pool, pair, web, near = pair_pool("RLB"), pair_pool("RL"), Web(((), (0,))), near_task(2, 3)
+    kind, flag = kinds.cell_kind(2), plans.Plan(kinds.flag_kind(), 0, 0, 0)
+    plan, play = plans.Plan(kind, 0, 0, 1), plays.power_play(pool, 2)
+    rule, told = search.made_rule(play.guest, near, 1), plays.play_refusal(pair_pool("BR"), pair_pool("B"), 1)
+    return [
+        (kind.step, 0, 1), (kind.after, 0, (0, 1, 2)), (kind.states_from, 0), (kind.relabeled, (1, 0), (2, 0, 1)),
+        (kind.__mul__, kinds.flag_kind()), (str, kind), (plan.seen, 0, (0, 1)), (plan.turned,), (str, plan),
+        (plans.plan_web, plan, (0, 0, 0, 1, 1, 1)), (plans.plan_pool, plan), (plans.tells, plan),
+        (plans.confusion, plan), (plans.is_confusion, plan, (0, (0,))), (plans.confused_group, plan, (0, (0,))),
+        (plans.first_done, flag, 1, ((0, 1), 101)), (plans.plan_rule, flag), (plans.telling_plans, kind),
+        (powers.power_pool, pool, 2), (powers.power_word, pool, 2, (0, 1)), (plays.Play, pool, play.guest, 2, play.maps),
+        (plays.is_play, pool, play.guest, 2, play.maps), (plays.same_play, pool), (plays.lesser_play, pair, pool),
+        (plays.forgetting_play, pool, web), (plays.power_play, pool, 2), (plays.made_play, pool, pair_pool("RN"), 1),
+        (plays.play_refusal, pair_pool("BR"), pair_pool("B"), 1),
+        (plays.is_play_refusal, pair_pool("BR"), pair_pool("B"), 1, told), (plays.never_plays, pool, pair),
+        (plays.is_never, pool, pair, ("agree", (0, 1, 2))), (play.signal_for, 0, 0), (play.word_of, (0, 1)),
+        (play.then, plays.same_play(play.guest)), (play.carried, rule, near), (str, play),
+    ]
+
+
+KEPT_OBJECTS = (
+    Web, Pool, Task, rules.Rule, rainbows.Choice, names.OrderRule, kinds.Kind, plans.Plan, plays.Play,
+)
 
 
 class NothingChangesTest(TestCase):
     def test_calls_change_no_argument_and_are_equal_each_time(self):
-        for call, *args in [*calls(), *later_calls(), *last_calls()]:
+        for call, *args in [*calls(), *later_calls(), *last_calls(), *calls_of_objects_and_plays()]:
             passed = [getattr(call, "__self__", None), *args]
             watched = [value for value in passed if isinstance(value, (*KEPT_OBJECTS, tuple, dict))]
             before = deepcopy(watched)

@@ -10,7 +10,7 @@ from poolmaps.puzzles.fits import Fit, Puzzle, domain_of, is_single, outputs_of
 from poolmaps.puzzles.growing import WAYS_TO_GROW, new_grower, nodes_of, refuting_nodes
 from poolmaps.puzzles.joins import chosen_behind, joins_of, show_that_nothing_fits, telling_joins
 from poolmaps.puzzles.solver import Solver, solved
-from poolmaps.puzzles.trees import refutes
+from poolmaps.puzzles.trees import ask_once, refutes
 
 
 def puzzle_of(menus, ties, groups=()):
@@ -66,7 +66,7 @@ class PuzzlesTest(TestCase):
                 refuted += 1
                 for way in WAYS_TO_GROW:
                     nodes = nodes_of(new_grower(puzzle, solver.weights, *way).tree())
-                    self.assertTrue(refutes(puzzle, plain(nodes)))
+                    self.assertTrue(refutes(puzzle, plain(nodes)) and ask_once(plain(nodes)))
                     self.checks_tree(menus, ties, nodes)
                 self.checks_tree(menus, ties, refuting_nodes(puzzle, solver.weights))
         self.assertGreater(refuted, 50)
@@ -87,7 +87,7 @@ class PuzzlesTest(TestCase):
                 told[1] += 1
             else:
                 nodes = nodes_of(new_grower(puzzle, solver.weights, *WAYS_TO_GROW[told[0] % 5]).tree())
-                self.assertTrue(refutes(puzzle, plain(nodes)))
+                self.assertTrue(refutes(puzzle, plain(nodes)) and ask_once(plain(nodes)))
                 told[0] += 1
         self.assertGreater(min(told), 10)
 

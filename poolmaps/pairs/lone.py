@@ -6,7 +6,7 @@ from poolmaps.pairs.graphs import lengths_of_ways, outputs_at
 from poolmaps.puzzles.fits import Fit, Puzzle, domain_of
 from poolmaps.puzzles.growing import refuting_nodes
 from poolmaps.puzzles.solver import Solver
-from poolmaps.puzzles.trees import refutes
+from poolmaps.puzzles.trees import ask_once, refutes
 from poolmaps.tasks.tasks import MAX_OUTPUT
 
 
@@ -112,4 +112,4 @@ class LoneSetting:
     def is_refused_by(self, task, value):
         """Whether the nodes of the value, a tuple, show that no lone choice fits all rows."""
         nodes = [self.plain_node(task, node) for node in value]
-        return None not in nodes and refutes(self.puzzle, nodes)
+        return None not in nodes and refutes(self.puzzle, nodes) and ask_once(nodes)

@@ -4,6 +4,8 @@ Outputs are integers below 100. A domain is an integer whose bits tell the outpu
 """
 
 MAX_KEPT = 20000
+# The domain of a place that can have any output, also one that its menu does not have.
+ANY = -1
 
 
 def domain_of(outputs):

@@ -6,7 +6,7 @@ its nodes. A place that no stop behind it relies on need not be asked.
 """
 
 from poolmaps.errors import TooMany
-from poolmaps.puzzles.fits import is_single, outputs_of
+from poolmaps.puzzles.fits import ANY, is_single, outputs_of
 from poolmaps.puzzles.trees import MAX_NODES
 
 MAX_TRIED = 16
@@ -71,8 +71,10 @@ class Grower:
 
     def left_at_once(self, taken):
         """The domains that are left if each tie by itself leaves out what does not fit these outputs."""
-        domains = self.domains_with(taken)
-        left = list(domains)
+        domains = [ANY] * len(self._puzzle.full)
+        for place, output in taken.items():
+            domains[place] = 1 << output
+        left = list(self._puzzle.full)
         for tie in self._puzzle.all_ties:
             for place, domain in self._puzzle.narrowed_at(tie, domains):
                 left[place] = left[place] & domain
@@ -111,7 +113,7 @@ class Grower:
     def is_dead(self, tie, taken):
         """Whether nothing fits at the tie with these outputs alone."""
         places, fit = self._puzzle.ties[tie]
-        domains = [1 << taken[place] if place in taken else self._puzzle.full[place] for place in places]
+        domains = [1 << taken[place] if place in taken else ANY for place in places]
         return fit.rows_within(domains) == 0
 
     def stop_at(self, place, taken):

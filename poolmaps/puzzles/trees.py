@@ -6,6 +6,7 @@ at which nothing fits the outputs taken on the way. Here its nodes are told as a
 """
 
 from poolmaps.base.checks import are_numbers, is_pair
+from poolmaps.puzzles.fits import ANY
 
 MAX_NODES = 5000
 
@@ -34,12 +35,13 @@ def parents_of(puzzle, nodes):
 
 
 def taken_at(parents, number, places):
-    """A dict from those of these places that were asked on the way to a node to their outputs."""
+    """A dict from those of these places that were asked on the way to a node to the domains of what they have."""
     taken = {}
     while number > 0:
         number, place, output = parents[number]
         if place in places:
-            taken[place] = output
+            # A place that was asked twice can have both answers at once only if they are the same.
+            taken[place] = taken.get(place, ANY) & 1 << output
     return taken
 
 
@@ -48,7 +50,7 @@ def stops_well(puzzle, parents, number, ties):
     for tie in ties:
         places, fit = puzzle.ties[tie]
         taken = taken_at(parents, number, places)
-        if fit.rows_within([1 << taken[place] if place in taken else puzzle.full[place] for place in places]) == 0:
+        if fit.rows_within([taken.get(place, ANY) for place in places]) == 0:
             return True
     return False
 
@@ -61,15 +63,18 @@ def refutes(puzzle, nodes):
     parents = parents_of(puzzle, nodes)
     if parents is None:
         return False
-    asked = {}
+    return all([
+        stops_well(puzzle, parents, number, node[1]) for number, node in enumerate(nodes) if node[0] == "stop"
+    ])
+
+
+def ask_once(nodes):
+    """Whether no place is asked twice on a way, for the nodes of a tree that refutes a puzzle."""
+    asked = {0: 0}
     for number, node in enumerate(nodes):
-        before = 0
-        if number > 0:
-            front, place, _ = parents[number]
-            before = asked[front] | 1 << place
-        if node[0] == "ask" and before >> node[1] & 1:
-            return False
-        if node[0] == "stop" and not stops_well(puzzle, parents, number, node[1]):
-            return False
-        asked[number] = before
+        if node[0] == "ask":
+            if asked[number] >> node[1] & 1:
+                return False
+            for _, target in node[2]:
+                asked[target] = asked[number] | 1 << node[1]
     return True

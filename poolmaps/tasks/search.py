@@ -8,7 +8,7 @@ from poolmaps.known.words import MAX_ROUNDS, check_rounds, is_word
 from poolmaps.puzzles.fits import Fit, Puzzle
 from poolmaps.puzzles.growing import refuting_nodes
 from poolmaps.puzzles.solver import Solver, solved
-from poolmaps.puzzles.trees import MAX_NODES, refutes
+from poolmaps.puzzles.trees import MAX_NODES, ask_once, refutes
 from poolmaps.tasks.rules import Rule
 from poolmaps.tasks.tasks import MAX_OUTPUT, check_sizes, check_task
 
@@ -114,7 +114,7 @@ def is_refusal(pool, task, rounds, value):
         return False
     setting = Setting(pool, task, rounds)
     nodes = [setting.plain_node(pool, node) for node in value]
-    return None not in nodes and refutes(setting.puzzle, nodes)
+    return None not in nodes and refutes(setting.puzzle, nodes) and ask_once(nodes)
 
 
 def least_for(pool, task, *, most=3):

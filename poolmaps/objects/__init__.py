@@ -1,0 +1,1 @@
+"""Objects that two threads share: kinds, plans, courses."""

@@ -1,0 +1,1 @@
+"""Plays: rounds of one pool in rounds of another one."""
