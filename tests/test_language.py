@@ -14,7 +14,7 @@ BUILTINS = set("""len range enumerate zip min max sum abs sorted reversed int st
     classmethod super""".split())
 METHODS = set("""append clear copy count endswith extend find get index insert isalnum isalpha isdigit islower isspace
     isupper items join keys ljust lower lstrip partition pop remove replace reverse rfind rjust rpartition rsplit
-    rstrip setdefault split splitlines startswith strip update upper values zfill bit_length""".split())
+    rstrip setdefault split splitlines startswith strip update upper values zfill bit_length isascii isdecimal""".split())
 DUNDERS = set("""__init__ __eq__ __repr__ __str__ __len__ __call__ __iter__ __contains__ __getitem__ __bool__
     __and__ __mul__ __rmul__""".split())
 BARRED = set("""register mro elements open input law version_info with_traceback add_note attrgetter breakpoint
@@ -22,9 +22,11 @@ BARRED = set("""register mro elements open input law version_info with_traceback
     methodcaller os quit setattr type vars typing enum Enum Flag Generic Protocol ABC namedtuple""".split())
 STATEMENTS = (
     ast.Assign, ast.AugAssign, ast.If, ast.While, ast.For, ast.Return, ast.Break, ast.Continue, ast.Pass, ast.Raise,
-    ast.Assert, ast.Delete, ast.Expr, ast.FunctionDef,
+    ast.Assert, ast.Delete, ast.Expr, ast.FunctionDef, ast.Try,
 )
 LIBRARY = {"heapq": {"heappush", "heappop"}, "math": {"comb", "gcd"}}
+# Parameters and local variables that are functions.
+CALLED = {"change", "call", "action"}
 LISTS_ONLY = ("any", "all", "min", "max", "sum", "sorted")
 
 
@@ -143,7 +145,7 @@ class LanguageTest(TestCase):
 
     def test_statements_and_expressions(self):
         barred = (
-            ast.Lambda, ast.GeneratorExp, ast.Try, ast.With, ast.Global, ast.Nonlocal, ast.AnnAssign, ast.NamedExpr,
+            ast.Lambda, ast.GeneratorExp, ast.With, ast.Global, ast.Nonlocal, ast.AnnAssign, ast.NamedExpr,
             ast.AsyncFunctionDef, ast.Await, ast.YieldFrom, ast.Div, ast.MatMult, ast.Match,
         )
         for place, node in self.nodes():
@@ -162,7 +164,8 @@ class LanguageTest(TestCase):
             if isinstance(node, ast.BinOp) and isinstance(node.op, ast.Pow):
                 self.assertIsInstance(node.right, ast.Constant, place)
             if isinstance(node, ast.Raise):
-                self.assertTrue(is_call(node.exc, *self.classes) and node.cause is None, place)
+                self.assertTrue(is_call(node.exc, *self.classes), place)
+                self.assertTrue(node.cause is None or getattr(node.cause, "value", 0) is None, place)
             if isinstance(node, ast.Attribute) and isinstance(node.ctx, ast.Store):
                 self.assertTrue(isinstance(node.value, ast.Name), place)
 
@@ -177,6 +180,27 @@ class LanguageTest(TestCase):
         for text in ("key = (*key, 1)\nrows[key] = (*key, 2)", "rows = {(*key, 1): 2}", "rows = [*rows[1], 2]"):
             self.assertEqual(starred_indices(ast.parse(text)), [], text)
 
+    def test_stars_stand_before_plain_values(self):
+        for place, node in self.nodes():
+            if isinstance(node, ast.Set):
+                self.assertFalse([each for each in node.elts if isinstance(each, ast.Starred)], place)
+            if isinstance(node, ast.Call):
+                for each in [part.value for part in node.args if isinstance(part, ast.Starred)]:
+                    self.assertIsInstance(each, (ast.Name, ast.List, ast.Tuple), place)
+
+    def test_errors_that_are_caught_and_what_is_done_at_last(self):
+        own = {node.name for node in self.trees[FOLDER / "errors.py"].body if isinstance(node, ast.ClassDef)}
+        for place, node in self.nodes():
+            if isinstance(node, ast.Try):
+                for handler in node.handlers:
+                    caught = handler.type.elts if isinstance(handler.type, ast.Tuple) else [handler.type]
+                    self.assertTrue({each.id for each in caught} <= own, place)
+                for row in node.finalbody:
+                    self.assertIsInstance(row, ast.Assign, place)
+                    parts = [row.value, *row.targets]
+                    told = [each for part in parts for each in (part.elts if isinstance(part, ast.Tuple) else [part])]
+                    self.assertTrue(all(isinstance(each, (ast.Name, ast.Attribute)) for each in told), place)
+
     def test_calls(self):
         own = {node.name for tree in self.trees.values() for node in tree.body if isinstance(node, ast.FunctionDef)}
         for place, node in self.nodes():
@@ -184,7 +208,7 @@ class LanguageTest(TestCase):
                 continue
             if isinstance(node.func, ast.Name):
                 library = {name for names in LIBRARY.values() for name in names}
-                self.assertIn(node.func.id, BUILTINS | own | self.classes | library, place)
+                self.assertIn(node.func.id, BUILTINS | own | self.classes | library | CALLED, place)
                 if node.func.id not in own | self.classes:
                     self.assertFalse(node.keywords, place)
                 if node.func.id in LISTS_ONLY and node.args:

@@ -11,11 +11,12 @@ class Course:
     def __init__(self, plan):
         check_plan(plan)
         self._plan = plan
-        self._steps = ()
+        self.set_steps(())
 
-    def told(self):
-        """The state, who has written, the answers and the signals."""
-        return told_by_steps(self._plan, self._steps)
+    def set_steps(self, steps):
+        """Makes these the steps so far."""
+        self._steps = steps
+        self._told = told_by_steps(self._plan, steps)
 
     @property
     def plan(self):
@@ -30,22 +31,22 @@ class Course:
     @property
     def state(self):
         """The state of the object."""
-        return self.told()[0]
+        return self._told[0]
 
     @property
     def written(self):
         """The ascending tuple of the threads that have written."""
-        return self.told()[1]
+        return self._told[1]
 
     @property
     def answers(self):
         """The answers of both threads, None for a thread that has not done its operation."""
-        return self.told()[2]
+        return self._told[2]
 
     @property
     def signals(self):
         """The signals of both threads, None for a thread that has not looked."""
-        return self.told()[3]
+        return self._told[3]
 
     def move(self, thread):
         """Makes the next step of the thread: None for writing, the answer for doing, the signal for looking."""
@@ -53,13 +54,13 @@ class Course:
         made = len([each for each in self._steps if each == thread])
         if made == STEPS:
             raise InvalidOperation("the thread has made its steps")
-        self._steps = (*self._steps, thread)
+        self.set_steps((*self._steps, thread))
         return (None, self.answers[thread], self.signals[thread])[made]
 
     def undo(self, *, many=1):
         """Takes back the last steps, and tells how many remain."""
         check_many(many, len(self._steps))
-        self._steps = self._steps[:len(self._steps) - many]
+        self.set_steps(self._steps[:len(self._steps) - many])
         return len(self._steps)
 
     def web(self):
@@ -71,7 +72,7 @@ class Course:
     def twin(self):
         """An equal course that goes on by itself."""
         twin = Course(self._plan)
-        twin._steps = self._steps
+        twin.set_steps(self._steps)
         return twin
 
     def __len__(self):

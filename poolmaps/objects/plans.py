@@ -81,7 +81,10 @@ def is_interleaving(value):
 def told_by_steps(plan, steps):
     """What is told behind the first steps of a round: the state, who has written, the answers and the signals."""
     state = plan.start
-    made, written, answers, signals = [0, 0], [], [None, None], [None, None]
+    made = [0, 0]
+    written = []
+    answers = [None, None]
+    signals = [None, None]
     for thread in steps:
         made[thread] += 1
         if made[thread] == 1:

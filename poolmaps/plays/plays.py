@@ -202,6 +202,12 @@ def power_play(pool, rounds):
     return play_of_webs(pool, power, rounds, power.webs)
 
 
+def can_play(host, guest, rounds):
+    """Whether the guest can be played in so many rounds of the host."""
+    check_hosting(host, guest, rounds)
+    return PlaySetting(host, guest, rounds).found_maps() is not None
+
+
 def made_play(host, guest, rounds):
     """A play of the guest in so many rounds of the host."""
     check_hosting(host, guest, rounds)

@@ -87,24 +87,38 @@ def can_do(pool, task, rounds):
     return setting.solution(setting.puzzle.full) is not None
 
 
-def made_rule(pool, task, rounds):
-    """A rule for so many rounds that does the task, with just the views of its runs."""
+def rule_or_none(pool, task, rounds):
+    """A rule for so many rounds that does the task, with just the views of its runs, or None."""
     check_search(pool, task, rounds)
     setting = Setting(pool, task, rounds)
     outputs = setting.solution(setting.puzzle.full)
-    if outputs is None:
+    return None if outputs is None else Rule(pool, rounds, setting.table_of(outputs))
+
+
+def made_rule(pool, task, rounds):
+    """A rule for so many rounds that does the task, with just the views of its runs."""
+    rule = rule_or_none(pool, task, rounds)
+    if rule is None:
         raise InvalidOperation("no rule for so many rounds does the task")
-    return Rule(pool, rounds, setting.table_of(outputs))
+    return rule
 
 
-def refusal(pool, task, rounds):
-    """A tree of questions that shows that no rule for so many rounds does the task."""
+def refusal_or_none(pool, task, rounds):
+    """A tree of questions that shows that no rule for so many rounds does the task, or None."""
     check_search(pool, task, rounds)
     setting = Setting(pool, task, rounds)
     solver = Solver(setting.puzzle, setting.puzzle.full, setting.no_hints())
     if solver.has_solution():
-        raise InvalidOperation("some rule for so many rounds does the task")
+        return None
     return tuple([setting.told_node(node) for node in refuting_nodes(setting.puzzle, solver.weights)])
+
+
+def refusal(pool, task, rounds):
+    """A tree of questions that shows that no rule for so many rounds does the task."""
+    nodes = refusal_or_none(pool, task, rounds)
+    if nodes is None:
+        raise InvalidOperation("some rule for so many rounds does the task")
+    return nodes
 
 
 def is_refusal(pool, task, rounds, value):

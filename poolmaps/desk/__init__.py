@@ -1,0 +1,1 @@
+"""A desk with pools, tasks and rules, and claims about them that hold."""
