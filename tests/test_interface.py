@@ -10,12 +10,14 @@ from poolmaps.base.webs import Web
 from poolmaps.counts import names, rainbows, signs
 from poolmaps.groups import bars, closed, links, sieves
 from poolmaps.known import common, lots, sights, stories, words
+from poolmaps.machines import machines, right, runs
 from poolmaps.near import limits, middles
 from poolmaps.objects import kinds, plans
 from poolmaps.pairs import ever, graphs
 from poolmaps.plays import plays, powers
 from poolmaps.tasks import rules, search
 from poolmaps.tasks.tasks import Task, agreement_task, near_task
+from poolmaps.text import texts
 
 FUNCTIONS = {
     "base.webs": "silent_web(size) full_web(size) star_web(size,center) chain_web(size,first) parting_web(blocks)",
@@ -65,6 +67,14 @@ FUNCTIONS = {
     "plays.plays": """is_play(host,guest,rounds,value) same_play(pool) lesser_play(host,guest) forgetting_play(pool,web)
         power_play(pool,rounds) made_play(host,guest,rounds) play_refusal(host,guest,rounds)
         is_play_refusal(host,guest,rounds,value) never_plays(host,guest) is_never(host,guest,value)""",
+    "machines.machines": "machine_of(rule) rule_of(machine,pool,rounds,rows)",
+    "machines.runs": "met_letters(machine,pool,rows) parting_run(one,other,pool,rows)",
+    "machines.right": """is_right(machine,pool,task) right_rounds(machine,pool,task) machine_fault(machine,pool,task)
+        is_machine_fault(machine,pool,task,value) machine_certificate(machine,pool,task)
+        is_machine_certificate(machine,pool,task,value) driven_fault(machine,pool,indices)""",
+    "text.texts": """write_web(web) write_pool(pool) write_word(word) write_task(task) write_rule(rule) write_tree(tree)
+        write_claim(claim) read_web(text) read_pool(text) read_word(text) read_task(text) read_tree(text)
+        read_claim(text) read_rule(pool,text)""",
 }
 METHODS = {
     ("base.webs", "Web"): """__init__(self,heard,marks=None) signal(self,thread) hears(self,thread)
@@ -97,6 +107,15 @@ METHODS = {
     ("objects.courses", "Course"): "__init__(self,plan) move(self,thread) undo(self,*,many=1) web(self) twin(self)",
     ("plays.plays", "Play"): """__init__(self,host,guest,rounds,maps) signal_for(self,thread,number)
         word_of(self,word) then(self,other) carried(self,rule,task)""",
+    ("machines.machines", "Machine"): """__init__(self,size,states,starts,moves,decisions) beginning(self,row)
+        round_of(self,configuration,web) letters(self,configuration,web) shown_at(self,configuration)
+        with_move(self,letter,state) without_move(self,letter) with_decision(self,thread,state,output)
+        without_decision(self,thread,state) renumbered(self,numbers) __call__(self,row,pool,word)""",
+    ("machines.runs", "MachineRun"): """__init__(self,machine,pool,row) go(self,index) play(self,word)
+        undo(self,*,many=1) twin(self)""",
+    ("desk.desk", "Desk"): """__init__(self) put(self,name,value) take(self,name) revise(self,name,change)
+        demand(self,claim) waive(self,claim) undo(self,*,many=1) redo(self,*,many=1) during(self,call) twin(self)""",
+    ("text.shell", "Shell"): "__init__(self) answer(self,line) __call__(self,line) desk(self)",
 }
 SIGNS = {
     "Web": ("__contains__", "__len__", "__eq__", "__str__"),
@@ -114,6 +133,10 @@ SIGNS = {
     "Plan": ("__eq__", "__str__"),
     "Course": ("__len__", "__eq__", "__str__"),
     "Play": ("__eq__", "__str__"),
+    "Machine": ("__contains__", "__len__", "__eq__", "__str__"),
+    "MachineRun": ("__iter__", "__len__", "__eq__", "__str__"),
+    "Desk": ("__getitem__", "__contains__", "__iter__", "__len__", "__eq__", "__str__"),
+    "Shell": ("__len__",),
 }
 PROPERTIES = {
     "Web": ("heard", "marks", "size", "signals", "roots", "is_marked"),
@@ -131,10 +154,16 @@ PROPERTIES = {
     "Plan": ("kind", "start", "operations"),
     "Course": ("plan", "steps", "state", "written", "answers", "signals"),
     "Play": ("host", "guest", "rounds", "maps"),
+    "Machine": ("size", "states", "starts", "moves", "decisions", "inputs"),
+    "MachineRun": ("machine", "pool", "row", "word", "configuration", "shown", "trail"),
+    "Desk": ("names", "claims", "told"),
+    "Shell": (),
 }
 CONSTANTS = {"base.pools": {"MAX_WEBS": 80}, "known.words": {"MAX_ROUNDS": 6},
              "known.sights": {"MAX_WORDS": 3000, "MAX_RUNS": 4000},
-             "objects.kinds": {"MAX_STATES": 12, "MAX_OPERATIONS": 8}}
+             "objects.kinds": {"MAX_STATES": 12, "MAX_OPERATIONS": 8},
+             "machines.machines": {"MAX_STATES": 3000, "MAX_REACHED": 20000},
+             "desk.desk": {"MAX_ENTRIES": 8, "MAX_CLAIMS": 8}}
 
 
 def heading(function):
@@ -264,14 +293,40 @@ def calls_of_objects_and_plays():
     ]
 
 
+def calls_of_machines_and_texts():
+    """The same for machines and texts."""
+    pool, near, rows = pair_pool("RLB"), near_task(2, 3), near_task(2, 3).rows
+    rule, tree = search.made_rule(pool, near, 1), search.refusal(pool, agreement_task(2), 1)
+    machine = machines.machine_of(rule)
+    letter, claim, start = list(machine.moves)[0], ("near", "two", 1, 3), machine.beginning((0, 1))
+    work = (machine, pool, near)
+    certificate, fault = right.machine_certificate(*work), right.machine_fault(machine, pool, agreement_task(2))
+    return [
+        (machine.beginning, (0, 1)), (machine.round_of, start, pool[0]), (machine.letters, start, pool[0]),
+        (machine.shown_at, start), (machine.with_move, letter, 0), (machine.without_move, letter),
+        (machine.with_decision, 0, 0, 1), (machine.renumbered, (1, 0)), (machine, (0, 1), pool, (0, 1)),
+        (len, machine), (str, machine), (machines.machine_of, rule), (machines.rule_of, machine, pool, 1, rows),
+        (runs.met_letters, machine, pool, rows), (runs.parting_run, machine, machine.without_move(letter), pool, rows),
+        (right.is_right, *work), (right.right_rounds, *work), (right.machine_fault, *work),
+        (right.is_machine_fault, machine, pool, agreement_task(2), fault), (right.machine_certificate, *work),
+        (right.is_machine_certificate, *work, certificate), (right.driven_fault, machine, pool, (0, 1, 2)),
+        (texts.write_web, pool[0]), (texts.write_pool, pool), (texts.write_word, (0, 1)), (texts.write_task, near),
+        (texts.write_rule, rule), (texts.write_tree, tree), (texts.write_claim, claim), (texts.read_web, "1 -"),
+        (texts.read_pool, "1 - | - 0"), (texts.read_word, "0 1"), (texts.read_task, texts.write_task(near)),
+        (texts.read_tree, texts.write_tree(tree)), (texts.read_claim, "near two 1 3"),
+        (texts.read_rule, pool, texts.write_rule(rule)),
+    ]
+
+
 KEPT_OBJECTS = (
-    Web, Pool, Task, rules.Rule, rainbows.Choice, names.OrderRule, kinds.Kind, plans.Plan, plays.Play,
+    machines.Machine, Web, Pool, Task, rules.Rule, rainbows.Choice, names.OrderRule, kinds.Kind, plans.Plan, plays.Play,
 )
 
 
 class NothingChangesTest(TestCase):
     def test_calls_change_no_argument_and_are_equal_each_time(self):
-        for call, *args in [*calls(), *later_calls(), *last_calls(), *calls_of_objects_and_plays()]:
+        for call, *args in [*calls(), *later_calls(), *last_calls(), *calls_of_objects_and_plays(),
+                            *calls_of_machines_and_texts()]:
             passed = [getattr(call, "__self__", None), *args]
             watched = [value for value in passed if isinstance(value, (*KEPT_OBJECTS, tuple, dict))]
             before = deepcopy(watched)
