@@ -276,5 +276,15 @@ def near_values(value):
                 yield value[:at] + (other,) + value[at + 1:]
 
 
+def own_partings(threads):
+    """All ordered partings of these threads."""
+    if not threads:
+        return [()]
+    return [
+        (block, *behind) for many in range(1, len(threads) + 1) for block in combinations(threads, many)
+        for behind in own_partings([thread for thread in threads if thread not in block])
+    ]
+
+
 def orders(size):
     return list(permutations(range(size)))

@@ -3,14 +3,14 @@
 from functools import lru_cache
 from itertools import product
 
-from poolmaps.base.pools import partings
 from poolmaps.base.webs import Web, full_web, parting_web, silent_web
 from poolmaps.counts.signs import (
     blocks_of, is_hidden, is_partner_way, partner_way, partner_word, web_sign, word_sign,
 )
 from poolmaps.errors import InvalidNumber, InvalidOperation, InvalidWeb, InvalidWord, TooMany
 from tests.support import (
-    SNAPS, ALL3, Case, looks_like_word, near_values, not_numbers, not_webs, not_words, plain_words, slow_sights, wrong_where,
+    SNAPS, ALL3, Case, looks_like_word, near_values, not_numbers, not_webs, not_words, own_partings, plain_words,
+    slow_sights, wrong_where,
 )
 
 NO_SIZES = (InvalidNumber, not_numbers(1, 4))
@@ -37,7 +37,7 @@ def slow_partners(size, rounds):
 class SignsTest(Case):
     def test_blocks(self):
         for size in range(1, 6):
-            for blocks in partings(list(range(size)))[::1 if size < 5 else 7]:
+            for blocks in own_partings(list(range(size)))[::1 if size < 5 else 7]:
                 told = blocks_of(parting_web(blocks))
                 self.assertEqual(told, blocks)
                 self.assertEqual(web_sign(parting_web(blocks)), (-1) ** (size - len(blocks)))

@@ -13,7 +13,10 @@ def is_number(value, low, high):
 
 def are_numbers(value, low, high):
     """Whether the value is a tuple of integers from low to high."""
-    return isinstance(value, tuple) and all([is_number(part, low, high) for part in value])
+    # The check of is_number once more, for this is asked very often.
+    return isinstance(value, tuple) and all([
+        isinstance(part, int) and not isinstance(part, bool) and low <= part <= high for part in value
+    ])
 
 
 def is_climbing(parts):

@@ -1,7 +1,7 @@
 """Pools: the webs of which each round has one."""
 
 from poolmaps.base.checks import are_numbers, check_number
-from poolmaps.base.webs import MAX_THREADS, Web, chain_web, check_web, parting_web, star_web
+from poolmaps.base.webs import MAX_THREADS, Web, chain_web, check_web, star_web, web_made
 from poolmaps.errors import InvalidOperation, InvalidPool, InvalidWeb, TooMany
 
 MAX_WEBS = 80
@@ -18,7 +18,15 @@ def is_web_tuple(value):
     """Whether the value is a tuple of 1 to 80 webs of one size."""
     if not isinstance(value, tuple) or not 1 <= len(value) <= MAX_WEBS:
         return False
-    return all([isinstance(web, Web) for web in value]) and all([web.size == value[0].size for web in value])
+    if not all([isinstance(web, Web) for web in value]):
+        return False
+    size = value[0].size
+    return all([web.size == size for web in value])
+
+
+def places_of(webs):
+    """A dict from what tells webs from different ones to their indices."""
+    return {(web.heard, web.marks): index for index, web in enumerate(webs)}
 
 
 def each_once(webs):
@@ -33,10 +41,12 @@ class Pool:
     """Different webs of one size, in an order. Pools never change."""
 
     def __init__(self, webs):
-        if not is_web_tuple(webs) or len(each_once(webs)) < len(webs):
-            raise InvalidPool("these are not 1 to 80 different webs of one size")
+        if not is_web_tuple(webs):
+            raise InvalidPool("these are not 1 to 80 webs of one size")
         self._webs = webs
-        self._places = {web_key(web): index for index, web in enumerate(webs)}
+        self._places = places_of(webs)
+        if len(self._places) < len(webs):
+            raise InvalidPool("some webs are equal")
 
     @property
     def webs(self):
@@ -63,6 +73,10 @@ class Pool:
         if web not in self:
             raise InvalidWeb("this is no web of the pool")
         return self._places[web_key(web)]
+
+    def place_of(self, heard, marks):
+        """The index of the web of the pool with these parts."""
+        return self._places[(heard, marks)]
 
     def picked(self, indices):
         """The pool of the webs with these indices, in this order."""
@@ -152,24 +166,61 @@ def blocks_of_some(threads):
     return blocks[1:]
 
 
-def partings(threads):
-    """All ordered partings of these threads."""
-    if not threads:
-        return [()]
-    found = []
-    for block in blocks_of_some(threads):
-        others = [thread for thread in threads if thread not in block]
-        for behind in partings(others):
-            found.append((block, *behind))
-    return found
+def codes_of_partings(size):
+    """The list of the codes of all ordered partings of so many threads.
+
+    A code tells for each thread, `size` bits for each one, the threads of its block and of all blocks ahead.
+    """
+    whole = (1 << size) - 1
+    codes = [[0]]
+    for left in range(1, whole + 1):
+        told = []
+        for block in range(1, left + 1):
+            if block & left == block:
+                code = code_of_block(size, block, whole ^ left | block)
+                told = told + [code | behind for behind in codes[left ^ block]]
+        codes.append(told)
+    return codes[whole]
+
+
+def code_of_block(size, block, heard):
+    """The part of a code that tells for the threads of a block which threads they hear."""
+    code = 0
+    for thread in range(size):
+        if block >> thread & 1:
+            code = code | heard << size * thread
+    return code
+
+
+def in_all(masks):
+    """The bits that all masks have."""
+    shared = masks[0]
+    for mask in masks:
+        shared = shared & mask
+    return shared
+
+
+def snap_webs(size):
+    """The list of the webs of all ordered partings of so many threads, ascending by `heard`."""
+    whole = (1 << size) - 1
+    threads_in = [tuple([thread for thread in range(size) if mask >> thread & 1]) for mask in range(whole + 1)]
+    signals_in = [(threads, 0) for threads in threads_in]
+    others_in = [
+        [tuple([other for other in threads if other != thread]) for threads in threads_in] for thread in range(size)
+    ]
+    parts = []
+    for code in codes_of_partings(size):
+        masks = [code >> size * thread & whole for thread in range(size)]
+        heard = tuple([others[mask] for others, mask in zip(others_in, masks)])
+        # The threads of the first block, and nobody else, are heard by all.
+        parts.append((heard, tuple([signals_in[mask] for mask in masks]), threads_in[in_all(masks)]))
+    return [web_made(heard, signals, roots) for heard, signals, roots in sorted(parts)]
 
 
 def snap_pool(size):
     """The pool of the webs of all ordered partings of so many threads."""
     check_number(size, 1, MAX_SNAP)
-    webs = [parting_web(blocks) for blocks in partings(list(range(size)))]
-    by_heard = {web.heard: web for web in webs}
-    return Pool(tuple([by_heard[heard] for heard in sorted(by_heard)]))
+    return Pool(tuple(snap_webs(size)))
 
 
 def star_pool(size):

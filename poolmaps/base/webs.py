@@ -7,12 +7,25 @@ MAX_THREADS = 5
 MAX_MARK = 9999
 
 
+def are_others(value, thread, last):
+    """Whether the value is an ascending tuple of threads up to the last one, without this one."""
+    if not isinstance(value, tuple):
+        return False
+    front = -1
+    for other in value:
+        # True and False are values of int, too, but no integers here.
+        if not isinstance(other, int) or isinstance(other, bool) or not front < other <= last or other == thread:
+            return False
+        front = other
+    return True
+
+
 def is_hearing(value):
     """Whether the value tells of one to five threads which others they hear."""
     if not isinstance(value, tuple) or not 1 <= len(value) <= MAX_THREADS:
         return False
     last = len(value) - 1
-    return all([are_ascending(others, 0, last) and thread not in others for thread, others in enumerate(value)])
+    return all([are_others(others, thread, last) for thread, others in enumerate(value)])
 
 
 def is_marking(value, size):
@@ -34,9 +47,30 @@ def threads_reached(heard, thread):
     return tuple(sorted(reached))
 
 
+def knowing_masks(heard):
+    """For each thread the threads from which ways lead to it, itself included, as the bits of an integer."""
+    masks = []
+    for thread, others in enumerate(heard):
+        mask = 1 << thread
+        for other in others:
+            mask = mask | 1 << other
+        masks.append(mask)
+    for between, _ in enumerate(heard):
+        masks = [mask | masks[between] if mask >> between & 1 else mask for mask in masks]
+    return masks
+
+
 def roots_of(heard):
     """The ascending tuple of the threads from which ways lead to all."""
-    return tuple([thread for thread in range(len(heard)) if len(threads_reached(heard, thread)) == len(heard)])
+    shared = -1
+    for mask in knowing_masks(heard):
+        shared = shared & mask
+    return tuple([thread for thread, _ in enumerate(heard) if shared >> thread & 1])
+
+
+def pairs_in(heard):
+    """The list of the pairs of a thread and another one that it hears, ascending."""
+    return [(thread, other) for thread, others in enumerate(heard) for other in others]
 
 
 def hearing_text(pairs):
@@ -63,10 +97,9 @@ class Web:
         self._heard = heard
         self._marks = (0,) * len(heard) if marks is None else marks
         self._signals = tuple([
-            (tuple(sorted([thread, *others])), self._marks[thread]) for thread, others in enumerate(heard)
+            (tuple(sorted((thread, *others))), mark) for thread, (others, mark) in enumerate(zip(heard, self._marks))
         ])
         self._roots = roots_of(heard)
-        self._pairs = tuple([(thread, other) for thread, others in enumerate(heard) for other in others])
 
     @property
     def heard(self):
@@ -167,7 +200,7 @@ class Web:
     def is_within(self, other):
         """Whether each thread hears in the other web whom it hears in this one."""
         check_web(other, self.size)
-        return all([pair in other for pair in self._pairs])
+        return all([each in theirs for mine, theirs in zip(self._heard, other.heard) for each in mine])
 
     def renumbered(self, numbers):
         """The web in which each thread has its new number."""
@@ -181,22 +214,33 @@ class Web:
         return Web(tuple(heard), tuple(marks))
 
     def __contains__(self, x):
-        return are_numbers(x, 0, MAX_THREADS) and x in self._pairs
+        return are_numbers(x, 0, MAX_THREADS) and x in pairs_in(self._heard)
 
     def __len__(self):
-        return len(self._pairs)
+        return len(pairs_in(self._heard))
 
     def __eq__(self, other):
         return isinstance(other, Web) and self._heard == other._heard and self._marks == other._marks
 
     def __str__(self):
-        return f"web of {len(self._heard)} threads: {hearing_text(self._pairs)}{marks_text(self._marks)}"
+        return f"web of {len(self._heard)} threads: {hearing_text(pairs_in(self._heard))}{marks_text(self._marks)}"
 
 
 def check_web(web, size):
     """Raises InvalidWeb for anything but a web of this size."""
     if not isinstance(web, Web) or web.size != size:
         raise InvalidWeb("this is no web with so many threads")
+
+
+def web_made(heard, signals, roots):
+    """The web without marks that has these parts, which are known to fit."""
+    # Pools of many webs are made often, so what is known already is not checked and reckoned once more.
+    web = Web(((),))
+    web._heard = heard
+    web._marks = (0,) * len(heard)
+    web._signals = signals
+    web._roots = roots
+    return web
 
 
 def web_of(hearing, marks):

@@ -7,7 +7,7 @@ from poolmaps.base.pools import MAX_SNAP, MAX_WEBS, check_thread, snap_pool
 from poolmaps.counts.signs import product_of_signs, signs_of
 from poolmaps.errors import InvalidOperation, InvalidRule, InvalidWord, TooMany
 from poolmaps.known.sights import (
-    MAX_ROWS, all_rows, check_few_runs, check_few_words, is_row_tuple, views_in_runs,
+    MAX_ROWS, all_rows, check_few_runs, check_few_words, is_row_tuple, sight_table, views_in_runs,
 )
 from poolmaps.known.words import all_words, check_word
 from poolmaps.tasks.rules import Rule
@@ -54,44 +54,52 @@ def pattern_of(size, word, thread):
     return pattern_behind(pool, word, thread, list(range(size)))
 
 
-def patterns_behind(pool, word):
-    """The tuple of the patterns of all threads behind a word."""
-    return tuple([pattern_behind(pool, word, thread, list(range(pool.size))) for thread in range(pool.size)])
-
-
-def patterns_by_word(size, rounds):
-    """A dict from the pairs (many, word), for snap pools of at most so many threads, to the patterns of all threads."""
-    told = {}
-    for many in range(1, size + 1):
-        pool = snap_pool(many)
-        for word in all_words(pool, rounds):
-            told[(many, word)] = patterns_behind(pool, word)
+def patterns_in(pool, rounds):
+    """A dict from the words of a snap pool with so many rounds to the patterns of all threads."""
+    ranks = list(range(pool.size))
+    told, kept = {}, {}
+    for word, numbers in sight_table(pool, rounds).items():
+        # A thread has one pattern behind all words behind which it has the same sight.
+        for thread, number in enumerate(numbers):
+            if (thread, number) not in kept:
+                kept[(thread, number)] = pattern_behind(pool, word, thread, ranks)
+        told[word] = tuple([kept[sight] for sight in enumerate(numbers)])
     return told
 
 
-def check_size_and_rounds(size, rounds):
-    """The errors of a size and a number of rounds, and TooMany for too many words."""
-    check_few_words(snap_pool(size), rounds)
+def patterns_by_word(pool, rounds):
+    """A dict from the pairs (many, word), for this snap pool and those of fewer threads, to the patterns of all."""
+    told = {}
+    for many in range(1, pool.size + 1):
+        for word, patterns_told in patterns_in(snap_pool(many) if many < pool.size else pool, rounds).items():
+            told[(many, word)] = patterns_told
+    return told
+
+
+def pool_with_few_words(size, rounds):
+    """The snap pool, behind the errors of a size and a number of rounds, and TooMany for too many words."""
+    pool = snap_pool(size)
+    check_few_words(pool, rounds)
+    return pool
 
 
 def patterns(size, rounds):
     """The ascending tuple of all patterns behind so many rounds in snap pools of at most so many threads."""
-    check_size_and_rounds(size, rounds)
-    return tuple(sorted({pattern for told in patterns_by_word(size, rounds).values() for pattern in told}))
+    by_word = patterns_by_word(pool_with_few_words(size, rounds), rounds)
+    return tuple(sorted({pattern for told in by_word.values() for pattern in told}))
 
 
-def has_plain_numbers(value):
-    """Whether the value is an integer, and neither True nor False, or a tuple of such values."""
-    if isinstance(value, tuple):
-        return all([has_plain_numbers(part) for part in value])
-    return isinstance(value, int) and not isinstance(value, bool)
+def has_truth(pattern):
+    """Whether True or False stands somewhere in a value that is equal to a pattern."""
+    # Integers and tuples of them have no letters in their texts.
+    return "e" in repr(pattern)
 
 
 def are_names(value, told):
     """Whether the value is a dict from just these patterns to names."""
     if not isinstance(value, dict) or len(value) != len(told):
         return False
-    if not all([has_plain_numbers(pattern) and pattern in told for pattern in value]):
+    if not all([pattern in told and not has_truth(pattern) for pattern in value]):
         return False
     return all([is_number(name, 1, MAX_NAME) for name in value.values()])
 
@@ -100,10 +108,10 @@ class OrderRule:
     """A name for each pattern. Order rules never change."""
 
     def __init__(self, size, rounds, names):
-        check_size_and_rounds(size, rounds)
+        pool = pool_with_few_words(size, rounds)
         self._size = size
         self._rounds = rounds
-        self._by_word = patterns_by_word(size, rounds)
+        self._by_word = patterns_by_word(pool, rounds)
         told = {pattern: True for patterns_told in self._by_word.values() for pattern in patterns_told}
         if not are_names(names, told):
             raise InvalidRule("this is no dict from all patterns to names")
@@ -255,17 +263,24 @@ def unlike_rows(size, parts):
     return [row for row in all_rows(size, parts) if len(set(row)) == size]
 
 
+def count_unlike_rows(size, parts):
+    """The number of the rows of unlike numbers below `parts`."""
+    many = 1
+    for at in range(size):
+        many = many * (parts - at)
+    return many
+
+
 def names_task(size, names, inputs):
     """The task of taking unlike names up to `names`, for all rows of unlike inputs below `inputs`."""
     check_number(size, 1, MAX_SNAP)
     check_number(names, size, MAX_NAMED)
     check_number(inputs, size, MAX_NAMED)
-    rows = unlike_rows(size, inputs)
-    if len(rows) > MAX_ROWS:
+    if count_unlike_rows(size, inputs) > MAX_ROWS:
         raise TooMany(MAX_ROWS)
+    check_few_rights(count_unlike_rows(size, names))
     rights = tuple([tuple([1 + part for part in row]) for row in unlike_rows(size, names)])
-    check_few_rights(rights)
-    return Task({row: rights for row in rows})
+    return Task({row: rights for row in unlike_rows(size, inputs)})
 
 
 def triangle_row(pool, rounds, names_by_word, group):

@@ -3,8 +3,7 @@
 from poolmaps.base.pools import check_thread, snap_pool
 from poolmaps.base.webs import Web, parting_web
 from poolmaps.errors import InvalidOperation, InvalidWeb
-from poolmaps.known.chains import shortest_chain
-from poolmaps.known.sights import check_few_words, sight_table
+from poolmaps.known.sights import check_few_words
 from poolmaps.known.words import check_word, is_word
 
 
@@ -26,15 +25,25 @@ def blocks_of(web):
     return blocks
 
 
+def sign_of_many(size, blocks):
+    """The sign of a parting of so many threads into so many blocks."""
+    return 1 if (size - blocks) % 2 == 0 else -1
+
+
 def web_sign(web):
     """1 if the size less the number of blocks is even, and -1 otherwise."""
     blocks = blocks_of(web)
-    return 1 if (web.size - len(blocks)) % 2 == 0 else -1
+    return sign_of_many(web.size, len(blocks))
+
+
+def sign_in_snap(web):
+    """The sign of a web that is known to be that of a parting: each of its blocks hears another number of threads."""
+    return sign_of_many(web.size, len({len(others) for others in web.heard}))
 
 
 def signs_of(pool):
     """The list of the signs of the webs of a snap pool."""
-    return [web_sign(web) for web in pool.webs]
+    return [sign_in_snap(web) for web in pool.webs]
 
 
 def product_of_signs(signs, word):
@@ -49,7 +58,10 @@ def word_sign(size, word):
     """The product of the signs of the webs of a word."""
     pool = snap_pool(size)
     check_word(pool, word)
-    return product_of_signs(signs_of(pool), word)
+    sign = 1
+    for index in word:
+        sign = sign * sign_in_snap(pool.webs[index])
+    return sign
 
 
 def is_heard(web, thread):
@@ -71,48 +83,57 @@ def is_hidden(size, word, thread):
     return not any([is_heard(pool.webs[index], thread) for index in word])
 
 
-def turned_web(web, thread):
-    """The other web of a parting in which all threads but this one, which is heard, hear the same."""
-    blocks = list(blocks_of(web))
-    place = [at for at, block in enumerate(blocks) if thread in block][0]
-    others = tuple([each for each in blocks[place] if each != thread])
-    if others:
-        return parting_web((*blocks[:place], (thread,), others, *blocks[place + 1:]))
-    joined = tuple(sorted([thread, *blocks[place + 1]]))
-    return parting_web((*blocks[:place], joined, *blocks[place + 2:]))
+def turned_hearing(web, thread):
+    """The threads that this one hears in the other parting in which all others hear the same.
+
+    If others are in its block, it goes ahead of them; otherwise those of the next block come to it.
+    """
+    behind = [other for other, others in enumerate(web.heard) if thread in others]
+    beside = [other for other in behind if other in web.heard[thread]]
+    if beside:
+        return tuple([other for other in web.heard[thread] if other not in beside])
+    least = min([len(web.heard[other]) for other in behind])
+    following = [other for other in behind if len(web.heard[other]) == least]
+    return tuple(sorted([*web.heard[thread], *following]))
 
 
-def partners_in(pool, words):
-    """A dict from the pairs (index, thread) of a heard thread to the index of the turned web, for these words."""
-    return {
-        (index, thread): pool.index_of(turned_web(pool.webs[index], thread))
-        for index in sorted({each for word in words for each in word})
-        for thread in range(pool.size) if is_heard(pool.webs[index], thread)
-    }
+def turned_index(pool, index, thread):
+    """The index of the other web in which all threads but this one, which is heard, hear the same."""
+    web = pool.webs[index]
+    heard = (*web.heard[:thread], turned_hearing(web, thread), *web.heard[thread + 1:])
+    return pool.place_of(heard, web.marks)
 
 
-def partner_of(partners, word, thread):
-    """The partner word by the partners of all webs, or None.
+def last_heard(pool, word, thread):
+    """The last round of a word in which the thread is heard, or None."""
+    for place in range(len(word) - 1, -1, -1):
+        if is_heard(pool.webs[word[place]], thread):
+            return place
+    return None
+
+
+def partner_of(pool, word, thread):
+    """The partner of a word for the thread, or None.
 
     It has another web in the last round in which the thread is heard: nobody hears afterwards what the
     thread sees then.
     """
-    for place in range(len(word) - 1, -1, -1):
-        key = (word[place], thread)
-        if key in partners:
-            return (*word[:place], partners[key], *word[place + 1:])
-    return None
+    place = last_heard(pool, word, thread)
+    if place is None:
+        return None
+    return (*word[:place], turned_index(pool, word[place], thread), *word[place + 1:])
+
+
+def partners_of(pool, word):
+    """The list of the partners of a word for all threads that are not hidden."""
+    partners = [partner_of(pool, word, thread) for thread in range(pool.size)]
+    return [partner for partner in partners if partner is not None]
 
 
 def partner_word(size, word, thread):
     """The only other word behind which each other thread has the same sight, or None."""
     pool = check_word_and_thread(size, word, thread)
-    return partner_of(partners_in(pool, [word]), word, thread)
-
-
-def without_thread(numbers, thread):
-    """The numbers of the sights of all other threads."""
-    return (*numbers[:thread], *numbers[thread + 1:])
+    return partner_of(pool, word, thread)
 
 
 def partner_way(size, one, other):
@@ -123,11 +144,21 @@ def partner_way(size, one, other):
     if len(one) != len(other):
         raise InvalidOperation("the words have unlike lengths")
     check_few_words(pool, len(one))
-    labels = {
-        word: [(thread, without_thread(numbers, thread)) for thread in range(size)]
-        for word, numbers in sight_table(pool, len(one)).items()
-    }
-    return (one, *[word for _, word in shortest_chain(labels, one, other)])
+    fronts = {other: None}
+    queue = [other]
+    at = 0
+    # From the other word back to the first one, for partners are partners of one another.
+    while one not in fronts:
+        word = queue[at]
+        at += 1
+        for partner in partners_of(pool, word):
+            if partner not in fronts:
+                fronts[partner] = word
+                queue.append(partner)
+    way = [one]
+    while way[-1] != other:
+        way.append(fronts[way[-1]])
+    return tuple(way)
 
 
 def is_partner_way(size, value):
@@ -135,8 +166,4 @@ def is_partner_way(size, value):
     pool = snap_pool(size)
     if not isinstance(value, tuple) or not value or not all([is_word(pool, word) for word in value]):
         return False
-    partners = partners_in(pool, value)
-    for at in range(1, len(value)):
-        if value[at] not in [partner_of(partners, value[at - 1], thread) for thread in range(size)]:
-            return False
-    return True
+    return all([following in partners_of(pool, word) for word, following in zip(value, value[1:])])

@@ -178,9 +178,9 @@ def moved_row(row, numbers):
     return tuple(moved)
 
 
-def check_few_rights(rights):
-    """Raises TooMany if there are too many right output rows."""
-    if len(rights) > MAX_RIGHTS:
+def check_few_rights(many):
+    """Raises TooMany for too many right output rows."""
+    if many > MAX_RIGHTS:
         raise TooMany(MAX_RIGHTS)
 
 
@@ -206,18 +206,32 @@ def near_task(size, most):
     """Near agreement with so many steps, for all rows of inputs 0 and 1."""
     check_number(size, 1, MAX_THREADS)
     check_number(most, 1, MAX_OUTPUT)
-    table = {row: near_rights(size, most) for row in all_rows(size, 2)[1:-1]}
-    for rights in table.values():
-        check_few_rights(rights)
+    mixed = all_rows(size, 2)[1:-1]
+    # All outputs equal to 0, or, for each least output below `most`, some of the others greater by 1.
+    check_few_rights(1 + most * (count_rows(size, 2) - 1) if mixed else 1)
+    rights = near_rights(size, most) if mixed else ()
+    table = {row: rights for row in mixed}
     table[(0,) * size] = ((0,) * size,)
     table[(1,) * size] = ((most,) * size,)
     return Task(table)
+
+
+def count_choices(size, many):
+    """The number of rows of so many threads, with inputs below their number, with at most `many` different ones."""
+    counts = [1]
+    for _ in range(size):
+        counts = [
+            (counts[unlike] * unlike if unlike < len(counts) else 0)
+            + (counts[unlike - 1] * (size - unlike + 1) if unlike > 0 else 0)
+            for unlike in range(len(counts) + 1)
+        ]
+    return sum(counts[:many + 1])
 
 
 def choice_task(size, many):
     """The task with one row, all inputs unlike, in which at most so many different ones are put out."""
     check_number(size, 1, MAX_THREADS)
     check_number(many, 1, size)
+    check_few_rights(count_choices(size, many))
     rights = tuple([right for right in all_rows(size, size) if len(set(right)) <= many])
-    check_few_rights(rights)
     return Task({tuple(range(size)): rights})
