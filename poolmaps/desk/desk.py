@@ -83,7 +83,10 @@ class Desk:
     def revise(self, name, change):
         """Puts what the call of `change` with the entry returns in its place."""
         self.check_entry(name)
-        return self.put(name, change(self._now.entries[name]))
+        elder = self._now
+        self.put(name, change(elder.entries[name]))
+        # Not the news of putting, for the call of `change` can have changed the desk, too.
+        return self._now.news_behind(elder)
 
     def demand(self, claim):
         """Adds a claim that holds from now on."""
