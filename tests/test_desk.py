@@ -244,6 +244,8 @@ class DeskTest(Case):
         for at in range(8):
             self.assertEqual(desk.put("abcdefgh"[at], VALUES[at]), (("abcdefgh"[at], telling(VALUES[at])),))
         self.fails_keeping(TooMany, 8, desk.put, "i", VALUES[0])
+        self.assertEqual(desk.twin().take("a") and desk.twin().during(lambda each: (each.take("a"), each.put(
+            "abcdefgh", VALUES[0]))[1]), (("abcdefgh", "agrees"),))
         self.fails(InvalidOperation, desk.put, "i", None)
         self.assertEqual(desk.put("a", VALUES[0]), ())
         for value in values[1]:
@@ -278,6 +280,11 @@ class DeskTest(Case):
             self.assertEqual(desk.demand(claim), ())
             self.fails(InvalidOperation, desk.demand, claim)
             self.assertEqual(desk.claims, tuple(right[:at + 1]))
+        for claim in right:
+            for value in near_values(claim):
+                if not looks_like_claim(value):
+                    self.assertIs(value in desk, False)
+                    self.fails(InvalidOperation, desk.waive, value)
         self.fails_keeping(UnknownName, "x", desk.demand, ("within", "x", "y"))
         self.fails_keeping(UnknownName, "y", desk.demand, ("within", "a", "y"))
         self.fails_keeping(TooMany, 8, desk.demand, ("agrees", "b"))

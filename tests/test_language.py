@@ -201,6 +201,12 @@ class LanguageTest(TestCase):
                     told = [each for part in parts for each in (part.elts if isinstance(part, ast.Tuple) else [part])]
                     self.assertTrue(all(isinstance(each, (ast.Name, ast.Attribute)) for each in told), place)
 
+    def test_names_of_caught_errors_stand_for_nothing_else(self):
+        for path, _, function in self.functions():
+            caught = [node.name for node in ast.walk(function) if isinstance(node, ast.ExceptHandler) and node.name]
+            self.assertEqual(len(caught), len(set(caught)), (path, function.name))
+            self.assertFalse(set(caught) & bound_in(function), (path, function.name))
+
     def test_calls(self):
         own = {node.name for tree in self.trees.values() for node in tree.body if isinstance(node, ast.FunctionDef)}
         for place, node in self.nodes():

@@ -188,7 +188,8 @@ class MachinesTest(Case):
 
     def test_equality(self):
         told = [FOLLOW, FOLLOW.with_move(LETTER, 3), FOLLOW.with_decision(0, 0, 0), FOLLOW.without_decision(0, 2),
-                Machine(2, 5, STARTS, MOVES, FOLLOW.decisions), Machine(2, 4, {**STARTS, (0, 0): 0}, MOVES, {}),
+                Machine(2, 5, STARTS, MOVES, FOLLOW.decisions),
+                Machine(2, 4, {**STARTS, (0, 0): 0}, MOVES, FOLLOW.decisions), Machine(2, 4, STARTS, MOVES, {}),
                 Machine(2, 4, dict(reversed(STARTS.items())), dict(reversed(MOVES.items())), FOLLOW.decisions)]
         for one, other in product(told, told):
             same = all(vars(one)[name] == vars(other)[name] for name in vars(one))
@@ -292,6 +293,11 @@ class RulesTest(Case):
         whole = {(0, 0, tuple(enumerate(row))): 1 for row in product(range(9), repeat=3)}
         self.assertEqual(machine_of(Rule(full, 4, whole)).states, 9 + 4 * 729)
         self.fails_keeping(TooMany, 3000, machine_of, Rule(full, 5, whole))
+        # 10 + 10 * 9 + 100 * 29 views, and ten more.
+        webs = [Web(((1,), ()), (mark, 0)) for mark in range(29)] + [Web(((), ()), (mark, 0)) for mark in range(10)]
+        outputs = {(1, 0, ((1, entry),)): 0 for entry in range(10)}
+        self.assertEqual(machine_of(Rule(Pool(tuple(webs[:-1])), 1, outputs)).states, 3000)
+        self.fails_keeping(TooMany, 3000, machine_of, Rule(Pool(tuple(webs)), 1, outputs))
         one = Pool((Web(((),)), Web(((),), (1,))))
         for rounds in range(1, 7):
             told = sum(10 * 2 ** many for many in range(rounds + 1))

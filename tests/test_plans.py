@@ -96,11 +96,12 @@ class PlansTest(Case):
             (InvalidNumber, not_numbers(0, 2))))
         plan = Plan(flag_kind(), 0, 0, 0)
         orders = wrong_where(lambda value: is_int_tuple(value) and value in ((0,), (0, 1), (1, 0)),
-                             (1,), (0, 0), (0, 1, 0), (False, 1), (0, True), [0, 1], "01")
+                             (1,), (0, 0), (0, 1, 0), (False, 1), (0, True), [0, 1], "01", (0, -1), (0, 2))
         self.checks_arguments(plan.seen, (0, (0,)), ((InvalidNumber, not_numbers(0, 1)), (InvalidOperation, orders)))
         plans = (InvalidOperation, wrong_where(lambda value: type(value) is Plan, flag_kind()))
         steps = (InvalidOperation, wrong_where(lambda value: False, (0, 0, 1, 1), (0, 0, 0, 0, 1, 1), (0,) * 6,
-                                               (False, 0, 0, 1, 1, 1), [0, 0, 0, 1, 1, 1], (0, 0, 0, 1, 1, 1, 1)))
+                                               (False, 0, 0, 1, 1, 1), [0, 0, 0, 1, 1, 1], (0, 0, 0, 1, 1, 1, 1), (0, 0, 1, 1, 1),
+                                               (0, 0, 0, 0, 1, 1, 1), (0, 0, 0, 0, 1, 2), (-1, 0, 1, 1, 1, 1)))
         self.checks_arguments(plan_web, (plan, TWENTY[0]), (plans, steps))
         for call in (plan_pool, tells, confusion, plan_rule):
             self.checks_arguments(call, (plan,), (plans,))

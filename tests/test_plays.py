@@ -210,6 +210,15 @@ class PlaysTest(Case):
             refusal = play_refusal(host, guest, 1)
             for value in near_values(refusal):
                 self.assertIs(is_play_refusal(host, guest, 1, value), slow_is_refusal(host, guest, 1, value))
+        told = 0
+        for host, guest in drawn_pools(150, 167):
+            if has_play(host, guest, 1) is False:
+                refusal = play_refusal(host, guest, 1)
+                if 3 < len(refusal) < 7 and told < 4:
+                    told += 1
+                    for value in near_values(refusal):
+                        self.assertIs(is_play_refusal(host, guest, 1, value), slow_is_refusal(host, guest, 1, value))
+        self.assertEqual(told, 4)
         for judge in (is_play, is_play_refusal):
             self.judges(judge, (SNAP, ENDS, 1))
         self.judges(is_never, (SNAP, ENDS))
@@ -235,6 +244,16 @@ class PlaysTest(Case):
             ("ask", 0, 0, ((one, 1), (other, 2))), ("ask", 0, 0, ((one, 3), (other, 4))),
             ("ask", 1, 0, ((first, 5), (second, 6))), ("stop", (0,)), ("stop", (0,)), ("stop", (0,)), ("stop", (0,)))
         self.assertIs(is_play_refusal(host, guest, 1, tree), slow_is_refusal(host, guest, 1, tree))
+
+    def test_the_most_nodes(self):
+        # A sight that is asked again and again, and at last one without a signal.
+        host, guest = pair_pool("BR"), pair_pool("B")
+        heard = numbered(host, 1)[(0,)][0]
+        alone = numbered(host, 1)[(1,)][0]
+        for many in (1, 2, 4999, 5000):
+            chain = tuple(("ask", 0, heard, ((((0, 1), 0), at + 1),)) for at in range(many))
+            self.assertIs(is_play_refusal(host, guest, 1, (*chain, ("ask", 0, alone, ()))), many < 5000)
+        self.assertIs(is_play_refusal(host, guest, 1, ()), False)
 
     def test_properties_and_words(self):
         for host, guest, rounds in ((SNAP, pair_pool("RLBN"), 1), (SNAP, power_pool(SNAP, 2), 2), (ENDS, SNAP, 2)):
@@ -271,6 +290,13 @@ class PlaysTest(Case):
             self.assertIs(one != other, not same)
         for value in WRONG:
             self.assertIs(plays[0] == value, False)
+        # Alike but for the rounds, or but for the maps.
+        both, wide = pair_pool("B"), Pool((BOTH, BOTH.with_mark(0, 1)))
+        one, other = ({0: ((0, 1), 0)}, {0: ((0, 1), 0)}), ({0: ((0, 1), 1)}, {0: ((0, 1), 0)})
+        self.assertTrue(Play(both, both, 1, one) == Play(both, both, 1, one))
+        self.assertTrue(Play(both, both, 1, one) != Play(both, both, 2, one))
+        self.assertTrue(Play(both, wide, 1, one) != Play(both, wide, 1, other))
+        self.assertTrue(Play(both, wide, 1, one) != Play(both, both, 1, one))
         maps = same_play(SNAP).maps
         passed = tuple(dict(reversed(list(told.items()))) for told in maps)
         play = Play(SNAP, SNAP, 1, passed)
@@ -412,6 +438,17 @@ class NeverTest(Case):
                 value = never_plays(host, guest)
                 for near in near_values((form, *value[1:])):
                     self.assertIs(is_never(host, guest, near), slow_is_never(host, guest, near))
+
+    def test_forms_of_another_length(self):
+        host, guest = pair_pool("BN"), pair_pool("RB")
+        for value, right in ((("roots", 1), True), (("roots", -1), False), (("roots", 0), False), (("roots", 2), False),
+                             (("roots", 1, 0, 1), False), (("roots",), False), (("hear", 1, 0, 1), True),
+                             (("hear", 1, 0, -1), False), (("hear", 1), False), (("hear", 1, 0, 2), False)):
+            self.assertIs(is_never(host, guest, value), right, value)
+        group = never_plays(SNAP, ENDS)[1]
+        for value, right in ((("agree", group), True), (("agree", group, 0, 0), False), (("agree", (0, 1)), False),
+                             (("roots", group), False), (("agree", group, 0), False)):
+            self.assertIs(is_never(SNAP, ENDS, value), right, value)
 
     def test_near_limits(self):
         for host, guest in PAIRS[:225:7]:

@@ -85,3 +85,5 @@ class PowersTest(Case):
         self.fails(InvalidWord, power_word, pool, 4, (0,) * 5)
         self.assertEqual(power_word(pool, 3, ()), ())
         self.assertEqual(len(power_pool(snap_pool(4), 1)), 75)
+        wide = Pool(tuple(silent_web(1).with_mark(0, mark) for mark in range(80)))
+        self.assertEqual((len(power_pool(wide, 1)), power_word(wide, 1, (79, 0))), (80, (79, 0)))

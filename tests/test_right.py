@@ -195,6 +195,39 @@ class RightMachinesTest(Case):
         self.assertIs(is_machine_certificate(*work, ("right", told)), slow_is_certificate(*work, ("right", told)))
         self.assertIs(is_machine_certificate(*work, ("right", told)), True)
 
+    def test_certificates_of_machines_that_go_on(self):
+        """Machines whose states only grow: each has ranks, which are right or not."""
+        chain = Machine(1, 4, {(0, 0): 0}, {(0, s, 0, ()): s + 1 for s in range(3)}, {(0, 2): 5, (0, 3): 5})
+        work = (chain, snap_pool(1), Task({(0,): ((5,),)}))
+        self.assertEqual(machine_certificate(*work), ("right", {(0,): {(0,): 2, (1,): 1, (2,): 0, (3,): 0}}))
+        for value in near_values(machine_certificate(*work)):
+            self.assertIs(is_machine_certificate(*work, value), slow_is_certificate(*work, value))
+        drawn, told = Random(109), [0, 0]
+        for _ in range(600):
+            pool = drawn.choice([snap_pool(1), pair_pool("N"), pair_pool("RL"), pair_pool("B")])
+            machine = drawn_machine(drawn, pool, states=4, inputs=(0,), moving=0, deciding=0.6, outputs=(5, 5, 5, 6))
+            for web in pool:
+                for configuration in product(range(4), repeat=pool.size):
+                    for letter in machine.letters(configuration, web):
+                        if letter[1] < 3 and drawn.random() < 0.9:
+                            machine = machine.with_move(letter, drawn.randrange(letter[1] + 1, 4))
+            task = Task({(0,) * pool.size: ((5,) * pool.size, (6,) * pool.size)})
+            ranks = {}
+            for each in sorted(reached_by_hand(machine, pool, (0,) * pool.size), key=sum, reverse=True):
+                behind = [ranks.get(round_by_hand(machine, each, web), 0) for web in pool]
+                ranks[each] = 1 + max(behind) if None in shown_by_hand(machine, each) else 0
+            for change in (None, *ranks):
+                value = {each: rank + (each == change) for each, rank in ranks.items()}
+                value = ("right", {(0,) * pool.size: value})
+                right = slow_is_certificate(machine, pool, task, value)
+                self.assertIs(is_machine_certificate(machine, pool, task, value), right)
+                told[right] += 1
+                if change is None:
+                    self.assertIs(is_right(machine, pool, task), right)
+                    if right:
+                        self.assertEqual(machine_certificate(machine, pool, task), value)
+        self.assertGreater(min(told), 50)
+
     def test_machines_of_rules(self):
         drawn = Random(103)
         for pool, task, rounds in [
@@ -268,7 +301,7 @@ class DrivenFaultTest(Case):
         machines = (InvalidMachine, wrong_where(lambda value: type(value) is Machine))
         indices = (InvalidOperation, wrong_where(
             lambda value: is_int_tuple(value) and value and list(value) == sorted(set(value)) and 0 <= value[0]
-            and value[-1] < 3, (0, 0), (1, 0), (0, 3), (True, 2), [0, 1, 2]))
+            and value[-1] < 3, (0, 0), (1, 0), (0, 3), (True, 2), [0, 1, 2], (2, 1, 0), (0, 2, 1), (0, 1, 1, 2), (-1, 0, 1)))
         self.checks_arguments(driven_fault, (FOLLOW, pool, (0, 1, 2)), (machines, (InvalidPool, not_pools()), indices))
         self.fails(InvalidOperation, driven_fault, FOLLOW, snap_pool(3), (0, 1, 2))
         self.fails(InvalidOperation, driven_fault, FOLLOW, pool, (0, 1))

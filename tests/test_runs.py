@@ -22,10 +22,11 @@ from tests.test_machines import are_rows, drawn_machines
 POOLS = [*pair_pools(), *marked_pools()[:4], star_pool(3)]
 
 
-def counting(base, size):
-    """A machine whose threads count, each one on its own mark."""
-    moves = {(t, s, 1, ()): (s + 1) % base for t in range(size) for s in range(base)}
-    return Machine(size, base, {(t, entry): entry for t in range(size) for entry in (0, 1)}, moves, {})
+def counting(base, size, last=None):
+    """A machine whose threads count, each one on its own mark, the last one perhaps further."""
+    bases = [base] * (size - 1) + [last or base]
+    moves = {(t, s, 1, ()): (s + 1) % bases[t] for t in range(size) for s in range(bases[t])}
+    return Machine(size, max(bases), {(t, entry): entry for t in range(size) for entry in (0, 1)}, moves, {})
 
 
 def marking(size):
@@ -125,6 +126,8 @@ class MetLettersTest(Case):
         rows = ((0,) * 4,)
         self.assertEqual(len(met_letters(counting(11, 4), marking(4), rows)), 4 * 11 * 2)
         self.fails_keeping(TooMany, 20000, met_letters, counting(12, 4), marking(4), rows)
+        self.assertEqual(len(met_letters(counting(10, 4, 20), marking(4), rows)), 50 * 2)
+        self.fails_keeping(TooMany, 20000, met_letters, counting(10, 4, 21), marking(4), rows)
 
 
 class PartingRunTest(Case):

@@ -28,7 +28,7 @@ TASKS = [agreement_task(2), near_task(2, 3), choice_task(3, 2), agreement_task(1
          Task({(9, 0): ((0, 99), (10, 0)), (0, 1): ((5, 5),)}), Task({(3,): ((0,), (42,))})]
 TREES = [
     (("ask", (0, 0, ((0, 1),)), ((0, 1),)), ("stop", (1, 1), ())), refusal(pair_pool("RLB"), agreement_task(2), 1),
-    (("stop", (9,), (79, 0)),), (("ask", (4, 10 ** 59, ((0, 9), (4, 0))), ((0, 0), (99, 10 ** 60 - 1))),),
+    (("stop", (9,), (79, 0)), ("stop", (0, 1, 2, 3, 4), (1,) * 6)), (("ask", (4, 10 ** 59, ((0, 9), (4, 0))), ((0, 0), (99, 10 ** 60 - 1))),),
 ]
 CLAIMS = [("agrees", "a"), ("never", "abcdefgh"), ("within", "a", "b"), ("can", "two", "same", 6), ("does", "x", "y"),
           ("near", "two", 0, 10 ** 60 - 1), ("near", "two", 1, 0)]
@@ -203,7 +203,8 @@ class TextsTest(Case):
         for text in ("ask 0 0 > 0:1", "ask 0 0 1=0 > 0:1", "ask 5 0 5=0 > 0:1", "ask 0 0 0=0 > ", "ask 0 0 0=0 > -",
                      "ask 0 0 0=0 > 1:1 0:2", "ask 0 0 0=0 > 100:1", "ask 0 0 1=0 0=0 > 0:1", "ask 0 0 0=10 > 0:1",
                      "stop - | -", "stop 0 | 80", "stop 0", "stop 0 |", "stop 0 | ", "stop 0 0 0 0 0 0 | -", "ask", "stop",
-                     "asks 0 0 0=0 > 0:1", "stop 0 | - ;", "ask 0 " + "1" * 61 + " 0=0 > 0:1", "go 0 | -"):
+                     "asks 0 0 0=0 > 0:1", "stop 0 0 0 0 0 | 0 0 0 0 0 0 0",
+                     "ask 0 0 0=0 5=0 > 0:1", "ask 0 " + "1" * 5000 + " 0=0 > 0:1", "ask", "stop 0 | - ;", "ask 0 " + "1" * 61 + " 0=0 > 0:1", "go 0 | -"):
             self.fails(ParseError, read_tree, text)
         many = tuple([("stop", (0, 1), (2, 3))] * 6000)
         self.assertEqual(read_tree(write_tree(many)), many)
@@ -228,7 +229,7 @@ class TextsTest(Case):
         for text in ("7", "01", "-1", "", "0 ;", "0 ; 0 0 > 1", "0 ; 0 0 0=1 > 100", "0 ; 0 0 0=10 > 1", "0 ; 2 0 2=0 > 1",
                      "0 ; 0 1 0=0 > 1", "0 ; 0 0 0=0 1=0 > 1", "1 ; 0 0 0=0 1=0 > 1", "1 ; 0 1 0=0 > 1",
                      "0 ; 1 0 1=0 > 1 ; 0 0 0=0 > 1", "0 ; 0 0 0=0 > 1 ; 0 0 0=0 > 1", "0 ; 0 0 0=0 > 1 ; 0 0 0=0 > 2",
-                     "0 ; 0 0 1=0 > 1", "0 ; 0 00 0=0 > 1", "0 ; 0 0 0=0 > 1 > 2"):
+                     "0 ; 0 0 1=0 > 1", "1 ; 0 1 0=0 2=0 > 1", "0 ; 0 00 0=0 > 1", "0 ; 0 0 0=0 > 1 > 2"):
             self.assertIsNone(self.fails(ParseError, read_rule, pool, text).at)
         self.assertEqual(len(read_rule(pool, "1 ; 0 0 0=0 > 1 ; 0 1 0=0 1=0 > 1")), 2)
 
@@ -236,7 +237,8 @@ class TextsTest(Case):
         wide = snap_pool(4)
         for text in ("2", "2 ; 0 0 0=0 > 1", "6 ; 3 0 3=0 > 1"):
             self.fails_keeping(TooMany, 3000, read_rule, wide, text)
-        for text in ("7", "2 ; 0 0 0=0 > 100", "2 ; 4 0 4=0 > 1", "2 ; 0 0 1=0 > 1", "2 ; 1 0 1=0 > 1 ; 0 0 0=0 > 1", None,
+        self.fails(ParseError, read_rule, star_pool(3), "6 ; 0 1 0=0 3=0 > 1")
+        for text in ("7", "2 ; 0 0 0=0 > 100", "2 ; 0 0 0=0 4=0 > 1", "2 ; 4 0 4=0 > 1", "2 ; 0 0 1=0 > 1", "2 ; 1 0 1=0 > 1 ; 0 0 0=0 > 1", None,
                      "2 ; 0 0 0=0 > 01"):
             self.fails(ParseError, read_rule, wide, text)
 

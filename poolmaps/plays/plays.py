@@ -3,12 +3,12 @@
 from poolmaps.base.checks import check_number, is_number
 from poolmaps.base.pools import Pool, check_pool, check_pool_like, each_once
 from poolmaps.base.webs import check_web
-from poolmaps.errors import InvalidNumber, InvalidOperation, InvalidRule, InvalidWord
+from poolmaps.errors import InvalidOperation, InvalidRule, InvalidWord
 from poolmaps.groups.closed import can_agree, is_obstacle, obstacle
 from poolmaps.known.sights import (
     MAX_WORDS, check_few_runs, check_few_words, known_by_sight, sight_table, views_in_runs,
 )
-from poolmaps.known.words import MAX_ROUNDS, is_word, known_table
+from poolmaps.known.words import is_word, known_table
 from poolmaps.plays.powers import blocks_of_word, check_at_least_one, power_pool
 from poolmaps.plays.settings import PlaySetting, is_known_signal
 from poolmaps.puzzles.trees import MAX_NODES
@@ -105,7 +105,6 @@ class Play:
         if not isinstance(other, Play) or other._host != self._guest:
             raise InvalidOperation("this is no play in the guest of this one")
         rounds = self._rounds * other._rounds
-        check_product(rounds)
         check_few_words(self._host, rounds)
         numbers = sight_table(self._host, rounds)
         signals = [other.signals_behind(self.word_of(word)) for word in numbers]
@@ -118,7 +117,6 @@ class Play:
         check_task(task)
         check_sizes(self._host, task)
         rounds = self._rounds * rule.rounds
-        check_product(rounds)
         check_few_runs(self._host, rounds, len(task))
         table, outputs = rule.table, {}
         for run, views in views_in_runs(self._host, rounds, task.rows).items():
@@ -142,12 +140,6 @@ def sights_with_known(host, rounds, numbers):
     """A dict from all sights behind so many rounds, ascending, to the threads that are known with them."""
     known_by = known_by_sight(numbers, known_table(host, rounds))
     return {sight: known_by[sight] for sight in sorted(known_by)}
-
-
-def check_product(rounds):
-    """Raises InvalidNumber for more rounds than a word can have."""
-    if rounds > MAX_ROUNDS:
-        raise InvalidNumber(rounds)
 
 
 def maps_of(host, numbers, signals):

@@ -35,10 +35,10 @@ class Shell:
             return "number"
         except NothingToUndo:
             return "undo"
-        except TooMany as error:
-            return f"many {error.limit}"
-        except Refused as error:
-            return f"refused {write_claim(error.claim)}"
+        except TooMany as excess:
+            return f"many {excess.limit}"
+        except Refused as refused:
+            return f"refused {write_claim(refused.claim)}"
         self._answered.append(True)
         return text
 
