@@ -48,20 +48,31 @@ def alike(pool, one, other, third):
     return are_alike(pool, one, other, third)
 
 
-def root_labels(pool, group):
-    """A dict from the indices of the group to lists of pairs (third, signals of the third one's roots).
+def labels_by(pool, group, thirds):
+    """A dict from the indices of the group to lists of pairs (third, signals of the third one's roots)."""
+    return {
+        index: [(third, signals_of_roots(pool.webs[index], pool.webs[third])) for third in thirds] for index in group
+    }
 
-    Two webs share such a pair exactly if they are alike for the third one.
-    """
-    webs = pool.webs
-    rooted = [third for third in group if len(webs[third].roots) > 0]
-    return {index: [(third, signals_of_roots(webs[index], webs[third])) for third in rooted] for index in group}
+
+def rooted_in(pool, group):
+    """The list of the indices in the group whose webs have roots."""
+    return [third for third in group if len(pool.webs[third].roots) > 0]
+
+
+def root_labels(pool, group):
+    """Such a dict in which two webs share a pair exactly if they are alike for some web of the group."""
+    firsts = {}
+    # Webs with the same roots judge alike, so the first one is enough.
+    for third in rooted_in(pool, group):
+        firsts.setdefault(pool.webs[third].roots, third)
+    return labels_by(pool, group, list(firsts.values()))
 
 
 def links_in(pool, group):
     """The ascending tuple of the links of the group."""
     check_group(pool, group)
-    labels = root_labels(pool, group)
+    labels = labels_by(pool, group, rooted_in(pool, group))
     return tuple([
         (one, other, mine[0])
         for one in group for other in group if one < other
