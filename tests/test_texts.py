@@ -1,5 +1,6 @@
 """Texts, by a writer of the tests' own; each spoilt text is refused exactly if no value has it."""
 
+import re
 from random import Random
 
 from poolmaps.base.pools import Pool, chain_pool, pair_pool, snap_pool, star_pool
@@ -16,7 +17,8 @@ from poolmaps.text.texts import (
     write_task, write_tree, write_web, write_word,
 )
 from tests.support import (
-    WRONG, Case, is_int, is_int_tuple, marked_pools, near_values, not_pools, pair_pools, small_pools, wrong_where,
+    WRONG, Case, is_int, is_int_tuple, marked_pools, near_values, not_pools, pair_pools, slow_run_views, small_pools,
+    wrong_where,
 )
 from tests.test_desk import looks_like_claim
 
@@ -82,6 +84,108 @@ def own_tree(tree):
     return " ; ".join(texts)
 
 
+# What texts there are, by patterns of the tests' own.
+
+NUMBER = "(?:0|[1-9][0-9]{0,59})"
+
+
+def fits(pattern, text):
+    return re.fullmatch(pattern.replace("N", NUMBER), text, re.ASCII) is not None
+
+
+def numbers(text):
+    """The integers of a list, or None."""
+    if not fits("-|N(?: N)*", text):
+        return None
+    return [] if text == "-" else [int(part) for part in text.split(" ")]
+
+
+def climbs(parts):
+    return all(one < other for one, other in zip(parts, parts[1:]))
+
+
+def is_web_text(text):
+    if not fits("(?:-|[0-4]+)(?::[1-9][0-9]{0,3})?(?: (?:-|[0-4]+)(?::[1-9][0-9]{0,3})?)*", text):
+        return False
+    heard = [part.split(":")[0].replace("-", "") for part in text.split(" ")]
+    return len(heard) <= 5 and all(
+        climbs(figures) and str(at) not in figures and all(int(figure) < len(heard) for figure in figures)
+        for at, figures in enumerate(heard))
+
+
+def is_pool_text(text):
+    webs = text.split(" | ")
+    if not all(is_web_text(web) for web in webs) or len({len(web.split(" ")) for web in webs}) > 1:
+        return False
+    return len(webs) == len(set(webs)) <= 80
+
+
+def is_word_text(text):
+    told = numbers(text)
+    return told is not None and len(told) <= 6 and all(index < 80 for index in told)
+
+
+def is_task_text(text):
+    rows, size = [], None
+    for part in text.split(" ; "):
+        if part.count(" = ") != 1:
+            return False
+        row, rights = part.split(" = ")
+        told = [numbers(row), *[numbers(right) for right in rights.split(" , ")]]
+        size = size or (told[0] and len(told[0]))
+        if not size or size > 5 or any(each is None or len(each) != size for each in told):
+            return False
+        if max(told[0]) > 9 or max(max(right) for right in told[1:]) > 99 or not climbs(told[1:]) or len(told) > 257:
+            return False
+        rows.append(told[0])
+    return climbs(rows) and len(rows) <= 64
+
+
+def view_of_text(text, size):
+    """The view of a text as a list, or None."""
+    if not fits("[0-4] N(?: [0-4]=[0-9])+", text):
+        return None
+    thread, number, *pairs = text.split(" ")
+    threads = [pair[0] for pair in pairs]
+    if not climbs(threads) or thread not in threads or int(threads[-1]) >= size:
+        return None
+    return [int(thread), int(number), [[int(pair[0]), int(pair[2])] for pair in pairs]]
+
+
+def is_tree_text(text):
+    for part in text.split(" ; "):
+        if fits("ask .* > N:N(?: N:N)*", part) and part.count(" > ") == 1:
+            view, branches = part[4:].split(" > ")
+            outputs = [int(branch.split(":")[0]) for branch in branches.split(" ")]
+            if view_of_text(view, 5) is None or not climbs(outputs) or outputs[-1] > 99:
+                return False
+        elif fits("stop [0-9](?: [0-9]){0,4} [|] .*", part) and part.count(" | ") == 1:
+            if not is_word_text(part.split(" | ")[1]):
+                return False
+        else:
+            return False
+    return True
+
+
+def is_claim_text(text):
+    name = "[a-z]{1,8}"
+    return fits(f"(?:agrees|never) {name}|(?:within|does) {name} {name}|can {name} {name} [0-6]|near {name} [0-6] N", text)
+
+
+def is_rule_text(pool, text):
+    rounds, *parts = text.split(" ; ")
+    if not fits("[0-6]", rounds) or not all(part.count(" > ") == 1 for part in parts):
+        return False
+    told = [part.split(" > ") for part in parts]
+    views = [view_of_text(view, pool.size) for view, _ in told]
+    if None in views or not climbs(views) or not all(fits("[0-9]|[1-9][0-9]", output) for _, output in told):
+        return False
+    known = {
+        view[:2]: [thread for thread, _ in view[2]]
+        for views_there in slow_run_views(pool, int(rounds), [(0,) * pool.size]).values() for view in views_there}
+    return all(known.get(tuple(view[:2])) == [thread for thread, _ in view[2]] for view in views)
+
+
 def looks_like_tree(value):
     """The form of a tree, as the document tells it."""
     if type(value) is not tuple or not value or not all(type(node) is tuple and len(node) == 3 for node in value):
@@ -132,8 +236,8 @@ def spoilt_texts(text, drawn, many=60):
 
 
 class TextsTest(Case):
-    def checks(self, read, write, own, values, many=60):
-        """Each value has its text; a spoilt text is that of a value, or of none."""
+    def checks(self, read, write, own, values, is_text, many=60):
+        """Each value has its text; a spoilt text is refused exactly if no value has it."""
         drawn, refused = Random(127), 0
         for value in values:
             text = own(value)
@@ -144,8 +248,10 @@ class TextsTest(Case):
                     told = read(other)
                 except Exception as error:
                     self.assertEqual((type(error), error.at), (ParseError, None), other)
+                    self.assertFalse(is_text(other), other)
                     refused += 1
                 else:
+                    self.assertTrue(is_text(other), other)
                     self.assertEqual(own(told), other)
                     self.assertEqual(write(told), other)
                     self.assertEqual(repr(read(write(told))) if type(told) is tuple else 0,
@@ -156,14 +262,14 @@ class TextsTest(Case):
                 self.assertIsNone(self.fails(ParseError, read, value).at)
 
     def test_webs(self):
-        self.checks(read_web, write_web, own_web, WEBS[::5] + WEBS[-2:], 20)
+        self.checks(read_web, write_web, own_web, WEBS[::5] + WEBS[-2:], is_web_text, 20)
         for web in WEBS:
             self.assertEqual((write_web(web), read_web(own_web(web))), (own_web(web), web))
         for value in wrong_where(lambda each: type(each) is Web):
             self.fails(InvalidWeb, write_web, value)
 
     def test_pools(self):
-        self.checks(read_pool, write_pool, lambda pool: " | ".join(own_web(web) for web in pool), POOLS, 20)
+        self.checks(read_pool, write_pool, lambda pool: " | ".join(own_web(web) for web in pool), POOLS, is_pool_text, 20)
         for value in not_pools():
             self.fails(InvalidPool, write_pool, value)
         for size in (1, 2, 3, 4):
@@ -176,7 +282,7 @@ class TextsTest(Case):
             self.assertIsNone(self.fails(ParseError, read_pool, text).at)
 
     def test_words(self):
-        self.checks(read_word, write_word, own_list, WORDS)
+        self.checks(read_word, write_word, own_list, WORDS, is_word_text)
         for value in [*WRONG, (80,), (0,) * 7, (True,), (0, -1), [0]]:
             if not (is_int_tuple(value) and len(value) <= 6 and all(0 <= part < 80 for part in value)):
                 self.fails(InvalidWord, write_word, value)
@@ -184,7 +290,7 @@ class TextsTest(Case):
             self.fails(ParseError, read_word, text)
 
     def test_tasks(self):
-        self.checks(read_task, write_task, own_task, TASKS, 20)
+        self.checks(read_task, write_task, own_task, TASKS, is_task_text, 20)
         for value in wrong_where(lambda each: type(each) is Task):
             self.fails(InvalidTask, write_task, value)
         for text in ("0 = 0 ; 0 = 1", "1 = 0 ; 0 = 1", "0 = 1 , 0", "0 = 0 , 0", "0 = 100", "10 = 0", "0 1 = 0", "0 =",
@@ -192,7 +298,7 @@ class TextsTest(Case):
             self.fails(ParseError, read_task, text)
 
     def test_trees(self):
-        self.checks(read_tree, write_tree, own_tree, TREES, 30)
+        self.checks(read_tree, write_tree, own_tree, TREES, is_tree_text, 30)
         for tree in (TREES[0], TREES[3], TREES[2]):
             for value in [*near_values(tree), *WRONG]:
                 if looks_like_tree(value):
@@ -210,7 +316,7 @@ class TextsTest(Case):
         self.assertEqual(read_tree(write_tree(many)), many)
 
     def test_claims(self):
-        self.checks(read_claim, write_claim, own_list, CLAIMS, 30)
+        self.checks(read_claim, write_claim, own_list, CLAIMS, is_claim_text, 30)
         for claim in CLAIMS:
             for value in [*near_values(claim), *WRONG]:
                 if not looks_like_claim(value):
@@ -221,7 +327,7 @@ class TextsTest(Case):
 
     def test_rules(self):
         for rule in RULES:
-            self.checks(lambda text: read_rule(rule.pool, text), write_rule, own_rule, [rule], 40)
+            self.checks(lambda text: read_rule(rule.pool, text), write_rule, own_rule, [rule], lambda text: is_rule_text(rule.pool, text), 40)
         for value in wrong_where(lambda each: type(each) is Rule):
             self.fails(InvalidRule, write_rule, value)
         pool = pair_pool("RLB")
