@@ -156,6 +156,8 @@ def is_tree_text(text):
     for part in text.split(" ; "):
         if fits("ask .* > N:N(?: N:N)*", part) and part.count(" > ") == 1:
             view, branches = part[4:].split(" > ")
+            if not fits("N:N(?: N:N)*", branches):
+                return False
             outputs = [int(branch.split(":")[0]) for branch in branches.split(" ")]
             if view_of_text(view, 5) is None or not climbs(outputs) or outputs[-1] > 99:
                 return False
