@@ -318,6 +318,16 @@ class DeskTest(Case):
             self.assertRaises(Exception, call)
         self.assertEqual(desk.redo(), (("b", 4),))
 
+    def test_changes_that_change_the_desk_themselves(self):
+        desk = Desk()
+        desk.put("a", pair_pool("RL"))
+        news = desk.revise("a", lambda pool: (desk.put("b", NEAR), pool.with_web(full_web(2)))[1])
+        self.assertEqual(news, (("a", "never"), ("b", 4)))
+        self.assertEqual([desk.undo(), desk.undo(), desk.redo(many=2)], [
+            (("a", "agrees"),), (("b", None),), (("a", "never"), ("b", 4))])
+        inner = desk.during(lambda one: one.during(lambda two: two.take("b")))
+        self.assertEqual((inner, desk.names), ((("b", None),), ("a", "b")))
+
     def test_equality(self):
         one, other = Desk(), Desk()
         one.put("a", pair_pool("RL"))
