@@ -54,11 +54,24 @@ def knowing_at_first(pool):
     return tuple([(thread,) for thread in range(pool.size)])
 
 
+def known_together(heard, earlier):
+    """Whom these threads knew, all together."""
+    return tuple(sorted({each for other in heard for each in earlier[other]}))
+
+
 def knowing_after(web, earlier):
     """Whom the threads know behind one more round with this web."""
-    return tuple([
-        tuple(sorted({each for other in heard for each in earlier[other]})) for heard, _ in web.signals
-    ])
+    return tuple([known_together(heard, earlier) for heard, _ in web.signals])
+
+
+def knowings_after(pool, earlier):
+    """The list of whom the threads know behind one more round, for each web of the pool."""
+    kept = {}
+    for web in pool.webs:
+        for heard, _ in web.signals:
+            if heard not in kept:
+                kept[heard] = known_together(heard, earlier)
+    return [tuple([kept[signal[0]] for signal in web.signals]) for web in pool.webs]
 
 
 def knowing_behind(pool, word):
@@ -77,11 +90,17 @@ def known_to_all(knowing):
 def known_table(pool, rounds):
     """A dict from all words with so many rounds to whom the threads know behind them."""
     table = {(): knowing_at_first(pool)}
+    behind = {}
     for _ in range(rounds):
-        table = {
-            (*word, index): knowing_after(web, knowing)
-            for word, knowing in table.items() for index, web in enumerate(pool.webs)
-        }
+        longer = {}
+        for word, knowing in table.items():
+            # Whom threads know is the same behind many words.
+            if knowing not in behind:
+                behind[knowing] = knowings_after(pool, knowing)
+            for index, told in enumerate(behind[knowing]):
+                key = (*word, index)
+                longer[key] = told
+        table = longer
     return table
 
 

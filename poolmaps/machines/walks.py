@@ -72,6 +72,9 @@ class Walker(Walk):
         """The list of the configurations behind a round, one for each web in order."""
         moves = self._moves
         told = [[moves.get(letter, letter[1]) for letter in letters] for letters in self.letters_at(place)]
+        if all([len(set(states)) == 1 for states in told]):
+            # No thread minds what it hears, as with most machines that have come to their outputs.
+            return [tuple([states[0] for states in told])] * len(self._choices)
         return [tuple([states[choice] for states, choice in zip(told, chosen)]) for chosen in self._choices]
 
     def behind_words(self, start, rounds):
